@@ -1,0 +1,1 @@
+"""Shapeguess: an engine that guesses, and the plain run that it must equal."""
