@@ -26,18 +26,35 @@ def steps_in(code):
 def live_lists(code):
     """Return the list of the ascending lists of live registers, one for each row."""
     reads = [read_by(row) for row in code.rows()]
-    steps = steps_in(code)
-    live = [sorted(set(places)) for places in reads]
-    is_changed = True
-    while is_changed:
-        is_changed = False
-        # Most steps lead to later rows, so few rounds are needed from the last row to the first.
-        for number in range(len(reads) - 1, -1, -1):
-            found = sorted(set(reads[number] + waiting_behind(live, steps[number])))
-            if found != live[number]:
-                live[number] = found
-                is_changed = True
+    before = steps_before(code)
+    live = [[] for _ in reads]
+    for place in sorted({place for places in reads for place in places}):
+        for row in rows_with_live(reads, before, place):
+            live[row].append(place)
     return live
+
+
+def steps_before(code):
+    """Return for each row the list of the steps that lead to it: pairs of a row and the register that is written."""
+    steps = steps_in(code)
+    before = [[] for _ in steps]
+    for row, found in enumerate(steps):
+        for to, written in found:
+            before[to].append((row, written))
+    return before
+
+
+def rows_with_live(reads, before, place):
+    """Return the list of the rows at which a register is live, found backwards from the rows that read it."""
+    found = {row: True for row, places in enumerate(reads) if place in places}
+    todo = list(found)
+    while todo:
+        to = todo.pop()
+        for row, written in before[to]:
+            if written != place and row not in found:
+                found[row] = True
+                todo.append(row)
+    return list(found)
 
 
 def waiting_behind(live, steps):

@@ -147,3 +147,25 @@ class Maker:
             self.function("f", ("a",)),
             self.function("k", ("none", "b")),
         ]
+
+    def lively_functions(self):
+        """Functions that run for a while: all globals exist, objects have methods, most errors are caught and shown."""
+        lets = tuple(("let", x, ("new", ("value", NONE))) for x in LOCALS)
+        calm = []
+        for g, x in zip(GLOBALS, LOCALS):
+            method = ("value", self.word((("fun", "f"), ("fun", "k"), num(1), YES)))
+            calm.append(("put", g, self.word((("name", x), ("new", ("name", x)), method))))
+            calm.append(("set", ("name", x), self.word(FIELDS), method))
+            calm.append(("let", x, ("new", self.word((("name", x), ("global", g))))))
+        rest = [function[2] for function in self.functions()]
+        made = [("main", (), lets + tuple(self.guarded(s) for s in tuple(calm) + rest[0]))]
+        for word, parameters, body in (("f", ("a",), rest[1]), ("k", ("none", "b"), rest[2])):
+            # The first statements introduce the locals that are no parameters.
+            many = len(LOCALS) - len(parameters)
+            made.append((word, parameters, body[:many] + tuple(self.guarded(s) for s in body[many:])))
+        return made
+
+    def guarded(self, statement):
+        if statement[0] in ("return", "throw", "try") or self.random.randint(0, 5) == 0:
+            return statement
+        return ("try", (statement,), self.word(LOCALS), (("show", ("name", self.word(LOCALS))),))
