@@ -35,7 +35,7 @@ class Signature:
 
     def has_kind(self, value):
         """Return whether anything is a kind of this signature: True or False."""
-        return isinstance(value, str) and value in self._kinds
+        return value in self._kinds
 
     def __eq__(self, other):
         if not isinstance(other, Signature) or self._kinds != other._kinds:

@@ -74,6 +74,21 @@ class Arguments(unittest.TestCase):
         path.append(3)
         self.assertEqual(error.path, (1, 2))
 
+    def test_messages_name_what_is_short(self):
+        for words in (GUESS, MISSING):
+            for word, names in words.items():
+                error = getattr(errors, word)
+                if not names:
+                    self.assertTrue(str(error()))
+                elif word == "BadTree":
+                    self.assertIn("2, 0, 'x'", str(error((2, 0, "x"))))
+                elif word != "BadVersion":
+                    self.assertIn("'gone'", str(error("gone")))
+                    self.assertIn("999999", str(error(999999)))
+                    self.assertIn("-999999", str(error(-999999)))
+                    self.assertLess(len(str(error("x" * 41))), 80)
+                    self.assertIn("x" * 40, str(error("x" * 40)))
+
     def test_raised_and_caught(self):
         with self.assertRaises(ValueError):
             raise errors.BadText(3)

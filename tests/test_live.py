@@ -266,7 +266,8 @@ class Papers(unittest.TestCase):
         for thing in (["way", (0,)], ("way", [0]), ("way", (0,), 0), ("way",), ("way", (False,)), (("way",), (0,)),
                       ["closed", (0, 1, 2, 3, 4)], ("Way", (0,)), ("way", 0), self.CODE, ("way", self.CODE)):
             self.wrong(0, 0, thing)
-        for thing in (("closed", [0, 1, 2, 3, 4]), ("closed", (False, True, 2, 3, 4)), ("closed", (0, True, 2, 3, 4)),
+        for thing in (("Closed", (0, 1, 2, 3, 4)), (None, (0, 1, 2, 3, 4)), ("closed", [0, 1, 2, 3, 4]),
+                      ("closed", (False, True, 2, 3, 4)), ("closed", (0, True, 2, 3, 4)),
                       ("closed", "01234"), ("closed", {0: 0, 1: 1, 2: 2, 3: 3, 4: 4})):
             self.wrong(0, 1, thing)
 
