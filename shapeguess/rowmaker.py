@@ -40,6 +40,18 @@ def result_row(part, target, places):
     return (word, target) + tuple(places)
 
 
+def statement_row(part, places):
+    """Return the row of a simple statement other than let and do, where places has its operands' registers."""
+    word = part[0]
+    if word == "put":
+        return (word, part[1], places[0])
+    if word == "set":
+        return (word, places[0], part[2], places[1])
+    if word == "drop":
+        return (word, places[0], part[2])
+    return (word, places[0])
+
+
 class RowMaker:
     """The rows and stretches of a function while they are made."""
 
@@ -105,16 +117,9 @@ class RowMaker:
 
     def _simple_statement(self, statement):
         """Make the rows of a statement without statements inside, other than a let."""
-        word = statement[0]
         places = self._places(operands_of(statement), len(self._numbers))
-        if word == "put":
-            self._rows.append((word, statement[1], places[0]))
-        elif word == "set":
-            self._rows.append((word, places[0], statement[2], places[1]))
-        elif word == "drop":
-            self._rows.append((word, places[0], statement[2]))
-        elif word != "do":
-            self._rows.append((word, places[0]))
+        if statement[0] != "do":
+            self._rows.append(statement_row(statement, places))
 
     def _choice(self, statement):
         """Make the rows of an if."""

@@ -14,6 +14,13 @@ def is_word(value):
     return value[0] in LETTERS and all([sign in WORD_SIGNS for sign in value])
 
 
+def are_different_words(value):
+    """Return whether anything is a tuple of different words."""
+    if not isinstance(value, tuple) or not all([is_word(word) for word in value]):
+        return False
+    return len(value) == len(set(value))
+
+
 def is_kind_word(value):
     """Return whether anything is a word that may name a kind of tokens."""
     return is_word(value) and value not in RESERVED

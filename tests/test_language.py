@@ -34,7 +34,7 @@ ALLOWED_NODES = (
     ast.Dict, ast.ListComp, ast.DictComp, ast.SetComp, ast.comprehension, ast.BoolOp, ast.And, ast.Or, ast.UnaryOp,
     ast.Not, ast.USub, ast.BinOp, ast.Add, ast.Sub, ast.Mult, ast.Compare, ast.Eq, ast.NotEq, ast.Lt, ast.LtE,
     ast.Gt, ast.GtE, ast.Is, ast.IsNot, ast.In, ast.NotIn, ast.IfExp, ast.JoinedStr, ast.FormattedValue, ast.Break,
-    ast.Continue, ast.Pass,
+    ast.Continue, ast.Pass, ast.BitAnd, ast.BitOr, ast.LShift,
 )
 
 
