@@ -22,9 +22,7 @@ def broken_by(signature, facts, row):
 
 def result_register(facts, row):
     """Return a register that stands for what a row writes, so that what was there before keeps its own."""
-    written = written_by(row)
-    named = read_by(row) if written is None else [written] + read_by(row)
-    return 1 + max([registers_up_to(facts) - 1] + named)
+    return max([registers_up_to(facts)] + [place + 1 for place in read_by(row)])
 
 
 def cases_of(signature, facts, row):
@@ -94,7 +92,7 @@ def additions_of_new(facts, row, result):
 def additions_of_look_up(facts, row, result):
     """Return the cases, one or none, of a get or a method."""
     is_object = ("kind", row[2], "obj")
-    is_found, mark = look_up_known(Known(facts + [is_object]), row[2], row[3])
+    is_found, mark = look_up_known(Known(facts), row[2], row[3])
     if not is_found:
         return []
     if mark is None:
@@ -127,7 +125,7 @@ def additions_of_change(facts, row):
     """Return the cases, one or none, of a set or a drop."""
     is_object = ("kind", row[1], "obj")
     if row[0] == "drop":
-        shape = Known(facts + [is_object]).shape_at(row[1])
+        shape = Known(facts).shape_at(row[1])
         if shape is not None and row[2] not in shape[1]:
             return []
     return [[is_object]]
@@ -136,7 +134,7 @@ def additions_of_change(facts, row):
 def can_break(case, row, result, fact):
     """Return whether a row that is finished in a case, whose result has its own register, can break a fact."""
     written = written_by(row)
-    if written is not None and written in registers_in(fact):
+    if written in registers_in(fact):
         return not follows(case, with_register(fact, written, result))
     if row[0] in CALLING:
         return fact[0] in ("shape", "holds", "slot", "global")

@@ -52,8 +52,7 @@ def denials(facts, fact, other):
         return [[("unlike", fact[1], fact[2])]]
     if word == "unlike":
         return [[("same", fact[1], fact[2])]]
-    if word == "shape":
-        return [[("kind", fact[1], "err")], []]
+    # A built scene has no object of a shape, no field and no global as they are told in the fact but not in the list.
     return [[]]
 
 

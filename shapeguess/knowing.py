@@ -70,7 +70,7 @@ class Known:
         for place in self.classes():
             if len(self._kinds[place]) > 1 or len(self._marks[place]) > 1 or len(self._shapes[place]) > 1:
                 return True
-            if self._has_bad_way([], self.shape_at(place)):
+            if self._is_too_deep(self.shape_at(place)):
                 return True
         if any([self.class_of(one) == self.class_of(other) for one, other in self._pairs_of("unlike")]):
             return True
@@ -172,19 +172,15 @@ class Known:
         if shape is None:
             return False
         lacking = [field for field in self.slots_of(name) if field not in shape[1]]
-        return len(lacking) > 0 or self._has_bad_way([name], shape)
+        return len(lacking) > 0 or self._is_too_deep(shape)
 
-    def _has_bad_way(self, met, shape):
-        """Return whether the way up from a shape meets a name twice, or comes to too many roots."""
-        met = list(met)
+    def _is_too_deep(self, shape):
+        """Return whether the way up from a shape comes to too many roots, as it does where it meets a name twice."""
         roots = 0
-        while shape is not None and shape[0] is not None:
+        while shape is not None and shape[0] is not None and roots <= MOST_ROOTS:
             roots = roots + 1
-            if shape[0] in met or roots > MOST_ROOTS:
-                return True
-            met.append(shape[0])
             shape = self.shape_of(shape[0])
-        return False
+        return roots > MOST_ROOTS
 
 
 def first_of(found):

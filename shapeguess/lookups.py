@@ -50,7 +50,7 @@ def is_right(shapes, f, entry):
         return False
     slot = shapes.slot(shape, f)
     if how[0] == "own":
-        return len(how) == 2 and slot is not None and how[1] == slot
+        return len(how) == 2 and how[1] == slot
     if len(how) != 3 or slot is not None:
         return False
     if how[0] == "up":

@@ -76,8 +76,7 @@ class Heap:
     def drop_field(self, k, f):
         """Take a field, which may be anything, from an object."""
         slot = self.own(k, f)
-        if slot is None:
-            raise BadShape()
+        # The table raises BadShape where there is no slot.
         self._shape_numbers[k] = self._table.without_name(self._shape_numbers[k], f)
         self._contents[k].pop(slot)
 

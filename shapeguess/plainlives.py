@@ -28,8 +28,6 @@ class Lives:
 
     def has_variant(self, name):
         """Return whether anything is the name of a variant."""
-        if not isinstance(name, str):
-            return False
         primitives = self._signature.primitives()
         return name in [variant[0] for primitive in primitives for variant in self._signature.variants(primitive)]
 

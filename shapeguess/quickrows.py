@@ -12,7 +12,8 @@ QUICK_READS = {
 }
 # The member that is a tuple of registers.
 ARGUMENTS_AT = {"variant": 3, "prim": 3, "call": 3, "method": 4}
-QUICK_WRITING = ("const", "move", "same", "load", "variant", "global", "get", "new", "prim", "call", "method")
+# A call or method row is not among them: its register is written when control comes back, behind the piece.
+QUICK_WRITING = ("const", "move", "same", "load", "variant", "global", "get", "new", "prim")
 
 
 def quick_written_by(row):
@@ -33,7 +34,5 @@ def quick_read_by(row, points):
             found.extend(quick_registers_in(pairs))
     if row[0] == "link":
         found.extend(quick_registers_in(points[row[2]][2]))
-    if row[0] == "call" or row[0] == "method":
-        behind = quick_registers_in(points[row[-1]][2])
-        found.extend([place for place in behind if place != row[1]])
+    # What the point behind a call tells besides its result, the end of the call tells in the same places.
     return found

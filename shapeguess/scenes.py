@@ -35,14 +35,14 @@ class Fresh:
 
 
 def atoms_in(parts):
-    """Return the list of the strings and numbers inside tuples and lists."""
+    """Return the list of what is neither a tuple nor a list inside tuples and lists."""
     atoms = []
     todo = list(parts)
     while todo:
         part = todo.pop()
         if isinstance(part, (list, tuple)):
             todo.extend(part)
-        elif part is not None:
+        else:
             atoms.append(part)
     return atoms
 
@@ -61,8 +61,8 @@ def with_bits(facts):
 def built_scene(facts, fact, names, many):
     """Return a scene with these names and this many registers in which facts, which are not contradictory, hold.
 
-    Each value that they do not tell differs from all that they and the one other fact, or None, tell. No object has
-    all the fields of that one fact unless they tell it.
+    Each value that they do not tell differs from all that they and the one other fact, or None, tell: it is an error
+    if its kind is not told. An object whose shape they do not tell has a field that is told nowhere.
     """
     known = Known(with_bits(facts))
     fresh = Fresh([facts, fact])

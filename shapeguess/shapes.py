@@ -1,7 +1,7 @@
 """Shapes of objects and the tables that give numbers to them (S4.1, S4.2)."""
 
 from shapeguess.errors import BadShape, NotThere
-from shapeguess.values import are_different_words, is_index, is_number, is_word
+from shapeguess.values import are_different_words, is_index, is_number
 
 
 class Shapes:
@@ -40,8 +40,7 @@ class Shapes:
     def with_name(self, number, f):
         """Return the number of the shape to which putting a name leads."""
         root, names = self.shape(number)
-        if not is_word(f) or f in names:
-            raise BadShape()
+        # What is no word, or is there already, gives no tuple of different words.
         return self.number_of(root, names + (f,))
 
     def without_name(self, number, f):

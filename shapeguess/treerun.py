@@ -74,7 +74,7 @@ class TreeRun:
         elif word == "finish":
             self._finish(task[1])
         elif word == "again":
-            self._begin_loop(task[1])
+            self._begin_operands(task[1])
         elif word == "leave":
             self._leave(task, NONE)
 
@@ -83,19 +83,16 @@ class TreeRun:
         word = part[0]
         if word == "name":
             self._values.append(self._names.get(part[1], NONE))
-        elif word == "while":
-            self._begin_loop(part)
         elif word == "try":
             self._tasks.append(("catch", part, len(self._values)))
             self._plan("part", part[1])
         else:
-            self._tasks.append(("finish", part))
-            self._plan("part", parts_before(part))
+            self._begin_operands(part)
 
-    def _begin_loop(self, part):
-        """Let the condition of a while come next."""
+    def _begin_operands(self, part):
+        """Let the expressions whose values a part needs come next, and then the part itself."""
         self._tasks.append(("finish", part))
-        self._plan("part", [part[1]])
+        self._plan("part", parts_before(part))
 
     def _finish(self, part):
         """Complete an expression or a statement whose operands have their values."""
@@ -120,9 +117,6 @@ class TreeRun:
 
     def _finish_expression(self, part, values):
         """Complete an expression other than a name."""
-        if part[0] == "value":
-            self._values.append(part[1])
-            return
         row = result_row(part, None, list(range(len(values))))
         if part[0] in CALLS:
             name, arguments = call_of(self._program, self._held, row, values)

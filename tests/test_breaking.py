@@ -288,6 +288,16 @@ class Breaking(BreakTest):
         self.breaks([named, ("is", 0, ("name", "b"))], ("put", "g", 0), named)
         self.breaks(list(REGISTER_FACTS[:2]) + [("unlike", 0, 3)] + list(WATCHED_FACTS[1:]), ("put", "g", 3))
 
+    def test_words_that_stand_for_two_things(self):
+        # A global that is called like a name, and a field that is called like a kind, a name or a global.
+        facts = [("holds", "g", WITH_F), ("slot", "g", "f", num(1)), ("kind", 0, "num"), ("global", "f", NONE)]
+        self.breaks(facts, ("put", "g", 3))
+        self.breaks(facts, ("set", 1, "num", 2), facts[0])
+        self.breaks(facts, ("set", 1, "g", 2), facts[0])
+        self.breaks(facts, ("drop", 1, "num"))
+        self.breaks(facts, ("drop", 1, "g"))
+        self.breaks(facts, ("drop", 1, "f"), facts[0], facts[1])
+
     def test_a_set(self):
         row = ("set", 1, "g", 2)
         shape, held = ("shape", 0, WITH_F), ("holds", "a", WITH_F)

@@ -131,6 +131,16 @@ class Reading(CellTest):
         self.assertIsNone(cell.look(near, 0, "f"))
         self.assertEqual(len(cell.entries()), 1)
 
+    def test_a_chain_with_a_number_that_another_heap_does_not_have(self):
+        shapes = Shapes()
+        cell = Cell(2, False)
+        cell.learn(Heap(shapes, [(5, ()), (0, ())] + [(None, ())] * 3 + [(None, (("f", NO),))]), 1, "f")
+        # Object 0 is another one here, and there is no object 5.
+        small = Heap(shapes, [(None, ()), (0, ())])
+        self.assertIsNone(cell.look(small, 1, "f"))
+        self.assertEqual(cell.read_field(small, 1, "f"), "field")
+        self.assertEqual(cell.entries(), "many")
+
     def test_two_steps_up(self):
         heap = Heap(Shapes(), [(None, (("f", YES),)), (0, ()), (1, ())])
         cell = Cell(1, False)

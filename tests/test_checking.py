@@ -210,7 +210,7 @@ class Points(CheckTest):
     def test_places(self):
         for place in (("reg", 10), ("reg", -1), ("reg", True), ("reg", None), ("value", ("obj", 0)),
                       ("value", ("tok", "far", 0)), ("value", None), ("value", 0), ("name", "p"), ("name", None),
-                      ("value", ("name", "n")), ("Reg", 0), (None, 0), ("reg", 0, 0), ("reg",), "r", ("kind", 0)):
+                      ("value", ("name", "n")), ("Reg", 0), ("Name", "n"), ("mark", "n"), ("", "o"), (None, 0), ("reg", 0, 0), ("reg",), "r", ("kind", 0)):
             self.with_point(("point", 0), 0, (0, (), ((0, place), (1, B))))
             self.with_point(("point", 0), 0, (0, (), ((0, A), (1, place))))
         # No quick register twice.
@@ -334,7 +334,7 @@ class Ends(CheckTest):
                        ((0, A), (True, B)), [(0, A), (1, B)], ([0, A], (1, B)), ((0, A), (1, B, B))):
             self.bad_end((2, (("main", 2, places),)))
         for place in (("reg", 10), ("reg", True), ("reg", -1), ("value", ("obj", 0)), ("value", ("tok", "far", 0)),
-                      ("name", "p"), ("name", ["n"]), ("Value", NONE), ("value",), ["reg", 0], None):
+                      ("name", "p"), ("name", ["n"]), ("Name", "n"), ("kind", "n"), ("Value", NONE), ("value",), ["reg", 0], None):
             self.bad_end((2, (("main", 2, ((0, place), (1, B))),)))
         for place in (("value", NONE), ("value", num(99)), ("name", "o"), A, ("reg", 5)):
             # One quick register may be the place of two plain ones here.
@@ -436,6 +436,26 @@ class Calls(CheckTest):
         self.bad_method(("method", 2, 0, "n", (1,), end(1, 4), 2), ("method", 2, 0, "m", (), end(1, 4), 2),
                         ("method", 2, 0, "m", (1, 1), end(1, 4), 2), ("method", 2, 0, "m", (1,), end(1, 2), 1),
                         ("method", 2, 0, "m", (1,), end(1, 6), 2), ("method", 2, 0, "m", (0, 1), end(1, 4), 2))
+
+    def test_plain_rows_of_other_words(self):
+        """Rows with as many members as a call or a method, in front of a point with which all else would fit."""
+        program = program_of("fun main(a, b) {let c = add(a, b); let c = a.f; a.long = c; let c = a.long(); show c;}")
+        # The rows: 0 prim 2 add (0, 1), 1 get 2 0 f, 2 set 0 long 2, 3 method 2 0 long (), 4 show 2.
+        live = [((0, A), (1, B)), ((0, A),), ((0, A), (2, C)), ((0, A),), ((2, C),)]
+
+        def version(row, at):
+            told = (0, (("main", at, live[at]),))
+            places = live[at + 1]
+            rows = [("point", 0), row + (told, 1), ("point", 1), ("stop", (0, (("main", at + 1, places),)))]
+            return Version("main", [], [], 4, rows, [(at, (), live[at]), (at + 1, (), places)])
+
+        self.right(version(("method", 2, 0, "long", ()), 3), program)
+        self.right(version(("call", 2, 0, (0,)), 3), program)
+        for row, at in ((("call", 2, 0, (0, 1)), 0), (("method", 2, 0, "add", (0, 1)), 0), (("call", 3, 0, (0, 0)), 0),
+                        (("call", 2, 0, (0,)), 1), (("method", 2, 0, "f", ()), 1), (("method", 2, 0, "f", (0,)), 1),
+                        (("call", 2, 0, (0, 0)), 2), (("method", 2, 0, "long", ()), 2), (("call", 2, 0, ()), 3),
+                        (("call", 2, 0, (0,) * 5), 3), (("call", 2, 0, (0,) * 4), 3), (("method", 2, 0, "f", ()), 3)):
+            self.wrong(("call", 1), version(row, at), program)
 
     def test_one_told_frame(self):
         waiting, inside = INNER_END[1]

@@ -121,6 +121,14 @@ class Contradictions(FactTest):
         for mark in VALUES + (("name", "a"),):
             self.against(("is", 0, mark), ("is", 1, mark), ("unlike", 0, 1))
         self.possible(("is", 0, num(0)), ("is", 1, num(1)), ("unlike", 0, 1))
+        # More than one class is joined by marks, and more than two registers.
+        pairs = [("is", q, num(q // 2)) for q in range(6)]
+        for q in (0, 2, 4):
+            self.against(*pairs, ("unlike", q, q + 1))
+            self.possible(*pairs, ("unlike", q, 5 - q if q != 2 else 4))
+        many = [("is", q, ("name", "a")) for q in range(4)]
+        for one, other in ((0, 3), (1, 2), (1, 3), (3, 2), (0, 1)):
+            self.against(*many, ("unlike", one, other))
         self.against(("kind", 0, "none"), ("kind", 1, "none"), ("unlike", 1, 0))
         self.against(("kind", 0, "none"), ("is", 1, NONE), ("unlike", 1, 0))
         self.possible(("kind", 0, "none"), ("unlike", 1, 0))
@@ -256,6 +264,15 @@ class Following(FactTest):
         self.leads_not([("kind", 0, "bit")], ("is", 0, YES), ("is", 0, NO))
         self.leads_not([("kind", 0, "err")], ("kind", 0, "fun"), ("is", 0, ("err", "e")), ("is", 0, ("err", "z1")))
         self.leads_not([("kind", 0, "fun")], ("is", 0, ("fun", "z1")))
+
+    def test_tokens_of_any_number(self):
+        for numbers in ((1, 2, 3), (2, 3, 4), (7, 8, 9), (10 ** 40, 10 ** 40 + 1, 10 ** 40 + 2)):
+            facts = [("is", 5 + at, num(number)) for at, number in enumerate(numbers)]
+            facts += [("kind", 0, "num"), ("kind", 1, "num"), ("unlike", 0, 1)]
+            facts += [("unlike", q, 5 + at) for at in range(3) for q in (0, 1)]
+            self.possible(*facts)
+            self.leads_not(facts, *(("is", q, num(number)) for q in (0, 1) for number in range(12)))
+            self.leads_not(facts, *(("is", q, num(numbers[-1] + more)) for q in (0, 1) for more in range(9)))
 
     def test_same_and_unlike(self):
         self.leads([("same", 0, 1), ("same", 1, 2)], ("same", 2, 0), ("same", 1, 0))

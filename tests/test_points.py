@@ -176,6 +176,9 @@ class Fitting(PointTest):
         self.assertIsInstance(told, list)
         told.clear()
         self.assertEqual(len(entered(state, guarded(), BINDING, 0)), 6)
+        frames = [("main", 2, (NO,) * 4), ("main", 2, (YES, ("obj", 3), NO, NO))]
+        self.assertEqual(entered(State(PROGRAM, BOOK, frames, OBJECTS, {}, []), guarded(), BINDING, 0),
+                         [NONE, NONE, ("obj", 3), NONE, YES, NONE])
         version = guarded(places=((0, ("value", YES)), (1, ("reg", 0))))
         self.assertEqual(entered(state, version, BINDING, 0), [("obj", 3)] + [NONE] * 5)
         version = guarded(places=((0, ("value", YES)), (1, ("name", "o"))))

@@ -301,6 +301,10 @@ class DeepCalls(TreeTest):
         shown, end = tree_run(program, BOOK, "main", [fun("main")], FAR)
         # Six turns for each call.
         self.assertEqual((len(shown), end), (500, None))
+        # As deep as calls can be: three turns for each one.
+        for text in ("fun main() {call &main();}", "fun main() {return call &main();}",
+                     "fun main() {let x = call &main();}", "fun main() {throw call &main();}"):
+            self.assertEqual(tree_run(program_of(text), BOOK, "main", [], FAR), ([], None))
 
     def test_deep_calls_that_return(self):
         # Numbers up to 400: each call adds one until there is no more.
