@@ -1,101 +1,104 @@
-"""The plain machine: it carries out plain rows (S3.3, S3.4)."""
+"""The plain machine: frames that go on in plain rows (S3.3, S3.4)."""
 
 from shapeguess.plainrows import CALLING, WRITING, stretch_over
-from shapeguess.states import LaterState
-from shapeguess.values import NONE
-from shapeguess.working import Held, Thrown, call_of, change, result_of, truth
+from shapeguess.working import Thrown
 
 
 class Machine:
-    """The parts of a state, which change while steps are made. The state itself stays as it is."""
+    """Frames, which change while steps are made. What rows do with values, or with what stands for them, work tells."""
 
-    def __init__(self, state):
-        self._before = state
-        self._frames = state.frames()
-        self._held = Held(state.objects(), state.global_values(), state.shown())
-        self._end = state.end()
+    def __init__(self, codes, frames, end, work):
+        self._codes = {name: codes[name] for name in codes}
+        self._frames = list(frames)
+        self._end = end
+        self._work = work
 
-    def has_ended(self):
-        """Return whether there is an end."""
-        return self._end is not None
+    def frames(self):
+        """Return the list of the frames."""
+        return list(self._frames)
 
-    def state(self):
-        """Return the state that the steps have led to."""
-        objects, global_values, shown = self._held.parts()
-        return LaterState(self._before, self._frames, objects, global_values, shown, self._end)
+    def end(self):
+        """Return the end, or None."""
+        return self._end
 
     def step(self):
         """Make one step. There is no end yet."""
         name, number, places = self._frames[-1]
-        row = self._before.code(name).row(number)
+        row = self._codes[name].row(number)
         try:
-            self._carry_out(row, places)
+            self._follow(outcome_of(self._work, row, number, places))
         except Thrown as error:
             self._handle(error.thrown)
 
-    def _carry_out(self, row, places):
-        """Carry out a row of the innermost frame, whose registers are places."""
-        word = row[0]
-        if word in CALLING:
-            self._call(row, places)
-        elif word == "return":
-            self._return(places[row[1]])
-        elif word == "throw":
-            raise Thrown(places[row[1]])
-        elif word == "jump":
-            self._stand_at(row[1])
-        elif word == "test":
-            self._test(places[row[1]], row[2])
-        elif word in WRITING:
-            self._write(row[1], result_of(self._before.book(), self._held, row, places))
+    def _follow(self, outcome):
+        """Do with the frames what came of the row of the innermost one."""
+        if outcome[0] == "at":
+            self._frames[-1] = self._frames[-1][:1] + outcome[1:]
+        elif outcome[0] == "call":
+            self._frames.append(called_frame(self._codes, self._work.none(), outcome[1], outcome[2]))
         else:
-            change(self._held, row, places)
-            self._go_on()
-
-    def _stand_at(self, number):
-        """Let the innermost frame stand at a row."""
-        name, _, places = self._frames[-1]
-        self._frames[-1] = (name, number, places)
-
-    def _go_on(self):
-        """Let the innermost frame stand at its next row."""
-        self._stand_at(self._frames[-1][1] + 1)
-
-    def _write(self, place, value):
-        """Put a value into a register of the innermost frame, which then stands at its next row."""
-        name, number, places = self._frames[-1]
-        self._frames[-1] = (name, number + 1, places[:place] + (value,) + places[place + 1:])
-
-    def _test(self, value, number):
-        """Carry out a test that leads to this row for no."""
-        if truth(value):
-            self._go_on()
-        else:
-            self._stand_at(number)
-
-    def _call(self, row, places):
-        """Carry out a call or method row that calls a function."""
-        name, arguments = call_of(self._before.program(), self._held, row, places)
-        rest = (NONE,) * (self._before.code(name).registers() - len(arguments))
-        self._frames.append((name, 0, arguments + rest))
+            self._return(outcome[1])
 
     def _return(self, value):
         """Take the innermost frame away and give its value to the frame that waits, or end."""
         self._frames.pop()
-        if not self._frames:
+        if self._frames:
+            self._frames[-1] = with_returned(self._codes, self._frames[-1], value)
+        else:
             self._end = ("returned", value)
-            return
-        name, number, _ = self._frames[-1]
-        self._write(self._before.code(name).row(number)[1], value)
 
     def _handle(self, value):
         """Let the innermost handler have a thrown value, or end."""
         while self._frames:
-            name, number, _ = self._frames[-1]
-            stretch = stretch_over(self._before.code(name).stretches(), number)
-            if stretch is not None:
-                self._write(stretch[3], value)
-                self._stand_at(stretch[2])
+            handling = handling_frame(self._codes, self._frames.pop(), value)
+            if handling is not None:
+                self._frames.append(handling)
                 return
-            self._frames.pop()
         self._end = ("thrown", value)
+
+
+def outcome_of(work, row, number, places):
+    """Carry out the plain row with this number; return what comes of it, or raise Thrown.
+
+    It is ("at", number, registers), where the frame stands then; ("call", name, arguments); or ("return", value).
+    """
+    word = row[0]
+    if word in CALLING:
+        return ("call",) + work.call(row, places)
+    if word == "return":
+        return ("return", places[row[1]])
+    if word == "throw":
+        raise Thrown(places[row[1]])
+    if word == "jump":
+        return ("at", row[1], places)
+    if word == "test":
+        return ("at", number + 1 if work.truth(places[row[1]]) else row[2], places)
+    if word in WRITING:
+        return ("at", number + 1, with_member(places, row[1], work.result(row, places)))
+    work.change(row, places)
+    return ("at", number + 1, places)
+
+
+def with_member(members, at, value):
+    """Return a tuple with another member at a place."""
+    return members[:at] + (value,) + members[at + 1:]
+
+
+def called_frame(codes, none, name, arguments):
+    """Return the frame of a function that was called, whose registers are none but for the arguments."""
+    return (name, 0, arguments + (none,) * (codes[name].registers() - len(arguments)))
+
+
+def with_returned(codes, frame, value):
+    """Return a frame that waits as it stands when it got the value of its call."""
+    name, number, places = frame
+    return (name, number + 1, with_member(places, codes[name].row(number)[1], value))
+
+
+def handling_frame(codes, frame, value):
+    """Return a frame as it stands when it handles a thrown value, or None if no stretch covers its row."""
+    name, number, places = frame
+    stretch = stretch_over(codes[name].stretches(), number)
+    if stretch is None:
+        return None
+    return (name, stretch[2], with_member(places, stretch[3], value))

@@ -1,7 +1,7 @@
 """Plain frames of linked points and of ends, bindings, and entering (S7.7)."""
 
-from shapeguess.compiling import code_of
-from shapeguess.facts import fact_holds, is_shaped, meaning_of
+from shapeguess.compiling import compiled
+from shapeguess.facts import fits, is_shaped, meaning_of
 from shapeguess.values import NONE, is_index
 
 
@@ -25,20 +25,30 @@ def names_right(state, version, binding):
 
 def frame_at(program, version, binding, k, registers):
     """Return the plain frame of a point of a version."""
-    row, _, pairs = version.point(k)
-    return plain_frame(program, bound_names(version, binding), (version.function(), row, pairs), registers)
+    return point_frame(compiled(program), version, binding, k, registers)
 
 
 def told_frames(program, version, binding, end, registers):
     """Return the list of the told frames of an end as plain frames."""
+    return end_frames(compiled(program), version, binding, end, registers)
+
+
+def point_frame(codes, version, binding, k, registers):
+    """Return the plain frame of a point of a version, where codes has the codes of the functions."""
+    row, _, pairs = version.point(k)
+    return plain_frame(codes, bound_names(version, binding), (version.function(), row, pairs), registers)
+
+
+def end_frames(codes, version, binding, end, registers):
+    """Return the list of the told frames of an end as plain frames, where codes has the codes of the functions."""
     names = bound_names(version, binding)
-    return [plain_frame(program, names, frame, registers) for frame in end[1]]
+    return [plain_frame(codes, names, frame, registers) for frame in end[1]]
 
 
-def plain_frame(program, names, frame, registers):
+def plain_frame(codes, names, frame, registers):
     """Return the plain frame of a tuple of a function, a row and pairs of plain registers and places."""
     function, row, pairs = frame
-    values = [NONE] * code_of(program.function(function)).registers()
+    values = [NONE] * codes[function].registers()
     for number, place in pairs:
         values[number] = value_at(names, place, registers)
     return (function, row, tuple(values))
@@ -53,8 +63,13 @@ def value_at(names, place, registers):
 
 def fits_point(state, version, binding, k):
     """Return whether the innermost frame of a state fits a point of a version: True or False."""
+    return frame_fits(state.frames()[-1], version, binding, k, (state.objects(), state.global_values()))
+
+
+def frame_fits(frame, version, binding, k, around):
+    """Return whether a plain frame fits a point of a version, with the pair of objects and globals around it."""
     row, facts, pairs = version.point(k)
-    function, number, values = state.frames()[-1]
+    function, number, values = frame
     if function != version.function() or number != row:
         return False
     names = bound_names(version, binding)
@@ -62,8 +77,8 @@ def fits_point(state, version, binding, k):
     for place, told in pairs:
         if values[place] != value_at(names, told, registers):
             return False
-    scene = (state.objects(), state.global_values(), names, registers)
-    return all([fact_holds(scene, fact) for fact in facts])
+    objects, global_values = around
+    return fits((objects, global_values, names, registers), facts)
 
 
 def entered(state, version, binding, k):

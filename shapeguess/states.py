@@ -43,6 +43,10 @@ class State:
         """Return the code of a function of the program."""
         return self._codes[name]
 
+    def codes(self):
+        """Return the dict from the names of the functions of the program to their codes."""
+        return dict(self._codes)
+
     def frames(self):
         """Return the list of the frames, from the outermost to the innermost one."""
         return list(self._frames)
@@ -80,7 +84,7 @@ class LaterState(State):
     def __init__(self, state, frames, objects, global_values, shown, end):
         self._program = state.program()
         self._book = state.book()
-        self._codes = {name: state.code(name) for name in state.program().names()}
+        self._codes = state.codes()
         self._frames = tuple(frames)
         self._objects = tuple(objects)
         self._globals = dict(global_values)

@@ -2,22 +2,24 @@
 
 from shapeguess.errors import BadState
 from shapeguess.machine import Machine
+from shapeguess.states import LaterState
+from shapeguess.working import Held, Work
 
 
 def step(state):
     """Return the state after one step."""
     if state.end() is not None:
         raise BadState("end")
-    machine = Machine(state)
-    machine.step()
-    return machine.state()
+    return run(state, 1)[0]
 
 
 def run(state, limit):
     """Return the state after at most limit steps, and the number of the steps that were made."""
-    machine = Machine(state)
+    held = Held(state.objects(), state.global_values(), state.shown())
+    machine = Machine(state.codes(), state.frames(), state.end(), Work(state.program(), state.book(), held))
     steps = 0
-    while steps < limit and not machine.has_ended():
+    while steps < limit and machine.end() is None:
         machine.step()
         steps += 1
-    return machine.state(), steps
+    objects, global_values, shown = held.parts()
+    return LaterState(state, machine.frames(), objects, global_values, shown, machine.end()), steps

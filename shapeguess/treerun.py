@@ -3,7 +3,7 @@
 from shapeguess.rowmaker import operands_of, result_row, statement_row
 from shapeguess.states import start
 from shapeguess.values import NONE
-from shapeguess.working import Held, Thrown, call_of, change, result_of, truth
+from shapeguess.working import Held, Thrown, Work
 
 CALLS = ("call", "method")
 
@@ -23,9 +23,8 @@ class TreeRun:
 
     def __init__(self, program, book, limit):
         self._program = program
-        self._book = book
+        self._work = Work(program, book, Held([], {}, []))
         self._turns_left = limit
-        self._held = Held([], {}, [])
         self._tasks = []
         # The values of operands, until what they belong to is complete.
         self._values = []
@@ -34,7 +33,7 @@ class TreeRun:
 
     def shown(self):
         """Return the list of the shown values."""
-        return self._held.parts()[2]
+        return self._work.held().parts()[2]
 
     def end(self):
         """Return the end, or None."""
@@ -101,9 +100,9 @@ class TreeRun:
         if word == "let":
             self._names[part[1]] = values[0]
         elif word == "if":
-            self._plan("part", part[2] if truth(values[0]) else part[3])
+            self._plan("part", part[2] if self._work.truth(values[0]) else part[3])
         elif word == "while":
-            if truth(values[0]):
+            if self._work.truth(values[0]):
                 self._tasks.append(("again", part))
                 self._plan("part", part[2])
         elif word == "return":
@@ -111,7 +110,7 @@ class TreeRun:
         elif word == "throw":
             raise Thrown(values[0])
         elif word in ("put", "set", "drop", "show"):
-            change(self._held, statement_row(part, list(range(len(values)))), values)
+            self._work.change(statement_row(part, list(range(len(values)))), values)
         elif word != "do":
             self._finish_expression(part, values)
 
@@ -119,10 +118,10 @@ class TreeRun:
         """Complete an expression other than a name."""
         row = result_row(part, None, list(range(len(values))))
         if part[0] in CALLS:
-            name, arguments = call_of(self._program, self._held, row, values)
+            name, arguments = self._work.call(row, values)
             self.enter(name, arguments)
         else:
-            self._values.append(result_of(self._book, self._held, row, values))
+            self._values.append(self._work.result(row, values))
 
     def _taken(self, many):
         """Take the last values away and return them as a list."""

@@ -87,54 +87,67 @@ def applied(book, primitive, values):
     return apply(book, variant, values)
 
 
-def truth(value):
-    """Return whether a bit is yes."""
-    if value[0] != "bit":
-        raise Thrown(("err", "bit"))
-    return value[1] == "yes"
+class Work:
+    """What rows do in a run with registers, and with the objects, globals and shown values that are held."""
 
+    def __init__(self, program, book, held):
+        self._program = program
+        self._book = book
+        self._held = held
 
-def result_of(book, held, row, places):
-    """Return the value that a writing row, other than call and method, puts into its register."""
-    word = row[0]
-    if word == "const":
-        return row[2]
-    if word == "move":
-        return places[row[2]]
-    if word == "global":
-        return held.global_value(row[2])
-    if word == "get":
-        return held.found(places[row[2]], row[3])
-    if word == "new":
-        return held.new_object(places[row[2]])
-    if word == "same":
-        return bit(places[row[2]] == places[row[3]])
-    return applied(book, row[2], [places[place] for place in row[3]])
+    def held(self):
+        """Return what holds the objects, globals and shown values."""
+        return self._held
 
+    def none(self):
+        """Return what stands in a register that was not written yet."""
+        return NONE
 
-def change(held, row, places):
-    """Carry out a put, show, set or drop row, which write no register."""
-    word = row[0]
-    if word == "put":
-        held.put(row[1], places[row[2]])
-    elif word == "show":
-        held.show(places[row[1]])
-    elif word == "set":
-        held.set_own(places[row[1]], row[2], places[row[3]])
-    else:
-        held.drop_own(places[row[1]], row[2])
+    def truth(self, value):
+        """Return whether a bit is yes."""
+        if value[0] != "bit":
+            raise Thrown(("err", "bit"))
+        return value[1] == "yes"
 
+    def result(self, row, places):
+        """Return what a writing row, other than call and method, puts into its register."""
+        word = row[0]
+        if word == "const":
+            return row[2]
+        if word == "move":
+            return places[row[2]]
+        if word == "global":
+            return self._held.global_value(row[2])
+        if word == "get":
+            return self._held.found(places[row[2]], row[3])
+        if word == "new":
+            return self._held.new_object(places[row[2]])
+        if word == "same":
+            return bit(places[row[2]] == places[row[3]])
+        return applied(self._book, row[2], [places[place] for place in row[3]])
 
-def call_of(program, held, row, places):
-    """Return the tuple (name, arguments) of the function that a call or method row calls and of its arguments."""
-    called = places[row[2]]
-    if row[0] == "method":
-        arguments = (called,) + tuple([places[place] for place in row[4]])
-        called = held.found(called, row[3])
-    else:
-        arguments = tuple([places[place] for place in row[3]])
-    if called[0] != "fun" or called[1] not in program.names():
-        raise Thrown(("err", "function"))
-    if len(arguments) != len(program.function(called[1])[1]):
-        raise Thrown(("err", "count"))
-    return (called[1], arguments)
+    def change(self, row, places):
+        """Carry out a put, show, set or drop row, which write no register."""
+        word = row[0]
+        if word == "put":
+            self._held.put(row[1], places[row[2]])
+        elif word == "show":
+            self._held.show(places[row[1]])
+        elif word == "set":
+            self._held.set_own(places[row[1]], row[2], places[row[3]])
+        else:
+            self._held.drop_own(places[row[1]], row[2])
+
+    def call(self, row, places):
+        """Return the tuple (name, arguments) of the function that a call or method row calls and of its arguments."""
+        called = places[row[2]]
+        if row[0] == "method":
+            arguments = (called,) + tuple([places[place] for place in row[4]])
+            called = self._held.found(called, row[3])
+        else:
+            arguments = tuple([places[place] for place in row[3]])
+        if called[0] != "fun" or called[1] not in self._program.names():
+            raise Thrown(("err", "function"))
+        if len(arguments) != len(self._program.function(called[1])[1]):
+            raise Thrown(("err", "count"))
+        return (called[1], arguments)
