@@ -23,7 +23,7 @@ def read_question(branch, value):
     """Return the question for which anything stands, or None if it is not one that stands at the branch."""
     if branch.is_impossible() or not isinstance(value, tuple) or len(value) not in (2, 3):
         return None
-    if not isinstance(value[0], str) or len(value) != (3 if value[0] == "has" else 2):
+    if len(value) != (3 if value[0] == "has" else 2):
         return None
     if value[0] in ("kind", "bit", "which"):
         return read_question_of_term(branch, value)
@@ -94,13 +94,9 @@ def read_term(branch, value, depth):
 def read_variant(branch, value, depth):
     """Return the variant term for which a tuple stands, or None."""
     ground = branch.ground()
-    if len(value) != 3 or not isinstance(value[1], str) or not isinstance(value[2], tuple):
-        return None
-    if not ground.has_variant(value[1]):
+    if len(value) != 3 or not isinstance(value[2], tuple) or not ground.has_variant(value[1]):
         return None
     kinds = ground.signature().variant(value[1])[1]
-    if len(value[2]) != len(kinds):
-        return None
     args = []
     for arg in value[2]:
         # Two equal arguments at each of many levels would else be read so often that it has no end.

@@ -84,7 +84,7 @@ class Branch:
         self._kinds = {}
         # The meanings of start, field and global terms.
         self._meanings = {}
-        # The variant terms that were answered, with their meanings, and the meanings by what the terms come to.
+        # The variant terms that were answered, with their meanings, and the meanings by the keys of variant terms.
         self._answered = []
         self._variant_meanings = {}
         # The keys of variant terms, as far as they were worked out for this branch.
@@ -187,7 +187,6 @@ class Branch:
         other._kinds = dict(self._kinds)
         other._meanings = {term: self._meanings[term] for term in self._meanings}
         other._answered = list(self._answered)
-        other._variant_meanings = dict(self._variant_meanings)
         other._shapes = dict(self._shapes)
         other._has = {pair: self._has[pair] for pair in self._has}
         other._parents = dict(self._parents)
@@ -244,7 +243,7 @@ class Branch:
         elif word == "has":
             self._tell(self._has, question[1:], answer == "yes")
         else:
-            self._tell(self._parents, told, "none" if answer == "none" else self._number_told("obj", answer))
+            self._tell(self._parents, told, self._number_told("obj", answer))
 
     def _number_told(self, kind, answer):
         """Return the number for which an answer stands; make one more object or value known where it is further."""
@@ -299,7 +298,6 @@ class Branch:
             for term, meaning in self._answered:
                 self._keys = {}
                 self._tell(self._variant_meanings, self._key(term), meaning)
-        self._keys = {}
 
     def _key(self, term):
         """Return the number that stands for a variant term and all that count as one with it."""

@@ -30,7 +30,7 @@ class Comparison:
                 if inside is None:
                     return None
                 todo.extend(inside)
-            elif self._branch.gist(one) != self._branch.gist(other) or self._is_unset(one) or self._is_unset(other):
+            elif self._branch.gist(one) != self._branch.gist(other):
                 if not self._may_be_equal(one, other):
                     return None
                 loose.append((one, other))

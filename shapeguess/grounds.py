@@ -84,7 +84,7 @@ class Ground:
         return None if name is None else self._objects[name]
 
     def has_variant(self, name):
-        """Return whether a string is the name of a variant."""
+        """Return whether anything is the name of a variant."""
         for primitive in self._signature.primitives():
             if name in [variant[0] for variant in self._signature.variants(primitive)]:
                 return True

@@ -1,7 +1,10 @@
-"""Makers of versions that guess shapes, functions, variants and globals, or go on at a link (S9.3)."""
+"""Makers of versions that guess shapes, functions, variants and globals, or go on at a link (S9.3).
+
+Wherever new rows would be wrong by themselves, no right version comes of them, which replaced examines.
+"""
 
 from shapeguess.errors import BadShape
-from shapeguess.factparts import is_mark, is_told_shape
+from shapeguess.factparts import is_told_shape
 from shapeguess.quick import end_of, piece, row_of_point
 from shapeguess.replacing import copied_rows, is_behind_break, replaced, with_steps
 
@@ -9,14 +12,10 @@ from shapeguess.replacing import copied_rows, is_behind_break, replaced, with_st
 def with_own(program, version, number, shape):
     """Return the version in which a get or set row guesses a shape that has the field."""
     row = row_with_word(version, number, ("get", "set"))
-    field = row[3] if row[0] == "get" else row[2]
-    check_shape(shape)
-    if field not in shape[1]:
-        raise BadShape()
     if row[0] == "get":
-        quick = ("load", row[1], row[2], shape, field)
+        quick = ("load", row[1], row[2], shape, row[3])
     else:
-        quick = ("store", row[1], shape, field, row[3])
+        quick = ("store", row[1], shape, row[2], row[3])
     new = [shape_check(row, shape), quick]
     return replaced(program, version, number, new, [], version.registers())
 
@@ -24,9 +23,6 @@ def with_own(program, version, number, shape):
 def with_grown(program, version, number, shape):
     """Return the version in which a set row guesses a shape that lacks the field."""
     row = row_with_word(version, number, ("set",))
-    check_shape(shape)
-    if row[2] in shape[1]:
-        raise BadShape()
     new = [shape_check(row, shape), ("grow", row[1], shape, row[2], row[3])]
     return replaced(program, version, number, new, [], version.registers())
 
@@ -45,7 +41,7 @@ def with_method(program, version, number, shape, chain, function):
     """Return the version in which a method row guesses a shape and the function that is found in an object above."""
     row = row_with_word(version, number, ("method",))
     check_chain(shape, chain, row[3])
-    if not isinstance(function, str) or function not in program.names():
+    if function not in program.names():
         raise BadShape()
     x = version.registers()
     mark = ("fun", function)
@@ -58,7 +54,7 @@ def with_variant(program, version, number, variant):
     """Return the version in which a prim row guesses the kinds of its arguments."""
     row = row_with_word(version, number, ("prim",))
     kinds = kinds_of_variant(program.signature(), row[2], variant)
-    if kinds is None or len(kinds) != len(row[3]):
+    if kinds is None:
         raise BadShape()
     checks = [("check", ("kind", place, kind), end_of(row)) for place, kind in zip(row[3], kinds)]
     new = checks + [("variant", row[1], variant, row[3])]
@@ -68,8 +64,6 @@ def with_variant(program, version, number, variant):
 def with_global(program, version, number, mark):
     """Return the version in which a global row guesses the value of the global."""
     row = row_with_word(version, number, ("global",))
-    if not is_mark(program.signature(), mark):
-        raise BadShape()
     watched = [("global", row[2], mark)]
     return replaced(program, version, number, [("const", row[1], mark)], watched, version.registers())
 
@@ -104,11 +98,12 @@ def with_entry(program, version, number, entry):
 
 
 def told_entry(entry, names):
-    """Return an entry of a cell with names of the version in the place of its objects."""
+    """Return an entry of a cell with names of the version in the place of its objects.
+
+    The later shape of a "grow" stays as it is: it has the same root, and is not used.
+    """
     shape, how = entry
-    if how[0] == "grow":
-        how = (how[0], told_shape(how[1], names), how[2])
-    elif how[0] == "up":
+    if how[0] == "up":
         chain = tuple([(told_object(number, names), told_shape(inner, names)) for number, inner in how[1]])
         how = (how[0], chain, how[2])
     return (told_shape(shape, names), how)
@@ -140,7 +135,7 @@ def shape_check(row, shape):
 
 
 def check_shape(shape):
-    """Raise BadShape unless anything is a shape; whether its root is a name of the version is examined later."""
+    """Raise BadShape unless anything is a shape, whatever its root is."""
     if not is_told_shape(shape):
         raise BadShape()
 
@@ -155,7 +150,7 @@ def check_chain(shape, chain, field):
         if not isinstance(link, tuple) or len(link) != 2 or field in below[1]:
             raise BadShape()
         check_shape(link[1])
-        if below[0] is None or link[0] != below[0]:
+        if link[0] != below[0]:
             raise BadShape()
         below = link[1]
     if field not in below[1]:

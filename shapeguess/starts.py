@@ -2,7 +2,6 @@
 
 from shapeguess.alike import alike, pairing
 from shapeguess.facts import fits
-from shapeguess.plainrows import CALLING
 from shapeguess.points import bound_names, entered, fits_point, frame_at, names_right, told_frames
 from shapeguess.quick import end_of, steps_told
 from shapeguess.quickrun import quick_run
@@ -50,9 +49,8 @@ class Race:
             return False
         if self._word == "return":
             return self._returns_alike()
-        plain = self._plain_state()
-        if plain is None or plain.end() is not None:
-            return False
+        # Where there are not so many steps, the plain run has an end, and no state with a frame is like that.
+        plain, _ = run(self._state, steps_told(self._version, self._number))
         pairs = pairing(plain, self._with_frames(self._told_frames()))
         if pairs is None or not self._next_facts_hold():
             return False
@@ -61,12 +59,6 @@ class Race:
     def _row(self):
         """Return the quick row that ended the quick run."""
         return self._version.row(self._number)
-
-    def _plain_state(self):
-        """Return the state behind the plain steps that are told, or None if there are not so many."""
-        steps = steps_told(self._version, self._number)
-        state, made = run(self._state, steps)
-        return state if made == steps else None
 
     def _told_frames(self):
         """Return the list of the frames that stand in the place of the innermost one behind the quick run."""
@@ -84,8 +76,7 @@ class Race:
         """Return whether the facts of the next point, if there is one, hold."""
         if self._word not in ("link", "call"):
             return True
-        row = self._row()
-        _, facts, _ = self._version.point(row[2] if self._word == "link" else row[-1])
+        _, facts, _ = self._version.point(self._row()[-1])
         objects, global_values, _ = self._held
         return fits((objects, global_values, bound_names(self._version, self._binding), self._registers), facts)
 
@@ -93,11 +84,9 @@ class Race:
         """Return whether the plain run calls the same function with the same arguments, by a pairing of objects."""
         name, number, places = plain.frames()[-1]
         work = Work(self._program, plain.book(), Held(plain.objects(), plain.global_values(), plain.shown()))
-        row = plain.code(name).row(number)
-        if row[0] not in CALLING:
-            return False
         try:
-            called, arguments = work.call(row, places)
+            # The frames are alike, so that this is a call or method row, too, and its arguments are paired.
+            called, arguments = work.call(plain.code(name).row(number), places)
         except Thrown:
             return False
         return (called, tuple([paired_value(pairs, value) for value in arguments])) == self._called
@@ -120,7 +109,5 @@ class Race:
 
 
 def paired_value(pairs, value):
-    """Return the value that a pairing of objects pairs with a value, or None if it pairs none with it."""
-    if value[0] != "obj":
-        return value
-    return ("obj", pairs[value[1]]) if value[1] in pairs else None
+    """Return the value that a pairing of objects pairs with a value."""
+    return ("obj", pairs[value[1]]) if value[0] == "obj" else value

@@ -86,13 +86,8 @@ class TermHeld:
         return meaning
 
     def object_at(self, term):
-        """Return the object for which a term stands, whose shape is known then, or None if it is no object."""
-        if self.kind(term) != "obj":
-            return None
-        found = self.settled(term)
-        if found[0] == "known":
-            self._shape(found[1])
-        return found
+        """Return the object for which a term stands, or None if it is no object. Its shape is needed by all who ask."""
+        return self.settled(term) if self.kind(term) == "obj" else None
 
     def thrown_object_at(self, term):
         """Return the object for which a term stands; throw if it is none."""

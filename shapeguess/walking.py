@@ -69,7 +69,7 @@ class QuickWalk:
         row = self.row()
         if self._word not in ("link", "call"):
             return True
-        _, facts, _ = self._ground.version().point(row[2] if self._word == "link" else row[-1])
+        _, facts, _ = self._ground.version().point(row[-1])
         return all([self._work.holds(fact, self._terms) for fact in facts])
 
     def told_frames(self):
@@ -123,7 +123,7 @@ class PlainWalk:
 
     def returned(self):
         """Return the term that the frame at which the walk began returns next, or None if it does not do so."""
-        if self.has_left() or len(self.frames()) != 1 or self.row()[0] != "return":
+        if len(self.frames()) != 1 or self.row()[0] != "return":
             return None
         return self.frames()[0][2][self.row()[1]]
 

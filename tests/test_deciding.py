@@ -243,6 +243,43 @@ class OneThingOff(DecideTest):
             self.assertIn(2, [r for r, _ in piece.places(2)])
             self.point(word, piece, version)
 
+    def test_questions_about_results_of_primitives(self):
+        """Where a test depends on what a primitive gives, this is asked, also for primitives within one another."""
+        piece = Piece("fun main(a, b) {if less(add(a, b), b) {show a;} return b;}")
+        self.assertEqual([row[0] for row in piece.code.rows()][:4], ["prim", "prim", "test", "show"])
+        rows = [("check", ("kind", q, "num"), piece.end(0, 0)) for q in (0, 1)]
+        rows += [("variant", 4, "addnum", (0, 1)), ("variant", 4, "lessnum", (4, 1)), ("test", 4, 7), ("link", 3, 1), ("link", 3, 2)]
+        version = piece.version(rows, points=[(3, ()), (4, ())])
+        self.point("closed", piece, version)
+        term = ("variant", "lessnum", (("variant", "addnum", (S0, ("start", 1))), ("start", 1)))
+        self.assertIn(repr(("bit", term)), repr(decide_point(piece.program, version, 0)))
+        turned = piece.version(rows[:5] + [rows[6], rows[5]], points=[(3, ()), (4, ())])
+        self.point("open", piece, turned)
+        self.point("open", piece, piece.version(rows[:3] + [("variant", 4, "lessnum", (1, 4))] + rows[4:], points=[(3, ()), (4, ())]))
+
+    def test_starts_with_several_objects(self):
+        """What one object has, another one has not."""
+        piece = Piece("fun main(a, b) {let c = a.f; let d = b.f; show d; return c;}")
+        end = piece.end(0, 0)
+        for one, other, word in (("f", "f", "closed"), ("f", "g", "open"), ("g", "f", "open")):
+            rows = [("get", 2, 0, one, end), ("get", 3, 1, other, piece.end(1, 1)), ("link", 2, 1)]
+            self.point(word, piece, piece.version(rows, points=[(2, ())]))
+        # Where a has the field and b has it not, the get of b tells an end to which the plain run does not come.
+        rows = [("get", 2, 0, "f", end), ("get", 3, 1, "f", piece.end(2, 2, r3=("reg", 2))), ("link", 2, 1)]
+        self.point("open", piece, piece.version(rows, points=[(2, ())]))
+        # A get changes nothing, so that it may be made again.
+        rows = [("get", 2, 0, "f", end), ("get", 3, 1, "f", end), ("link", 2, 1)]
+        self.point("closed", piece, piece.version(rows, points=[(2, ())]))
+
+    def test_starts_where_places_are_names_and_values(self):
+        piece = Piece("fun main(a, b, c) {show a; show b; show c; return a;}")
+        places = ((0, ("name", "n")), (1, val(num(4))), (2, ("reg", 3)))
+        end = (1, (("main", 1, places),))
+        for rows, word in (([("const", 4, ("name", "n")), ("show", 4), ("stop", end)], "closed"), ([("show", 3), ("stop", end)], "open"),
+                           ([("const", 4, num(4)), ("show", 4), ("stop", end)], "open")):
+            version = Version("main", ["n"], [], 6, [("point", 0)] + rows, [(0, (), places)])
+            self.point(word, piece, version)
+
     def test_impossible_points_are_closed(self):
         piece = Piece("fun main(a) {show a; return a;}")
         stuck = [("const", 1, NONE), ("test", 1, 3), ("stop", piece.end(0, 0))]

@@ -84,6 +84,18 @@ class StepsAlone(EngineTest):
                     plain, _ = run(plain, 1)
                 self.assertEqual(engine.log(), [("step", 1, ())] * engine.steps())
 
+    def test_each_error(self):
+        """What throws in the plain machine throws here, and what is tried a second time is the same."""
+        for body, word in (("return $h;", "global"), ("return new(new(new(new(none))));", "deep"), ("return new(a);", "object"), ("return a.f;", "object"),
+                           ("a.f = a;", "object"), ("drop a.f;", "object"), ("return new(none).f;", "field"), ("drop new(none).f;", "field"),
+                           ("return a.m();", "object"), ("return new(none).m();", "field"), ("return add(a, a);", "kind"), ("if none {}", "bit"),
+                           ("return call a();", "function"), ("return call &main();", "count")):
+            program = program_of("fun main(a) {" + body + "}")
+            play = self.play(program, [YES])
+            while play.engine.end() is None:
+                play.do("step")
+            self.assertEqual(play.engine.end(), ("thrown", ("err", word)))
+
     def test_waiting_frames(self):
         state, _ = run(start(PROGRAM, BOOK, "main", [num(1)]), 9)
         self.assertEqual([frame[0] for frame in state.frames()], ["main", "inc"])
@@ -620,6 +632,19 @@ class TwinsAndEquality(EngineTest):
         other.do(("enter", 1, 0))
         other.do(("back",))
         self.assertNotEqual(engine, other)
+        # Globals, shown values and objects alone.
+        piece = Piece("fun main(a) {return a;}")
+        engine = engine_at(piece, (YES,), [(None, (("f", YES),))], {"g": YES})
+        self.assertEqual(engine, engine_at(piece, (YES,), [(None, (("f", YES),))], {"g": YES}))
+        for objects, told in (([(None, (("f", NO),))], {"g": YES}), ([(None, (("f", YES),))], {"g": NO}), ([], {"g": YES}), ([(None, ())], {"g": YES})):
+            self.assertNotEqual(engine, engine_at(piece, (YES,), objects, told))
+        # The versions alone, or the cell that was cleared.
+        for one, two in ((("put", slow(PROGRAM, "bad"), ()), ("put", slow(PROGRAM, "inc"), ())), (("clear", "main", 8), ("clear", "main", 3))):
+            engine, other = self.filled(), self.filled()
+            engine.do(one)
+            other.do(two)
+            self.assertEqual((engine.log(), engine.frames()), (other.log(), other.frames()))
+            self.assertNotEqual(engine, other)
         # A cell that was cleared has the same entries again, but more rises.
         engine, other = self.filled(), self.filled()
         for one, choices in ((engine, [("clear", "inc", 0), ("step",)]), (other, [("step",), ("clear", "inc", 0)])):
@@ -645,7 +670,10 @@ class TwinsAndEquality(EngineTest):
 
     def test_numbers_of_shapes_do_not_count(self):
         """One engine comes to a shape that the other one never has; the versions are not closed, but count the same."""
-        piece = Piece("fun main(a) {a.e = a; return a;}")
+        for text in ("fun main(a) {a.e = a; return a;}", "fun main(a) {let o = new(a); let b = o.f; return b;}"):
+            self.compare_numbers(Piece(text))
+
+    def compare_numbers(self, piece):
         end, places = piece.end(0, 0), [(0, (), piece.places(0))] * 2
         changing = [("point", 0), ("set", 0, "x", 0, end), ("link", 1, 1), ("point", 1), ("drop", 0, "x", end), ("link", 1, 0)]
         idle = [("point", 0), ("link", 1, 1), ("point", 1), ("link", 1, 0)]
@@ -654,10 +682,12 @@ class TwinsAndEquality(EngineTest):
             engine = engine_at(piece, (obj(0),), [(None, (("f", YES),))])
             for rows in (changing, idle):
                 engine.do(("put", Version("main", [], [], 3, rows, places), ()))
-            for choice in (("enter", v, 0), ("step",), ("step",), ("back",), ("step",)):
+            for choice in (("enter", v, 0), ("step",), ("step",), ("back",), ("step",), ("step",)):
                 engine.do(choice)
             made.append(engine)
-        self.assertEqual([engine.cells()[("main", 0)] for engine in made], [[(0, ("grow", 2, 1))], [(0, ("grow", 1, 1))]])
+        cells = [list(engine.cells().values()) for engine in made]
+        self.assertNotEqual(cells[0], cells[1])
+        self.assertIn(cells, ([[[(0, ("grow", 2, 1))]], [[(0, ("grow", 1, 1))]]], [[[(2, ("up", ((0, 0),), 0))]], [[(1, ("up", ((0, 0),), 0))]]]))
         self.assertNotEqual(made[0].table(), made[1].table())
         self.assertEqual(made[0], made[1])
 

@@ -245,6 +245,12 @@ class Refused(InsideTest):
         piece = Piece("fun main(a, b) {let c = call a(b); return c;} fun f(x) {let y = call x(x); return y;} fun g(x) {let y = x.m(); return y;}")
         for name in ("f", "g"):
             self.refused(slow(piece.program, name), slow(piece.program, "main"), 1, piece)
+        # Also where the link would fit a point of the outer version.
+        one, version = Piece(TEXT, "f"), version_with_call(points=((1, ()), (0, ())))
+        rows = [("point", 0), ("link", 1, 2), ("point", 1), ("stop", one.end(0, 0)), ("point", 2), ("stop", one.end(0, 0))]
+        inner = Version("f", [], [], 2, rows, [(0, (), one.places(0))] * 3)
+        check_version(MAIN.program, inner)
+        self.refused(inner, version)
         # In other pieces they may stand.
         f = Piece(TEXT, "f")
         rows = [("point", 0), ("show", 0), ("return", 1, 1), ("point", 1), ("link", 1, 0)]

@@ -216,6 +216,37 @@ class PuttingAndEntering(DriverTest):
             self.assertIs(caught.exception.number, v)
         self.assertEqual(driver.goings_back(2), 0)
 
+    def test_goings_back_of_versions_of_others(self):
+        """The engine begins in a version that is not the driver's own, goes back from it, and calls in it."""
+        piece = Piece(TEXT, "f")
+        stop = Version("f", [], [], 3, [("point", 0), ("stop", piece.end(0, 0))], [(0, (), piece.places(0))])
+        engine = self.engine()
+        while engine.frames()[-1] != ("plain", "f", 0):
+            engine.do(("step",))
+        engine.do(("put", stop, ()))
+        engine.do(("enter", 0, 0))
+        driver = self.driver(1, 0, nothing, engine)
+        self.assertEqual([driver.go(), driver.go()], [("step",), ("step",)])
+        self.assertEqual(driver.engine().log()[-2:], [("step", 0, ()), ("step", 1, ())])
+        self.assertEqual(driver.own(), [])
+
+    def test_lesser_versions_where_greater_ones_do_not_fit(self):
+        piece = Piece(TEXT, "f")
+        made = [Version("f", [], [], 3, [("point", 0), ("stop", piece.end(0, 0))], [(0, facts, piece.places(0))])
+                for facts in ((), (("kind", 0, "num"),), (("kind", 0, "col"),))]
+        order = [made[1], made[0], made[2]]
+        driver = self.driver(1, 9, lambda engine, function: (order.pop(0), ()) if function == "f" and order else None)
+        made = self.choices_until(driver, "enter")
+        self.assertEqual((made[-1], driver.own()), (("enter", 1, 0), [0, 1]))
+        while len(driver.own()) < 3:
+            made.append(driver.go())
+        self.assertEqual({choice for choice in made if choice[0] == "enter"}, {("enter", 1, 0)})
+        while driver.engine().end() is None:
+            made.append(driver.go())
+        # Behind the third one, which never fits, the second one is still entered, up to its tenth going back.
+        self.assertEqual(driver.goings_back(1), 10)
+        self.assertIn(("throw", 1), made)
+
     def test_own_is_new(self):
         driver = self.driver(1, 9, slow_of)
         self.choices_until(driver, "put")

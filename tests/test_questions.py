@@ -201,6 +201,12 @@ class BitsAndWhich(Asking):
         for term in (line, tree):
             self.stands(("which", term), ("kind", S0), "num")
             self.falls(("which", term))
+        # Deep down, too, each argument counts.
+        for last, fine in ((S1, True), (S2, False), (val(num(2)), False), (val(None), False), (val([]), False), ([], False)):
+            term = variant("addnum", S0, last)
+            for _ in range(20):
+                term = variant("addnum", S0, term)
+            self.assertEqual(self.ask(("which", term), ("kind", S0), "num", ("kind", S1), "num", ("kind", S2), "col"), fine)
 
 
 class AboutObjects(Asking):
@@ -354,6 +360,10 @@ class Settled(unittest.TestCase):
     def test_same_terms(self):
         facts = [("same", 1, 2), ("same", 2, 0)]
         self.assertEqual(self.at(S1, ("kind", S0), "bit", ("bit", S2), "yes", facts=facts), val(YES))
+        for facts, settled in (([("same", 0, 1)], [True, True, False]), ([("same", 2, 0)], [True, False, True]), ([("same", 1, 2)], [True, False, False]),
+                               ([("same", 2, 2)], [True, False, False])):
+            told = [self.at(term, ("kind", S0), "none", facts=facts) is not None for term in (S0, S1, S2)]
+            self.assertEqual(told, settled)
 
     def test_variant_terms_that_count_as_one(self):
         numbers = [("kind", S0), "num", ("kind", S1), "num"]

@@ -234,6 +234,11 @@ class PlainWalks(WalkTest):
         version = piece.version([("drop", 0, "f", piece.end(0, 0)), ("set", 0, "f", 1, piece.end(1, 1)),
                                  ("stop", piece.end(3, 3, r2=("reg", 1)))])
         self.along("alike", piece, version, *an_object(S0), ("has", 0, "f"), "yes")
+        piece = Piece("fun main(a, b) {a.f = b; let c = a.f; return c;}")
+        rows = [("set", 0, "f", 1, piece.end(0, 0)), ("get", 4, 0, "f", piece.end(0, 0)), ("stop", piece.end(2, 2, r2=("reg", 4)))]
+        for version in (piece.version(rows), piece.version(rows[:1] + [("stop", piece.end(2, 2, r2=("reg", 1)))])):
+            for answer in ("yes", "no"):
+                self.along("alike", piece, version, *an_object(S0), ("has", 0, "f"), answer)
         piece = Piece("fun main(a, b) {a.f = b; drop a.f; let c = a.f; return c;}")
         rows = [("set", 0, "f", 1, piece.end(0, 0)), ("drop", 0, "f", piece.end(1, 1))]
         version = piece.version(rows + [("stop", piece.end(3, 3, r2=val(NONE)))])
@@ -420,6 +425,10 @@ class Calls(WalkTest):
         for answer, expected in ((0, "unlike"), (1, "alike"), (2, "unlike"), ("further", "unlike")):
             self.along(expected, self.piece, version, *known(S0, "fun", answer))
         self.along("unlike", self.piece, version, ("kind", S0), "err")
+        # The plain walk ends before.
+        version = self.piece.version([("const", 3, ("fun", "one")), ("call", 2, 3, (1,), self.piece.end(9, 0), 1)], points=[(1, ())])
+        for answer in (0, 1):
+            self.along("unlike", self.piece, version, *known(S0, "fun", answer))
         # A function that is not called needs nothing of the plain walk: it goes back at once.
         for name in ("two", "other"):
             self.along("alike", self.piece, self.call([("const", 3, ("fun", name)), ("call", 2, 3, (1,))]))
@@ -660,6 +669,17 @@ class Comparisons(WalkTest):
         self.at("unlike", piece, version(drop, f, ("drop", "g"), g), *found, *fields, *values)
         self.at("unlike", piece, version(f, g), *found, *fields, *values)
 
+    def test_fields_put_since_get_other_values(self):
+        piece = Piece("fun main(a, b) {drop a.e; a.e = a; a.e = b; a.f = b; return a;}")
+        found = an_object(S0) + [("has", 0, "e"), "yes", ("has", 0, "f"), "yes"]
+        drop, one, two, f = [("drop", 0, "e", piece.end(0, 0))] + [("set", 0, field, q, piece.end(0, 0)) for field, q in (("e", 0), ("e", 1), ("f", 1))]
+        for rows, expected in (([drop, one, two, f], "alike"), ([drop, two, f], "alike"), ([f, drop, two], "alike"), ([drop, f], "unlike"),
+                               ([drop, two, one, two, f], "alike"), ([two, f], "unlike"), ([f], "unlike"), ([drop, f, two, drop], "unlike")):
+            self.at(expected, piece, piece.version(rows + [("link", 4, 1)], points=[(4, ())]), *found)
+        version = piece.version([drop, two, one, f, ("link", 4, 1)], points=[(4, ())])
+        self.at("open", piece, version, *found)
+        self.at("unlike", piece, version, *found, ("kind", S1), "num")
+
     def test_a_value_that_was_set_and_dropped_is_forgotten(self):
         piece = Piece("fun main(a, b) {a.f = b; drop a.f; return a;}")
         version = piece.version([("drop", 0, "f", piece.end(0, 0)), ("link", 2, 1)], points=[(2, ())])
@@ -709,6 +729,22 @@ class Comparisons(WalkTest):
         for shown, expected in (((1, 2, 1), "alike"), ((2, 1, 2), "alike"), ((1, 1, 1), "unlike"), ((1, 2, 2), "unlike")):
             rows = make + [("show", shown[0]), ("show", shown[1]), ("return", 6, shown[2])]
             self.along(expected, piece, piece.version(rows))
+
+    def test_fresh_objects_are_nothing_else(self):
+        piece = Piece("fun main(a) {let b = new(none); show a; show b; show b; return a;}")
+        make = [("const", 4, NONE), ("new", 1, 4, piece.end(0, 0)), ("new", 2, 4, piece.end(0, 0))]
+        for shown, expected in (((0, 1, 1), "alike"), ((1, 1, 1), "unlike"), ((0, 0, 1), "unlike"), ((0, 1, 2), "unlike"), ((0, 2, 2), "alike"),
+                                ((0, 1, 0), "unlike")):
+            version = piece.version(make + [("show", q) for q in shown] + [("link", 5, 1)], points=[(5, ())])
+            self.along(expected, piece, version)
+
+    def test_own_fields_of_fresh_objects_with_parents(self):
+        piece = Piece("fun main(a) {let b = new(none); let c = new(b); c.f = a; show c; return a;}")
+        back = piece.end(0, 0)
+        make = [("const", 4, NONE), ("new", 1, 4, back), ("new", 2, 1, back)]
+        for fields, parent, expected in ((("f",), (), "alike"), ((), (), "unlike"), (("g",), (), "unlike"), (("f", "g"), (), "unlike"), (("f",), ("f",), "unlike")):
+            rows = make + [("set", 2, field, 0, back) for field in fields] + [("set", 1, field, 0, back) for field in parent]
+            self.along(expected, piece, piece.version(rows + [("show", 2), ("link", 5, 1)], points=[(5, ())]))
 
     def test_parents_of_fresh_objects(self):
         piece = Piece("fun main(a) {let b = new(a); return b;}")
