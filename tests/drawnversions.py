@@ -6,7 +6,7 @@ from samples import FIELDS, GLOBALS, LOCALS, NO, NONE, YES, Maker, ground, num
 from shapeguess.checking import check_version
 from shapeguess.errors import BadShape, BadVersion
 from shapeguess.inside import put_inside
-from shapeguess.quick import Version, end_of
+from shapeguess.quick import end_of
 from shapeguess.slow import slow
 from shapeguess.special import (gone_on, with_above, with_global, with_grown, with_method, with_own, with_variant)
 from shapeguess.trees import Program
@@ -42,7 +42,8 @@ class VersionMaker:
         return self.random.choice(list(members))
 
     def program(self):
-        return Program(ground(), [self.function("main", ("a", "b")), self.function("f", ("a",)), self.function("k", ("none", "b"))])
+        return Program(ground(), [self.function("main", ("a", "b")), self.function("f", ("a",)),
+                                  self.function("k", ("none", "b"))])
 
     def function(self, name, parameters):
         head = tuple(("let", x, self.maker.expression_of_start()) for x in LOCALS if x not in parameters)

@@ -4,7 +4,7 @@ from shapeguess.alike import alike, reached
 from shapeguess.choices import can_do
 from shapeguess.errors import BadChoice, BadShape
 from shapeguess.inside import put_inside
-from shapeguess.quick import Version, end_of, piece
+from shapeguess.quick import end_of, piece
 from shapeguess.slow import slow
 from shapeguess.special import gone_on, specialized, with_global, with_method
 from shapeguess.steps import run
@@ -131,7 +131,3 @@ class Guessing:
                 break
             version = gone_on(program, version, links[0])
         return version
-
-
-def nameless(function, registers, rows, points, watched=()):
-    return Version(function, [], list(watched), registers, rows, points)

@@ -27,7 +27,8 @@ def obj(number):
 def engine_of(a=obj(1), b=NO, told=None, shown=()):
     """Objects 0 and 1 are reached from the frame, 2 and 3, 1, 0 and 4 from the rest; 5 is reached from nowhere."""
     rest = (NONE,) * (PIECE.code.registers() - 2)
-    return Engine(State(PIECE.program, BOOK, [("main", 0, (a, b) + rest)], OBJECTS, told or {"g": obj(2), "h": YES}, list(shown)), 2)
+    return Engine(State(PIECE.program, BOOK, [("main", 0, (a, b) + rest)], OBJECTS, told or {"g": obj(2), "h": YES},
+                        list(shown)), 2)
 
 
 class CanTest(unittest.TestCase):
@@ -54,11 +55,16 @@ class NoChoices(CanTest):
     def test_things_of_every_kind(self):
         engine = engine_of()
         engine.do(("put", slow(PIECE.program, "main"), ()))
-        for value in STRANGE + ("step", ["step"], [("step",)], (("step",),), Shapes(), engine, PIECE.program, slow(PIECE.program, "main"),
-                                engine.rebuilt(), ("step", "step"), ("step", ()), (["step"],), ("Step",), ("", 0), (0,), (None,), (("step",), 0),
-                                ({"step": 1},), ("back", 0), ("enter",), ("enter", 0), ("enter", 0, 0, 0), ("clear", "main"), ("clear", "main", 0, 0),
-                                ("put", slow(PIECE.program, "main")), ("put", slow(PIECE.program, "main"), (), ()), ("throw",), ("throw", 0, 0),
-                                ["enter", 0, 0], ["throw", 0], ["clear", "main", 0], ["put", slow(PIECE.program, "main"), ()]):
+        for value in STRANGE + ("step", ["step"], [("step",)], (("step",),), Shapes(), engine, PIECE.program,
+                                slow(PIECE.program, "main"),
+                                engine.rebuilt(), ("step", "step"), ("step", ()), (["step"],), ("Step",), ("", 0),
+                                (0,), (None,), (("step",), 0),
+                                ({"step": 1},), ("back", 0), ("enter",), ("enter", 0), ("enter", 0, 0, 0),
+                                ("clear", "main"), ("clear", "main", 0, 0),
+                                ("put", slow(PIECE.program, "main")), ("put", slow(PIECE.program, "main"), (), ()),
+                                ("throw",), ("throw", 0, 0),
+                                ["enter", 0, 0], ["throw", 0], ["clear", "main", 0],
+                                ["put", slow(PIECE.program, "main"), ()]):
             self.not_this(engine, value)
 
     def test_members_of_every_kind(self):
@@ -117,9 +123,11 @@ class StepsAndFrames(CanTest):
     def test_enter_where_facts_and_places_fit(self):
         stop = ("stop", PIECE.end(0, 0))
         for facts, names, objects, fits in (
-            ([("kind", 0, "obj")], [], (), True), ([("kind", 0, "num")], [], (), False), ([("is", 0, ("name", "n"))], ["n"], (1,), True),
+            ([("kind", 0, "obj")], [], (), True), ([("kind", 0, "num")], [], (), False),
+                                            ([("is", 0, ("name", "n"))], ["n"], (1,), True),
             ([("is", 0, ("name", "n"))], ["n"], (0,), False), ([("shape", 0, ("n", ("e",)))], ["n"], (0,), True),
-            ([("shape", 0, ("n", ("e",)))], ["n"], (2,), False), ([("unlike", 0, 1)], [], (), True), ([("same", 0, 1)], [], (), False),
+            ([("shape", 0, ("n", ("e",)))], ["n"], (2,), False), ([("unlike", 0, 1)], [], (), True),
+                                            ([("same", 0, 1)], [], (), False),
         ):
             engine = engine_of()
             engine.do(("put", PIECE.version([stop], facts, names), objects))
@@ -127,7 +135,8 @@ class StepsAndFrames(CanTest):
         for place, fits in ((val(NO), True), (val(YES), False), (("name", "n"), False)):
             engine = engine_of()
             places = PIECE.places(0, r1=place)
-            version = Version("main", ["n"], [], 6, [("point", 0), ("stop", (0, (("main", 0, places),)))], [(0, (), places)])
+            version = Version("main", ["n"], [], 6, [("point", 0), ("stop", (0, (("main", 0, places),)))],
+                              [(0, (), places)])
             engine.do(("put", version, (2,)))
             (self.yes if fits else self.no)(engine, "enter", 0, 0)
 
@@ -142,7 +151,8 @@ class Clearing(CanTest):
             else:
                 self.no(engine, "clear", "main", at)
         self.assertTrue({"get", "set", "method", "call", "show", "const"} <= set(words.values()))
-        for function, row in (("f", 0), ("zz", 0), ("main", -1), ("main", True), ("main", False), ("main", None), (None, 0), (("main",), 0),
+        for function, row in (("f", 0), ("zz", 0), ("main", -1), ("main", True), ("main", False), ("main", None),
+                              (None, 0), (("main",), 0),
                               ("main", (0,)), (["main"], 0), ("main", [0])):
             self.no(engine, "clear", function, row)
         while engine.end() is None:
@@ -159,11 +169,15 @@ class Putting(CanTest):
         good = self.version(names=["n"], watched=[("holds", "n", (None, ()))])
         self.yes(engine, "put", good, (2,))
         for bent in (
-            {"function": "zz"}, {"function": None}, {"names": ["n", "n"]}, {"names": ("n",)[0]}, {"names": ["N"]}, {"watched": [None]},
-            {"watched": [("holds", "o", (None, ()))]}, {"registers": -1}, {"registers": True}, {"registers": None}, {"rows": []},
+            {"function": "zz"}, {"function": None}, {"names": ["n", "n"]}, {"names": ("n",)[0]}, {"names": ["N"]},
+                     {"watched": [None]},
+            {"watched": [("holds", "o", (None, ()))]}, {"registers": -1}, {"registers": True}, {"registers": None},
+                     {"rows": []},
             {"rows": [("point", 0)]}, {"rows": [("stop", PIECE.end(0, 0))]}, {"rows": [("point", 0), ("link", 0, 0)]},
-            {"rows": [("point", 0), ("jump", 1)]}, {"rows": None}, {"points": []}, {"points": None}, {"points": [None]}, {"function": "f"},
-            {"rows": [("point", 0), ("stop", PIECE.end(0, 1))]}, {"rows": [("point", 0), ("show", 5), ("stop", PIECE.end(0, 0))]},
+            {"rows": [("point", 0), ("jump", 1)]}, {"rows": None}, {"points": []}, {"points": None},
+                     {"points": [None]}, {"function": "f"},
+            {"rows": [("point", 0), ("stop", PIECE.end(0, 1))]},
+                     {"rows": [("point", 0), ("show", 5), ("stop", PIECE.end(0, 0))]},
         ):
             self.no(engine, "put", with_part(good, **bent), (2,))
         for value in (None, parts_of(good), tuple(parts_of(good)), PIECE.program, engine):
@@ -184,15 +198,18 @@ class Putting(CanTest):
             rows = [("point", 0), ("stop", end), ("point", 1), ("stop", (0, (("main", 0, places),)))]
             for version in (
                 PIECE.version([("const", 5, token), ("stop", end)]), self.version(facts=[("is", 1, token)]),
-                PIECE.version([("check", ("is", 0, token), end), ("stop", end)]), PIECE.version([("stop", PIECE.end(0, 0, r0=val(token)))]),
+                PIECE.version([("check", ("is", 0, token), end), ("stop", end)]),
+                            PIECE.version([("stop", PIECE.end(0, 0, r0=val(token)))]),
                 Version("main", [], [], 5, rows, [point, (0, (), places)]),
-                Version("main", [], [], 5, rows[:3] + [("stop", PIECE.end(0, 0, r1=val(NONE)))], [point, (0, (), places)]),
+                Version("main", [], [], 5, rows[:3] + [("stop", PIECE.end(0, 0, r1=val(NONE)))],
+                        [point, (0, (), places)]),
             ):
                 (self.yes if fine else self.no)(engine, "put", version, ())
         for fact in (("global", "g", num(3)), ("slot", "n", "f", num(3))):
             self.no(engine, "put", self.version(names=["n"], watched=[fact]), (0,))
         # Words of fields do not make tokens.
-        self.yes(engine, "put", PIECE.version([("check", ("shape", 0, ("tok", ("num", "tok"))), end), ("stop", end)], names=["tok"]), (0,))
+        self.yes(engine, "put", PIECE.version([("check", ("shape", 0, ("tok", ("num", "tok"))), end), ("stop", end)],
+                                              names=["tok"]), (0,))
 
     def test_objects(self):
         engine = engine_of()
@@ -200,7 +217,8 @@ class Putting(CanTest):
         for number in (0, 1, 2):
             self.yes(engine, "put", one, (number,))
         # Objects 3 and 4 are reached from nowhere yet, nor is 5; there is no object 6.
-        for objects in ((3,), (4,), (5,), (6,), (-1,), (True,), (False,), ("0",), (None,), ((0,),), ([0],), (10 ** 40,), (), (0, 1), [0], {0: 0},
+        for objects in ((3,), (4,), (5,), (6,), (-1,), (True,), (False,), ("0",), (None,), ((0,),), ([0],),
+                        (10 ** 40,), (), (0, 1), [0], {0: 0},
                         None, 0, "0", Shapes()):
             self.no(engine, "put", one, objects)
         for objects in ((0, 1), (2, 0)):
@@ -213,7 +231,8 @@ class Putting(CanTest):
     def test_objects_that_are_reached(self):
         one = self.version(names=["n"])
         reached = {
-            "frame": engine_of(a=obj(3)), "global": engine_of(told={"g": obj(3)}), "shown": engine_of(shown=[obj(3)]), "b": engine_of(b=obj(3)),
+            "frame": engine_of(a=obj(3)), "global": engine_of(told={"g": obj(3)}), "shown": engine_of(shown=[obj(3)]),
+                   "b": engine_of(b=obj(3)),
         }
         for engine in reached.values():
             # From object 3 its parents and the contents of its fields.
@@ -232,10 +251,13 @@ class Putting(CanTest):
     def test_watched_facts(self):
         engine = engine_of()
         for fact, objects, holds in (
-            (("global", "h", YES), (0, 1), True), (("global", "h", NO), (0, 1), False), (("global", "k", YES), (0, 1), False),
+            (("global", "h", YES), (0, 1), True), (("global", "h", NO), (0, 1), False),
+                                     (("global", "k", YES), (0, 1), False),
             (("global", "g", ("name", "n")), (2, 1), True), (("global", "g", ("name", "n")), (0, 1), False),
-            (("holds", "n", (None, ("f",))), (0, 1), True), (("holds", "n", (None, ("f",))), (1, 0), False), (("holds", "o", ("n", ("e",))), (0, 1), True),
-            (("holds", "o", ("n", ("e",))), (2, 1), False), (("slot", "n", "f", YES), (0, 1), True), (("slot", "n", "f", NO), (0, 1), False),
+            (("holds", "n", (None, ("f",))), (0, 1), True), (("holds", "n", (None, ("f",))), (1, 0), False),
+                                     (("holds", "o", ("n", ("e",))), (0, 1), True),
+            (("holds", "o", ("n", ("e",))), (2, 1), False), (("slot", "n", "f", YES), (0, 1), True),
+                                     (("slot", "n", "f", NO), (0, 1), False),
             (("slot", "n", "e", NO), (0, 1), False), (("slot", "o", "e", NO), (0, 1), True),
         ):
             version = self.version(names=["n", "o"], watched=[fact])

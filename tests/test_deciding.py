@@ -124,18 +124,22 @@ class OneThingOff(DecideTest):
         self.pair(piece, [get, ("show", 1), ("link", 2, 1)], [get, ("show", 1), ("link", 1, 1)], points=[(2, ())])
         self.pair(piece, [get, ("show", 1), ("return", 2, 1)], [get, ("show", 1), ("return", 3, 1)])
         self.pair(piece, [get, ("stop", piece.end(1, 1))], [get, ("stop", piece.end(0, 1))])
-        self.pair(piece, [get, ("stop", piece.end(1, 1))], [("get", 1, 0, "f", piece.end(1, 0)), ("stop", piece.end(1, 1))])
+        self.pair(piece, [get, ("stop", piece.end(1, 1))], [("get", 1, 0, "f", piece.end(1, 0)),
+                                                            ("stop", piece.end(1, 1))])
 
     def test_registers(self):
         piece = Piece("fun main(a, b) {let c = a; show c; show b; return c;}")
-        self.pair(piece, [("move", 2, 0), ("show", 2), ("link", 2, 1)], [("move", 2, 1), ("show", 2), ("link", 2, 1)], points=[(2, ())])
+        self.pair(piece, [("move", 2, 0), ("show", 2), ("link", 2, 1)], [("move", 2, 1), ("show", 2), ("link", 2, 1)],
+                  points=[(2, ())])
         self.pair(piece, [("move", 2, 0), ("show", 2), ("stop", piece.end(2, 2))],
                   [("move", 2, 0), ("show", 2), ("stop", piece.end(2, 2, r2=("reg", 1)))])
-        self.pair(piece, [("move", 2, 0), ("show", 0), ("link", 2, 1)], [("move", 2, 0), ("show", 1), ("link", 2, 1)], points=[(2, ())])
+        self.pair(piece, [("move", 2, 0), ("show", 0), ("link", 2, 1)], [("move", 2, 0), ("show", 1), ("link", 2, 1)],
+                  points=[(2, ())])
 
     def test_places(self):
         piece = Piece("fun main(a, b) {show a; return b;}")
-        for place, word in ((val(num(3)), "closed"), (val(num(4)), "open"), (("reg", 1), "closed"), (("reg", 0), "open"),
+        for place, word in ((val(num(3)), "closed"), (val(num(4)), "open"), (("reg", 1), "closed"),
+                            (("reg", 0), "open"),
                             (("name", "n"), "open")):
             version = piece.version([("show", 0), ("stop", piece.end(1, 1, r1=place))], [("is", 1, num(3))], ["n"])
             self.point(word, piece, version)
@@ -168,11 +172,13 @@ class OneThingOff(DecideTest):
         piece = Piece("fun main(a) {if a {show a;} return a;}")
         test = [("check", ("kind", 0, "bit"), piece.end(0, 0)), ("test", 0, 4), ("link", 1, 1), ("link", 1, 2)]
         self.pair(piece, test, [("test", 0, 3)] + test[2:], points=[(1, ()), (2, ())])
-        self.point("closed", piece, piece.version([("test", 0, 3)] + test[2:], [("kind", 0, "bit")], points=[(1, ()), (2, ())]))
+        self.point("closed", piece, piece.version([("test", 0, 3)] + test[2:], [("kind", 0, "bit")],
+                                                  points=[(1, ()), (2, ())]))
 
     def test_facts_too_many(self):
         piece = Piece("fun main(a, b) {show a; return b;}")
-        for facts, told in (((), ("kind", 1, "num")), ([("kind", 1, "num")], ("is", 1, num(3))), ([("kind", 1, "obj")], ("shape", 1, (None, ())))):
+        for facts, told in (((), ("kind", 1, "num")), ([("kind", 1, "num")], ("is", 1, num(3))),
+                            ([("kind", 1, "obj")], ("shape", 1, (None, ())))):
             rows = [("show", 0), ("link", 1, 1)]
             self.point("closed", piece, piece.version(rows, facts, points=[(1, facts)]))
             self.point("open", piece, piece.version(rows, facts, points=[(1, list(facts) + [told])]))
@@ -181,7 +187,8 @@ class OneThingOff(DecideTest):
         piece = Piece("fun main(a, b) {let c = a == b; return c;}")
         no = [("const", 2, NO), ("link", 1, 1)]
         yes = [("const", 2, YES), ("link", 1, 1)]
-        for facts, one, other in (([("unlike", 0, 1)], "closed", "open"), ([("same", 0, 1)], "open", "closed"), ((), "open", "open"),
+        for facts, one, other in (([("unlike", 0, 1)], "closed", "open"), ([("same", 0, 1)], "open", "closed"),
+                                  ((), "open", "open"),
                                   ([("kind", 0, "num"), ("kind", 1, "obj")], "closed", "open"),
                                   ([("is", 0, YES), ("is", 1, YES)], "open", "closed"),
                                   ([("unlike", 0, 1), ("same", 1, 0)], "closed", "closed"),
@@ -192,7 +199,8 @@ class OneThingOff(DecideTest):
     def test_watched_facts_that_let_it_be_closed(self):
         piece = Piece("fun main(a) {let b = $g; let c = a.m(b); return c;} fun f(s, x) {return x;}")
         guess = [("const", 1, YES), ("link", 1, 1)]
-        for watched, word in (([("global", "g", YES)], "closed"), ([("global", "h", YES)], "open"), ([("global", "g", NO)], "open")):
+        for watched, word in (([("global", "g", YES)], "closed"), ([("global", "h", YES)], "open"),
+                              ([("global", "g", NO)], "open")):
             self.point(word, piece, piece.version(guess, watched=watched, points=[(1, ())]))
         check = ("check", ("shape", 0, ("n", ())), piece.end(0, 1))
         called = [check, ("const", 4, ("fun", "f")), ("call", 2, 4, (0, 1), piece.end(0, 1), 1)]
@@ -205,8 +213,10 @@ class OneThingOff(DecideTest):
         check, const = ("check", ("is", 0, ("fun", "f")), piece.end(0, 0)), ("const", 3, ("fun", "f"))
         call = ("call", 2, 3, (1,), piece.end(0, 0), 1)
         self.pair(piece, [check, const, call], [const, call], points=[(1, ())])
-        self.pair(piece, [check, const, call], [check, const, ("call", 2, 3, (0,), piece.end(0, 0), 1)], points=[(1, ())])
-        self.pair(piece, [check, const, call], [check, const, ("call", 2, 3, (1,), piece.end(1, 0), 1)], points=[(1, ())])
+        self.pair(piece, [check, const, call], [check, const, ("call", 2, 3, (0,), piece.end(0, 0), 1)],
+                  points=[(1, ())])
+        self.pair(piece, [check, const, call], [check, const, ("call", 2, 3, (1,), piece.end(1, 0), 1)],
+                  points=[(1, ())])
 
     def test_globals_objects_and_shown_values(self):
         piece = Piece("fun main(a, b) {$g = a; drop b.f; let c = new(b); show c; return c;}")
@@ -228,7 +238,8 @@ class OneThingOff(DecideTest):
         every = version.rows()
         self.versions(piece, version, [True] * 4)
         wrong = ("stop", piece.end(1, 0))
-        for places, expected in (((6, 8), (True, True, False, False)), ((4,), (True, False, True, True)), ((8,), (True, True, True, False))):
+        for places, expected in (((6, 8), (True, True, False, False)), ((4,), (True, False, True, True)),
+                                 ((8,), (True, True, True, False))):
             bent = [wrong if at in places else row for at, row in enumerate(every)]
             self.versions(piece, with_part(version, rows=bent), expected)
 
@@ -248,14 +259,16 @@ class OneThingOff(DecideTest):
         piece = Piece("fun main(a, b) {if less(add(a, b), b) {show a;} return b;}")
         self.assertEqual([row[0] for row in piece.code.rows()][:4], ["prim", "prim", "test", "show"])
         rows = [("check", ("kind", q, "num"), piece.end(0, 0)) for q in (0, 1)]
-        rows += [("variant", 4, "addnum", (0, 1)), ("variant", 4, "lessnum", (4, 1)), ("test", 4, 7), ("link", 3, 1), ("link", 3, 2)]
+        rows += [("variant", 4, "addnum", (0, 1)), ("variant", 4, "lessnum", (4, 1)), ("test", 4, 7), ("link", 3, 1),
+                 ("link", 3, 2)]
         version = piece.version(rows, points=[(3, ()), (4, ())])
         self.point("closed", piece, version)
         term = ("variant", "lessnum", (("variant", "addnum", (S0, ("start", 1))), ("start", 1)))
         self.assertIn(repr(("bit", term)), repr(decide_point(piece.program, version, 0)))
         turned = piece.version(rows[:5] + [rows[6], rows[5]], points=[(3, ()), (4, ())])
         self.point("open", piece, turned)
-        self.point("open", piece, piece.version(rows[:3] + [("variant", 4, "lessnum", (1, 4))] + rows[4:], points=[(3, ()), (4, ())]))
+        self.point("open", piece, piece.version(rows[:3] + [("variant", 4, "lessnum", (1, 4))] + rows[4:],
+                                                points=[(3, ()), (4, ())]))
 
     def test_starts_with_several_objects(self):
         """What one object has, another one has not."""
@@ -275,7 +288,8 @@ class OneThingOff(DecideTest):
         piece = Piece("fun main(a, b, c) {show a; show b; show c; return a;}")
         places = ((0, ("name", "n")), (1, val(num(4))), (2, ("reg", 3)))
         end = (1, (("main", 1, places),))
-        for rows, word in (([("const", 4, ("name", "n")), ("show", 4), ("stop", end)], "closed"), ([("show", 3), ("stop", end)], "open"),
+        for rows, word in (([("const", 4, ("name", "n")), ("show", 4), ("stop", end)], "closed"),
+                           ([("show", 3), ("stop", end)], "open"),
                            ([("const", 4, num(4)), ("show", 4), ("stop", end)], "open")):
             version = Version("main", ["n"], [], 6, [("point", 0)] + rows, [(0, (), places)])
             self.point(word, piece, version)
@@ -285,13 +299,15 @@ class OneThingOff(DecideTest):
         stuck = [("const", 1, NONE), ("test", 1, 3), ("stop", piece.end(0, 0))]
         self.point("open", piece, piece.version(stuck))
         self.point("closed", piece, piece.version(stuck, [("kind", 0, "num"), ("kind", 0, "obj")]))
-        self.assertEqual(decide_point(piece.program, piece.version(stuck, [("unlike", 0, 0)]), 0), ("closed", ("impossible",)))
+        self.assertEqual(decide_point(piece.program, piece.version(stuck, [("unlike", 0, 0)]), 0),
+                         ("closed", ("impossible",)))
         self.point("closed", piece, piece.version(stuck, [("unlike", 0, 0)]))
 
     def test_objects_above(self):
         piece = Piece("fun main(a) {let b = new(a); return b;}")
         new = ("new", 1, 0, piece.end(0, 0))
-        self.pair(piece, [new, ("link", 1, 1)], [("const", 2, NONE), ("new", 1, 2, piece.end(0, 0)), ("link", 1, 1)], points=[(1, ())])
+        self.pair(piece, [new, ("link", 1, 1)], [("const", 2, NONE), ("new", 1, 2, piece.end(0, 0)), ("link", 1, 1)],
+                  points=[(1, ())])
         watched = [("holds", "n", ("o", ())), ("holds", "o", (None, ()))]
         facts = [("is", 0, ("name", "n"))]
         self.point("closed", piece, piece.version([new, ("link", 1, 1)], facts, ["n", "o"], watched, [(1, ())]))
@@ -340,7 +356,8 @@ class Drawn(DecideTest):
             return 0
         self.assertEqual(word, "closed")
         asked = Answering(program, version, k, *start)
-        answers = {"kind": ["none", "bit", "err", "fun", "obj", "num", "col", "unset"], "bit": ["yes", "no"], "has": ["yes", "no"],
+        answers = {"kind": ["none", "bit", "err", "fun", "obj", "num", "col", "unset"], "bit": ["yes", "no"],
+                   "has": ["yes", "no"],
                    "shape": asked.candidates + ["other"]}
         while paper[0] == "ask":
             question = paper[1]
@@ -378,24 +395,33 @@ class GoingBack(unittest.TestCase):
         piece_of = Piece("fun main(a, b) {show a; show b; return a;}")
         back = piece_of.end(0, 0)
         for fact, facts, expected in (
-            (("kind", 0, "num"), (), True), (("kind", 0, "num"), [("is", 0, num(1))], False), (("kind", 0, "num"), [("is", 0, YES)], True),
+            (("kind", 0, "num"), (), True), (("kind", 0, "num"), [("is", 0, num(1))], False),
+                                      (("kind", 0, "num"), [("is", 0, YES)], True),
             (("same", 0, 1), (), True), (("same", 0, 1), [("same", 1, 0)], False), (("unlike", 0, 1), (), True),
-            (("unlike", 0, 1), [("unlike", 0, 1)], False), (("unlike", 0, 1), [("kind", 0, "num"), ("kind", 1, "obj")], False),
-            (("is", 0, YES), [("kind", 0, "bit")], True), (("is", 0, YES), [("kind", 0, "bit"), ("is", 1, NO), ("unlike", 0, 1)], False),
-            (("shape", 0, ("n", ("f",))), [("kind", 0, "obj")], True), (("shape", 0, ("n", ("f",))), [("shape", 0, ("n", ("f",)))], False),
+            (("unlike", 0, 1), [("unlike", 0, 1)], False), (("unlike", 0, 1), [("kind", 0, "num"), ("kind", 1, "obj")],
+                                                            False),
+            (("is", 0, YES), [("kind", 0, "bit")], True), (("is", 0, YES),
+                                                           [("kind", 0, "bit"), ("is", 1, NO), ("unlike", 0, 1)],
+                                                           False),
+            (("shape", 0, ("n", ("f",))), [("kind", 0, "obj")], True),
+                                      (("shape", 0, ("n", ("f",))), [("shape", 0, ("n", ("f",)))], False),
             (("shape", 0, ("n", ("f",))), [("shape", 0, ("n", ("g",)))], True),
         ):
-            version = piece_of.version([("check", fact, back), ("show", 0), ("link", 1, 1)], facts, ["n"], points=[(1, ())])
+            version = piece_of.version([("check", fact, back), ("show", 0), ("link", 1, 1)], facts, ["n"],
+                                       points=[(1, ())])
             self.assertEqual(self.back(piece_of, version, 1), expected)
 
     def test_rows_in_turn(self):
         piece_of = Piece("fun main(a) {a.f = a; let b = a.f; drop a.f; return b;}")
         end = [piece_of.end(at, at) for at in range(4)]
-        version = piece_of.version([("set", 0, "f", 0, end[0]), ("get", 1, 0, "f", end[1]), ("drop", 0, "f", end[2]), ("return", 3, 1)])
+        version = piece_of.version([("set", 0, "f", 0, end[0]), ("get", 1, 0, "f", end[1]), ("drop", 0, "f", end[2]),
+                                    ("return", 3, 1)])
         self.assertEqual([self.back(piece_of, version, number) for number in (1, 2, 3)], [True, False, False])
-        version = piece_of.version([("get", 1, 0, "f", end[0]), ("set", 0, "f", 0, end[0]), ("drop", 0, "f", end[0]), ("drop", 0, "f", end[0]),
+        version = piece_of.version([("get", 1, 0, "f", end[0]), ("set", 0, "f", 0, end[0]), ("drop", 0, "f", end[0]),
+                                    ("drop", 0, "f", end[0]),
                                     ("stop", end[0])])
-        self.assertEqual([self.back(piece_of, version, number) for number in (1, 2, 3, 4, 5)], [True, False, False, True, False])
+        self.assertEqual([self.back(piece_of, version, number) for number in (1, 2, 3, 4, 5)],
+                         [True, False, False, True, False])
 
     def test_rows_to_which_no_way_leads(self):
         piece_of = Piece("fun main(a) {show a; return a;}")
@@ -412,15 +438,18 @@ class GoingBack(unittest.TestCase):
         piece_of = Piece("fun main(a, b) {let c = call a(b); let c = a.m(b); return c;} fun f(x) {return x;}")
         end = piece_of.end(0, 0)
         for row, expected in (
-            (("global", 2, "g", end), True), (("prim", 2, "add", (0, 1), end), True), (("prim", 2, "neg", (1,), end), False),
-            (("prim", 2, "add", (1, 1), end), False), (("new", 2, 0, end), True), (("new", 2, 3, end), False), (("stop", end), True),
+            (("global", 2, "g", end), True), (("prim", 2, "add", (0, 1), end), True),
+                              (("prim", 2, "neg", (1,), end), False),
+            (("prim", 2, "add", (1, 1), end), False), (("new", 2, 0, end), True), (("new", 2, 3, end), False),
+                              (("stop", end), True),
         ):
             version = piece_of.version([("const", 3, NONE), row, ("stop", end)], [("kind", 1, "num")])
             self.assertEqual(self.back(piece_of, version, 2), expected)
         version = piece_of.version([("put", "g", 0), ("global", 2, "g", end), ("stop", end)])
         self.assertFalse(self.back(piece_of, version, 2))
         call = [("call", 2, 0, (1,), end, 1)]
-        for facts, expected in (((), True), ([("is", 0, ("fun", "f"))], False), ([("is", 0, ("fun", "main"))], True), ([("kind", 0, "fun")], True)):
+        for facts, expected in (((), True), ([("is", 0, ("fun", "f"))], False), ([("is", 0, ("fun", "main"))], True),
+                                ([("kind", 0, "fun")], True)):
             self.assertEqual(self.back(piece_of, piece_of.version(call, facts, points=[(1, ())]), 1), expected)
         method = [("method", 2, 0, "m", (1,), piece_of.end(0, 1), 1)]
         self.assertTrue(self.back(piece_of, piece_of.version(method, points=[(2, ())], at=1), 1))
@@ -434,7 +463,8 @@ class GoingBack(unittest.TestCase):
             self.assertEqual(self.back(piece_of, piece_of.version([("stop", piece_of.end(0, 0))], facts), 1), expected)
         shapes = [("shape", 0, ("n", ())), ("shape", 1, (None, ()))]
         for facts, expected in ((shapes, True), (shapes + [("same", 0, 1)], False)):
-            self.assertEqual(self.back(piece_of, piece_of.version([("stop", piece_of.end(0, 0))], facts, ["n"]), 1), expected)
+            self.assertEqual(self.back(piece_of, piece_of.version([("stop", piece_of.end(0, 0))], facts, ["n"]), 1),
+                             expected)
 
     def test_second_points(self):
         piece_of = Piece("fun main(a) {show a; return a;}")
@@ -468,7 +498,8 @@ class Times(unittest.TestCase):
     def test_large_points_are_decided_soon(self):
         """Two kinds that no fact tells, compared and passed on, at a point of several objects."""
         piece_of = Piece("fun main(a, b) {let c = a == b; let d = a.f; let d = b.f; return c;}")
-        rows = [("same", 2, 0, 1), ("get", 3, 0, "f", piece_of.end(1, 1)), ("get", 3, 1, "f", piece_of.end(2, 2)), ("return", 3, 2)]
+        rows = [("same", 2, 0, 1), ("get", 3, 0, "f", piece_of.end(1, 1)), ("get", 3, 1, "f", piece_of.end(2, 2)),
+                ("return", 3, 2)]
         version = piece_of.version(rows, names=["n", "o"])
         began = time.process_time()
         told = decide_point(piece_of.program, version, 0)

@@ -41,7 +41,8 @@ def obj(number):
 def engine_at(piece, values, objects=(), told=None, most=2):
     """An engine in one frame at row 0, whose first registers have values."""
     rest = (NONE,) * (piece.code.registers() - len(values))
-    return Engine(State(piece.program, BOOK, [(piece.function, 0, tuple(values) + rest)], list(objects), told or {}, []), most)
+    return Engine(State(piece.program, BOOK, [(piece.function, 0, tuple(values) + rest)], list(objects), told or {},
+                        []), most)
 
 
 class EngineTest(unittest.TestCase):
@@ -51,12 +52,15 @@ class EngineTest(unittest.TestCase):
 
 class StepsAlone(EngineTest):
     def test_beginning(self):
-        state = State(PROGRAM, BOOK, [("inc", 0, (obj(1), YES, NO, num(1)))], [(None, (("f", YES),)), (0, ())], {"k": NO}, [YES])
+        state = State(PROGRAM, BOOK, [("inc", 0, (obj(1), YES, NO, num(1)))], [(None, (("f", YES),)), (0, ())],
+                      {"k": NO}, [YES])
         engine = Engine(state, 3)
         self.assertEqual(engine.rebuilt(), state)
-        self.assertEqual((engine.steps(), engine.shown(), engine.end(), engine.log(), engine.versions()), (0, [YES], None, [], []))
+        self.assertEqual((engine.steps(), engine.shown(), engine.end(), engine.log(), engine.versions()),
+                         (0, [YES], None, [], []))
         self.assertEqual(engine.frames(), [("plain", "inc", 0)])
-        self.assertEqual(engine.cells(), {("main", 3): [], ("main", 5): [], ("main", 8): [], ("main", 15): [], ("inc", 0): []})
+        self.assertEqual(engine.cells(), {("main", 3): [], ("main", 5): [], ("main", 8): [], ("main", 15): [],
+                                          ("inc", 0): []})
         self.assertEqual([engine.rises(name) for name in PROGRAM.names()], [0, 0, 0])
         table = Shapes()
         Heap(table, state.objects())
@@ -86,9 +90,12 @@ class StepsAlone(EngineTest):
 
     def test_each_error(self):
         """What throws in the plain machine throws here, and what is tried a second time is the same."""
-        for body, word in (("return $h;", "global"), ("return new(new(new(new(none))));", "deep"), ("return new(a);", "object"), ("return a.f;", "object"),
-                           ("a.f = a;", "object"), ("drop a.f;", "object"), ("return new(none).f;", "field"), ("drop new(none).f;", "field"),
-                           ("return a.m();", "object"), ("return new(none).m();", "field"), ("return add(a, a);", "kind"), ("if none {}", "bit"),
+        for body, word in (("return $h;", "global"), ("return new(new(new(new(none))));", "deep"),
+                           ("return new(a);", "object"), ("return a.f;", "object"),
+                           ("a.f = a;", "object"), ("drop a.f;", "object"), ("return new(none).f;", "field"),
+                           ("drop new(none).f;", "field"),
+                           ("return a.m();", "object"), ("return new(none).m();", "field"),
+                           ("return add(a, a);", "kind"), ("if none {}", "bit"),
                            ("return call a();", "function"), ("return call &main();", "count")):
             program = program_of("fun main(a) {" + body + "}")
             play = self.play(program, [YES])
@@ -155,7 +162,8 @@ class Cells(EngineTest):
             self.assertEqual(len(engine.table()), 1)
 
     def test_methods_learn_before_they_throw(self):
-        for value, word in ((YES, "function"), (("fun", "zz"), "function"), (("fun", "main"), "count"), (obj(0), "function")):
+        for value, word in ((YES, "function"), (("fun", "zz"), "function"), (("fun", "main"), "count"),
+                            (obj(0), "function")):
             engine = self.run_rows("fun main(a, b, c) {return a.f();}", [(None, (("f", value),))], obj(0), NONE, NONE)
             self.assertEqual(engine.end(), ("thrown", ("err", word)))
             self.assertEqual(engine.cells(), {("main", 0): [(0, ("own", 0))]})
@@ -212,7 +220,8 @@ class Cells(EngineTest):
             program = Program(ground(), Maker(seed).lively_functions())
             engine, heap = engine_of(program, ()), Heap(Shapes(), [])
             rows = {name: code.rows() for name, code in compiled(program).items()}
-            cells = {(name, at): Cell(2, row[0] == "set") for name in rows for at, row in enumerate(rows[name]) if row[0] in ("get", "set", "method")}
+            cells = {(name, at): Cell(2, row[0] == "set") for name in rows for at, row in enumerate(rows[name])
+                     if row[0] in ("get", "set", "method")}
             for _ in range(200):
                 if engine.end() is not None:
                     break
@@ -284,7 +293,8 @@ class InVersions(EngineTest):
         play = self.play()
         version = slow(PROGRAM, "main")
         for _ in range(4):
-            version = gone_on(PROGRAM, version, [number for number, row in enumerate(version.rows()) if row[0] == "link"][0])
+            version = gone_on(PROGRAM, version, [number for number, row in enumerate(version.rows())
+                                                 if row[0] == "link"][0])
         play.do("put", version, ())
         play.do("enter", 0, 0)
         self.assertEqual(play.do("step"), 5)
@@ -300,12 +310,14 @@ class InVersions(EngineTest):
         play = Play(self, engine_at(piece, (obj(0), obj(1)), objects))
         version = slow(piece.program, "main")
         for _ in range(2):
-            version = gone_on(piece.program, version, [number for number, row in enumerate(version.rows()) if row[0] == "link"][0])
+            version = gone_on(piece.program, version, [number for number, row in enumerate(version.rows())
+                                                       if row[0] == "link"][0])
         play.do("put", version, ())
         play.do("enter", 0, 0)
         self.assertEqual(play.do("step"), 3)
         table = play.engine.table()
-        self.assertEqual([table.shape(number) for number in range(len(table))], [(None, ("e",)), (0, ()), (0, ("h",)), (0, ("g",))])
+        self.assertEqual([table.shape(number) for number in range(len(table))],
+                         [(None, ("e",)), (0, ()), (0, ("h",)), (0, ("g",))])
 
     def test_going_back_in_a_step(self):
         piece = Piece("fun main(a) {show a; let b = a.f; return b;}")
@@ -393,7 +405,8 @@ class InVersions(EngineTest):
 
     def test_names(self):
         piece = Piece("fun main(a) {let b = $g; return b;}")
-        version = piece.version([("const", 1, ("name", "n")), ("link", 1, 1)], names=["n"], watched=[("global", "g", ("name", "n"))], points=[(1, ())])
+        version = piece.version([("const", 1, ("name", "n")), ("link", 1, 1)], names=["n"],
+                                watched=[("global", "g", ("name", "n"))], points=[(1, ())])
         play = Play(self, engine_at(piece, (YES,), [(None, ()), (None, (("f", NO),))], {"g": obj(1), "h": obj(0)}))
         play.refuse("put", version, (0,))
         play.do("put", version, (1,))
@@ -451,7 +464,8 @@ class Thrown(EngineTest):
         while play.engine.end() is None:
             play.do("step")
             gone.append(play.engine.log()[-1])
-        self.assertEqual(gone, [("step", 1, (0,)), ("step", 1, ()), ("step", 1, (2, 4)), ("step", 1, (3,)), ("step", 1, ())])
+        self.assertEqual(gone, [("step", 1, (0,)), ("step", 1, ()), ("step", 1, (2, 4)), ("step", 1, (3,)),
+                                ("step", 1, ())])
         self.assertEqual([told[2] for told in play.engine.versions()], [False, True, False, False, False, True])
 
     def test_what_held_in_between_does_not_matter(self):
@@ -537,7 +551,8 @@ class Thrown(EngineTest):
 class StuckVersions(EngineTest):
     def test_stuck(self):
         piece = Piece("fun main(a) {show a; if a {return a;} return a;}")
-        version = piece.version([("show", 0), ("put", "g", 0), ("test", 0, 5), ("stop", piece.end(1, 1)), ("stop", piece.end(1, 1))])
+        version = piece.version([("show", 0), ("put", "g", 0), ("test", 0, 5), ("stop", piece.end(1, 1)),
+                                 ("stop", piece.end(1, 1))])
         engine = engine_of(piece.program, [num(1)])
         engine.do(("put", version, ()))
         engine.do(("enter", 0, 0))
@@ -575,8 +590,10 @@ class Choices(EngineTest):
         play = self.play()
         play.do("put", slow(PROGRAM, "main"), ())
         play.do("put", slow(PROGRAM, "inc"), ())
-        for choice in (("back",), ("enter", 0, 1), ("enter", 1, 0), ("enter", 2, 0), ("enter", 0, 99), ("clear", "main", 0), ("clear", "zz", 3),
-                       ("clear", "main", 99), ("throw", 2), ("throw", -1), ("throw", True), ("put", slow(PROGRAM, "main"), (0,)), ("put", None, ()),
+        for choice in (("back",), ("enter", 0, 1), ("enter", 1, 0), ("enter", 2, 0), ("enter", 0, 99),
+                       ("clear", "main", 0), ("clear", "zz", 3),
+                       ("clear", "main", 99), ("throw", 2), ("throw", -1), ("throw", True),
+                       ("put", slow(PROGRAM, "main"), (0,)), ("put", None, ()),
                        ("step", 1), ("enter", 0), (), ("steps",)):
             play.refuse(*choice)
         play.do("enter", 0, 0)
@@ -593,7 +610,9 @@ class Choices(EngineTest):
         self.assertEqual(play.do("clear", "main", 3), 0)
         self.assertEqual(play.do("enter", 0, 1), 0)
         self.assertEqual(play.do("throw", 0), 0)
-        self.assertEqual(play.engine.log(), [("step", 1, ())] + [("put", 0, ())] * 3 + [("clear", 0, ()), ("enter", 0, ()), ("throw", 0, (0,))])
+        self.assertEqual(play.engine.log(),
+                         [("step", 1, ())] + [("put", 0, ())] * 3 + [("clear", 0, ()), ("enter", 0, ()),
+                                                                     ("throw", 0, (0,))])
 
 
 class TwinsAndEquality(EngineTest):
@@ -619,7 +638,8 @@ class TwinsAndEquality(EngineTest):
             self.assertFalse(engine_of() == value)
 
     def test_each_part(self):
-        for choice in (("step",), ("enter", 1, 0), ("clear", "main", 8), ("put", slow(PROGRAM, "bad"), ()), ("throw", 0)):
+        for choice in (("step",), ("enter", 1, 0), ("clear", "main", 8), ("put", slow(PROGRAM, "bad"), ()),
+                       ("throw", 0)):
             engine, other = self.filled(), self.filled()
             other.do(choice)
             self.assertNotEqual(engine, other)
@@ -636,10 +656,12 @@ class TwinsAndEquality(EngineTest):
         piece = Piece("fun main(a) {return a;}")
         engine = engine_at(piece, (YES,), [(None, (("f", YES),))], {"g": YES})
         self.assertEqual(engine, engine_at(piece, (YES,), [(None, (("f", YES),))], {"g": YES}))
-        for objects, told in (([(None, (("f", NO),))], {"g": YES}), ([(None, (("f", YES),))], {"g": NO}), ([], {"g": YES}), ([(None, ())], {"g": YES})):
+        for objects, told in (([(None, (("f", NO),))], {"g": YES}), ([(None, (("f", YES),))], {"g": NO}),
+                              ([], {"g": YES}), ([(None, ())], {"g": YES})):
             self.assertNotEqual(engine, engine_at(piece, (YES,), objects, told))
         # The versions alone, or the cell that was cleared.
-        for one, two in ((("put", slow(PROGRAM, "bad"), ()), ("put", slow(PROGRAM, "inc"), ())), (("clear", "main", 8), ("clear", "main", 3))):
+        for one, two in ((("put", slow(PROGRAM, "bad"), ()), ("put", slow(PROGRAM, "inc"), ())),
+                         (("clear", "main", 8), ("clear", "main", 3))):
             engine, other = self.filled(), self.filled()
             engine.do(one)
             other.do(two)
@@ -656,7 +678,8 @@ class TwinsAndEquality(EngineTest):
         """Two engines whose rebuilt states are equal, but not the quick registers."""
         piece = Piece("fun main(a, b) {if b {show a;} show b; return b;}")
         made = []
-        both = Version("main", [], [], 7, [("point", 0), ("move", 5, 1), ("link", 3, 1), ("point", 1), ("stop", piece.end(0, 3))],
+        both = Version("main", [], [], 7, [("point", 0), ("move", 5, 1), ("link", 3, 1), ("point", 1),
+                                           ("stop", piece.end(0, 3))],
                        [(0, (), piece.places(0)), (3, (), piece.places(3))])
         for value in (YES, num(1)):
             engine = engine_at(piece, (value, NO))
@@ -675,7 +698,8 @@ class TwinsAndEquality(EngineTest):
 
     def compare_numbers(self, piece):
         end, places = piece.end(0, 0), [(0, (), piece.places(0))] * 2
-        changing = [("point", 0), ("set", 0, "x", 0, end), ("link", 1, 1), ("point", 1), ("drop", 0, "x", end), ("link", 1, 0)]
+        changing = [("point", 0), ("set", 0, "x", 0, end), ("link", 1, 1), ("point", 1), ("drop", 0, "x", end),
+                    ("link", 1, 0)]
         idle = [("point", 0), ("link", 1, 1), ("point", 1), ("link", 1, 0)]
         made = []
         for v in (0, 1):
@@ -687,7 +711,8 @@ class TwinsAndEquality(EngineTest):
             made.append(engine)
         cells = [list(engine.cells().values()) for engine in made]
         self.assertNotEqual(cells[0], cells[1])
-        self.assertIn(cells, ([[[(0, ("grow", 2, 1))]], [[(0, ("grow", 1, 1))]]], [[[(2, ("up", ((0, 0),), 0))]], [[(1, ("up", ((0, 0),), 0))]]]))
+        self.assertIn(cells, ([[[(0, ("grow", 2, 1))]], [[(0, ("grow", 1, 1))]]],
+                              [[[(2, ("up", ((0, 0),), 0))]], [[(1, ("up", ((0, 0),), 0))]]]))
         self.assertNotEqual(made[0].table(), made[1].table())
         self.assertEqual(made[0], made[1])
 
@@ -695,7 +720,8 @@ class TwinsAndEquality(EngineTest):
         engine = self.filled()
         kept = engine.twin()
         twin = engine.twin()
-        for choice in (("step",), ("clear", "main", 8), ("put", slow(PROGRAM, "bad"), ()), ("throw", 0), ("step",), ("step",), ("step",)):
+        for choice in (("step",), ("clear", "main", 8), ("put", slow(PROGRAM, "bad"), ()), ("throw", 0), ("step",),
+                       ("step",), ("step",)):
             twin.do(choice)
             self.assertEqual(engine, kept)
             self.assertEqual(engine.table(), kept.table())
@@ -712,7 +738,8 @@ class DrawnRuns(EngineTest):
         words = {}
         for seed in range(16):
             draw = random.Random(seed)
-            program, arguments = (PROGRAM, [num(1)]) if seed % 2 else (Program(ground(), Maker(seed).lively_functions()), [])
+            program, arguments = (PROGRAM,
+                                  [num(1)]) if seed % 2 else (Program(ground(), Maker(seed).lively_functions()), [])
             play = self.play(program, arguments, draw.randint(1, 3))
             maker = Guessing(draw)
             for _ in range(110):

@@ -98,7 +98,8 @@ class Rows(InsideTest):
         version = version_with_call()
         base = version.registers()
         told = self.inside(inner, version)
-        self.assertEqual(told.rows()[2:6], [("check", ("is", 0, ("fun", "f")), END), ("check", ("is", 5, num(3)), END), ("move", base + 4, 1),
+        self.assertEqual(told.rows()[2:6], [("check", ("is", 0, ("fun", "f")), END), ("check", ("is", 5, num(3)), END),
+                                            ("move", base + 4, 1),
                                             ("const", base, num(3))])
 
     def test_other_live_registers(self):
@@ -112,7 +113,8 @@ class Rows(InsideTest):
                                    (val(YES), [("const", 1, NONE)], None)):
             places = ((0, ("reg", 0)), (1, place))
             end = (0, (("f", 0, places),))
-            rows = [("point", 0), ("check", ("kind", 0, "bit"), end), ("test", 0, 4), ("stop", end)] + ahead + [("return", 1, 1)]
+            rows = [("point", 0), ("check", ("kind", 0, "bit"), end), ("test", 0, 4),
+                    ("stop", end)] + ahead + [("return", 1, 1)]
             inner = Version("f", [], [], 2, rows, [(0, (), places)])
             check_version(piece.program, inner)
             if made is None:
@@ -127,10 +129,14 @@ class Rows(InsideTest):
         end = f.end(0, 0)
         shape, less = (None, ("p", "q")), (None, ("p",))
         rows = [
-            ("const", 2, num(1)), ("move", 2, 0), ("same", 2, 0, 1), ("put", "g", 1), ("show", 1), ("load", 2, 0, shape, "p"), ("store", 0, shape, "q", 1),
-            ("grow", 0, less, "q", 1), ("variant", 2, "addnum", (0, 1)), ("check", ("kind", 1, "num"), end), ("check", ("is", 1, YES), end),
-            ("check", ("shape", 1, shape), end), ("check", ("same", 0, 1), end), ("check", ("unlike", 1, 0), end), ("global", 2, "g", end),
-            ("get", 2, 0, "f", end), ("set", 0, "f", 1, end), ("drop", 1, "f", end), ("new", 2, 0, end), ("prim", 2, "add", (0, 1), end),
+            ("const", 2, num(1)), ("move", 2, 0), ("same", 2, 0, 1), ("put", "g", 1), ("show", 1),
+                ("load", 2, 0, shape, "p"), ("store", 0, shape, "q", 1),
+            ("grow", 0, less, "q", 1), ("variant", 2, "addnum", (0, 1)), ("check", ("kind", 1, "num"), end),
+                ("check", ("is", 1, YES), end),
+            ("check", ("shape", 1, shape), end), ("check", ("same", 0, 1), end), ("check", ("unlike", 1, 0), end),
+                ("global", 2, "g", end),
+            ("get", 2, 0, "f", end), ("set", 0, "f", 1, end), ("drop", 1, "f", end), ("new", 2, 0, end),
+                ("prim", 2, "add", (0, 1), end),
             ("prim", 2, "add", (), end), ("return", 0, 2),
         ]
         inner = f.version(rows, more=0)
@@ -140,22 +146,29 @@ class Rows(InsideTest):
         e = (3, (waiting, ("f", 0, ((0, ("reg", b)), (1, ("reg", b + 1))))))
         x, y, z = b, b + 1, b + 2
         self.assertEqual(self.inside(inner, version).rows()[5:-2], [
-            ("const", z, num(1)), ("move", z, x), ("same", z, x, y), ("put", "g", y), ("show", y), ("load", z, x, shape, "p"), ("store", x, shape, "q", y),
-            ("grow", x, less, "q", y), ("variant", z, "addnum", (x, y)), ("check", ("kind", y, "num"), e), ("check", ("is", y, YES), e),
-            ("check", ("shape", y, shape), e), ("check", ("same", x, y), e), ("check", ("unlike", y, x), e), ("global", z, "g", e),
-            ("get", z, x, "f", e), ("set", x, "f", y, e), ("drop", y, "f", e), ("new", z, x, e), ("prim", z, "add", (x, y), e),
+            ("const", z, num(1)), ("move", z, x), ("same", z, x, y), ("put", "g", y), ("show", y),
+                                                                    ("load", z, x, shape, "p"),
+                                                                    ("store", x, shape, "q", y),
+            ("grow", x, less, "q", y), ("variant", z, "addnum", (x, y)), ("check", ("kind", y, "num"), e),
+                                                                    ("check", ("is", y, YES), e),
+            ("check", ("shape", y, shape), e), ("check", ("same", x, y), e), ("check", ("unlike", y, x), e),
+                                                                    ("global", z, "g", e),
+            ("get", z, x, "f", e), ("set", x, "f", y, e), ("drop", y, "f", e), ("new", z, x, e),
+                                                                    ("prim", z, "add", (x, y), e),
             ("prim", z, "add", (), e), ("move", 2, z), ("link", 4, 1),
         ])
 
     def test_jumps_and_tests(self):
         f = Piece(TEXT, "f")
-        rows = [("point", 0), ("const", 2, YES), ("test", 2, 5), ("show", 0), ("return", 1, 1), ("jump", 7), ("return", 2, 0), ("return", 3, 1)]
+        rows = [("point", 0), ("const", 2, YES), ("test", 2, 5), ("show", 0), ("return", 1, 1), ("jump", 7),
+                ("return", 2, 0), ("return", 3, 1)]
         inner = Version("f", [], [], 3, rows, [(0, (), f.places(0))])
         version = version_with_call()
         b = version.registers()
         told = self.inside(inner, version).rows()
         # Each return takes two rows, so that what stands behind one is led to by other numbers; row 6 belongs to no piece.
-        self.assertEqual(told[5:13], [("const", b + 2, YES), ("test", b + 2, 10), ("show", b), ("move", 2, b + 1), ("link", 5, 1), ("jump", 11),
+        self.assertEqual(told[5:13], [("const", b + 2, YES), ("test", b + 2, 10), ("show", b), ("move", 2, b + 1),
+                                      ("link", 5, 1), ("jump", 11),
                                       ("move", 2, b + 1), ("link", 7, 1)])
         self.assertEqual(told[13:], version.rows()[3:])
 
@@ -172,7 +185,8 @@ class Rows(InsideTest):
     def test_rows_around(self):
         f = Piece(TEXT, "f")
         inner = f.version([("show", 0), ("return", 1, 1)], more=0)
-        rows = [("const", 4, YES), ("test", 4, 4), ("test", 4, 5), ("call", 2, 0, (1, 1), END, 1), ("stop", END), ("jump", 5)]
+        rows = [("const", 4, YES), ("test", 4, 4), ("test", 4, 5), ("call", 2, 0, (1, 1), END, 1), ("stop", END),
+                ("jump", 5)]
         version = MAIN.version(rows, points=[(1, ())])
         told = self.inside(inner, version, 4).rows()
         self.assertEqual(told[:4], [("point", 0), ("const", 4, YES), ("test", 4, 4), ("test", 4, 10)])
@@ -183,7 +197,8 @@ class Rows(InsideTest):
         for name in ("f", "two", "bad"):
             inner = slow(MAIN.program, name)
             for _ in range(3):
-                links = [at for at in range(len(inner.rows())) if inner.row(at)[0] == "link" and at < inner.rows().index(("point", 1))]
+                links = [at for at in range(len(inner.rows())) if inner.row(at)[0] == "link"
+                         and at < inner.rows().index(("point", 1))]
                 if links:
                     inner = gone_on(MAIN.program, inner, links[0])
             self.assertTrue(is_closed(MAIN.program, self.inside(inner, version)))
@@ -237,7 +252,8 @@ class Refused(InsideTest):
         check_version(MAIN.program, later)
         self.refused(later)
         # Other points may have facts and stand anywhere.
-        more = Version("f", [], [], 2, good.rows() + [("point", 1), ("link", 1, 1)], [good.point(0), (1, (("kind", 1, "num"),), ((1, ("reg", 1)),))])
+        more = Version("f", [], [], 2, good.rows() + [("point", 1), ("link", 1, 1)],
+                       [good.point(0), (1, (("kind", 1, "num"),), ((1, ("reg", 1)),))])
         self.inside(more)
 
     def test_links_and_calls(self):
@@ -247,7 +263,8 @@ class Refused(InsideTest):
             self.refused(slow(piece.program, name), slow(piece.program, "main"), 1, piece)
         # Also where the link would fit a point of the outer version.
         one, version = Piece(TEXT, "f"), version_with_call(points=((1, ()), (0, ())))
-        rows = [("point", 0), ("link", 1, 2), ("point", 1), ("stop", one.end(0, 0)), ("point", 2), ("stop", one.end(0, 0))]
+        rows = [("point", 0), ("link", 1, 2), ("point", 1), ("stop", one.end(0, 0)), ("point", 2),
+                ("stop", one.end(0, 0))]
         inner = Version("f", [], [], 2, rows, [(0, (), one.places(0))] * 3)
         check_version(MAIN.program, inner)
         self.refused(inner, version)

@@ -46,9 +46,11 @@ class LeavingOut(LeftOutTest):
 
     def test_checks_that_facts_tell(self):
         stop = ("stop", END)
-        for facts, expected in (([("kind", 0, "num")], [OTHER, SAME, stop]), ([("is", 1, num(3))], [NUMBER, SAME, stop]),
+        for facts, expected in (([("kind", 0, "num")], [OTHER, SAME, stop]),
+                                ([("is", 1, num(3))], [NUMBER, SAME, stop]),
                                 ([("same", 1, 0)], [NUMBER, stop]), ([("same", 1, 0), ("kind", 1, "num")], [stop]),
-                                ([("kind", 0, "obj")], [NUMBER, stop]), ([("unlike", 0, 1)], [NUMBER, OTHER, SAME, stop])):
+                                ([("kind", 0, "obj")], [NUMBER, stop]),
+                                ([("unlike", 0, 1)], [NUMBER, OTHER, SAME, stop])):
             self.left(expected, [NUMBER, OTHER, SAME, stop], facts=facts)
 
     def test_checks_that_earlier_ones_tell(self):
@@ -59,13 +61,17 @@ class LeavingOut(LeftOutTest):
 
     def test_checks_that_other_rows_tell(self):
         stop = ("stop", END)
-        for ahead, fact in ((("const", 4, num(1)), ("kind", 4, "num")), (("same", 4, 0, 1), ("kind", 4, "bit")), (("move", 4, 0), ("same", 0, 4)),
-                            (("prim", 4, "add", (0, 1), END), ("kind", 0, "num")), (("get", 4, 0, "f", END), ("kind", 0, "obj")),
-                            (("new", 4, 0, END), ("unlike", 4, 1)), (("prim", 4, "less", (0, 1), END), ("kind", 4, "bit"))):
+        for ahead, fact in ((("const", 4, num(1)), ("kind", 4, "num")), (("same", 4, 0, 1), ("kind", 4, "bit")),
+                            (("move", 4, 0), ("same", 0, 4)),
+                            (("prim", 4, "add", (0, 1), END), ("kind", 0, "num")),
+                            (("get", 4, 0, "f", END), ("kind", 0, "obj")),
+                            (("new", 4, 0, END), ("unlike", 4, 1)), (("prim", 4, "less", (0, 1), END),
+                                                                     ("kind", 4, "bit"))):
             self.left([ahead, stop], [ahead, ("check", fact, END), stop])
         shape = ("n", ("f",))
         check = ("check", ("shape", 0, shape), END)
-        self.left([check, ("load", 4, 0, shape, "f"), stop], [check, ("load", 4, 0, shape, "f"), check, stop], names=["n"])
+        self.left([check, ("load", 4, 0, shape, "f"), stop], [check, ("load", 4, 0, shape, "f"), check, stop],
+                  names=["n"])
         # A field that is set between the two makes it another shape.
         rows = [check, ("set", 0, "g", 1, END), check, stop]
         self.left(rows, rows, names=["n"])
@@ -79,8 +85,10 @@ class LeavingOut(LeftOutTest):
         self.left([get, check], [get, check, ("stop", END)], watched=[("global", "h", YES)])
 
     def test_jumps_and_tests_lead_to_the_row_behind(self):
-        rows = [("const", 4, YES), ("test", 4, 5), ("jump", 5), ("stop", END), NUMBER, ("test", 4, 8), ("jump", 9), ("show", 0), ("stop", END)]
-        told = self.left([("const", 4, YES), ("test", 4, 5), ("jump", 5), ("stop", END), ("test", 4, 7), ("jump", 8), ("show", 0), ("stop", END)],
+        rows = [("const", 4, YES), ("test", 4, 5), ("jump", 5), ("stop", END), NUMBER, ("test", 4, 8), ("jump", 9),
+                ("show", 0), ("stop", END)]
+        told = self.left([("const", 4, YES), ("test", 4, 5), ("jump", 5), ("stop", END), ("test", 4, 7), ("jump", 8),
+                          ("show", 0), ("stop", END)],
                          rows, facts=[("kind", 0, "num")])
         self.assertEqual(len(told.rows()), 9)
         # Several that follow each other, and jumps that lead to them and over them.
@@ -88,7 +96,8 @@ class LeavingOut(LeftOutTest):
         self.left([("const", 4, YES), ("test", 4, 3), ("jump", 4), ("stop", END)], rows, facts=[("kind", 0, "num")])
 
     def test_checks_of_no_piece(self):
-        rows = [("point", 0), ("stop", END), NUMBER, ("check", ("is", 0, NONE), END), ("jump", 6), ("show", 0), SAME, ("stop", END)]
+        rows = [("point", 0), ("stop", END), NUMBER, ("check", ("is", 0, NONE), END), ("jump", 6), ("show", 0), SAME,
+                ("stop", END)]
         version = Version("main", [], [], 6, rows, [(0, (), PIECE.places(0))])
         told = left_out(PIECE.program, version)
         self.assertEqual(told.rows(), rows[:2] + [("jump", 4), ("show", 0), ("stop", END)])
@@ -101,7 +110,8 @@ class LeavingOut(LeftOutTest):
         self.left(rows, rows)
 
     def test_several_pieces(self):
-        rows = [("point", 0), NUMBER, ("show", 0), ("link", 1, 1), ("point", 1), ("check", ("kind", 0, "num"), PIECE.end(0, 1)), ("show", 1),
+        rows = [("point", 0), NUMBER, ("show", 0), ("link", 1, 1), ("point", 1),
+                ("check", ("kind", 0, "num"), PIECE.end(0, 1)), ("show", 1),
                 ("link", 1, 2), ("point", 2), ("return", 0, 0)]
         points = [(0, (), PIECE.places(0)), (1, (("kind", 0, "num"),), PIECE.places(1)), (2, (), PIECE.places(2))]
         version = Version("main", [], [], 6, rows, points)
@@ -122,14 +132,16 @@ class LeavingOut(LeftOutTest):
         told = left_out(piece_of.program, version)
         self.assertEqual([row[1] for row in version.rows()[:8] if row[0] == "check"],
                          [("kind", 0, "num"), ("kind", 1, "num"), ("kind", 2, "num"), ("kind", 1, "num")])
-        self.assertEqual([row[0] for row in told.rows()[:7]], ["point", "check", "check", "variant", "variant", "link", "point"])
+        self.assertEqual([row[0] for row in told.rows()[:7]], ["point", "check", "check", "variant", "variant", "link",
+                                                               "point"])
         shape = (None, ("f",))
         at = [number for number, row in enumerate(told.rows()) if row[0] == "get"]
         told = with_own(piece_of.program, with_own(piece_of.program, told, at[1], shape), at[0], shape)
         told = gone_on(piece_of.program, told, told.rows().index(("link", 1, 3)))
         checks = [row for row in told.rows() if row[0] == "check"]
         # One of the copies is left out; the piece of the second get alone keeps its own.
-        self.assertEqual(len([row for row in left_out(piece_of.program, told).rows() if row[0] == "check"]), len(checks) - 1)
+        self.assertEqual(len([row for row in left_out(piece_of.program, told).rows() if row[0] == "check"]),
+                         len(checks) - 1)
         self.assertTrue(is_closed(piece_of.program, left_out(piece_of.program, told)))
 
 
@@ -156,7 +168,8 @@ class CanGoBack(unittest.TestCase):
     def test_each_word(self):
         piece_of = Piece("fun main(a, b) {let c = call a(b); let c = a.m(b); return c;} fun f(x) {return x;}")
         end = piece_of.end(0, 0)
-        for row in (("check", ("kind", 0, "num"), end), ("global", 2, "g", end), ("get", 2, 0, "f", end), ("set", 0, "f", 1, end),
+        for row in (("check", ("kind", 0, "num"), end), ("global", 2, "g", end), ("get", 2, 0, "f", end),
+                    ("set", 0, "f", 1, end),
                     ("drop", 0, "f", end), ("new", 2, 0, end), ("prim", 2, "add", (0, 1), end), ("stop", end)):
             version = piece_of.version([row, ("stop", end)])
             self.shown(piece_of.program, version, 1, can_go_back(piece_of.program, version, 1))
@@ -165,7 +178,8 @@ class CanGoBack(unittest.TestCase):
         piece_of = Piece("fun main(a, b) {let c = call a(b); let c = a.m(b); return c;} fun f(x) {return x;}")
         version = slow(piece_of.program, "main")
         others = [number for number, row in enumerate(version.rows()) if row[0] not in WITH_END]
-        self.assertTrue({"point", "call", "method", "return", "const", "link"} <= {version.row(number)[0] for number in others})
+        self.assertTrue({"point", "call", "method", "return", "const",
+                         "link"} <= {version.row(number)[0] for number in others})
         for number in others + [None, True, -1, len(version.rows()), 10 ** 40, "0", [], {}, (1,), Shapes(), version]:
             with self.assertRaises(UnknownName) as caught:
                 can_go_back(piece_of.program, version, number)
@@ -182,7 +196,8 @@ class Drawn(unittest.TestCase):
             told = left_out(program, version)
             check_version(program, told)
             self.assertTrue(is_closed(program, told))
-            self.assertEqual([row[0] for row in told.rows() if row[0] != "check"], [row[0] for row in version.rows() if row[0] != "check"])
+            self.assertEqual([row[0] for row in told.rows() if row[0] != "check"],
+                             [row[0] for row in version.rows() if row[0] != "check"])
             left += len(version.rows()) - len(told.rows())
             for k in range(len(told.points())):
                 for number in piece(told, k):

@@ -70,9 +70,12 @@ class Leaves(PaperTest):
         self.wrong(((), "form"), ("open",))
 
     def test_forms(self):
-        for value in STRANGE + (Shapes(), self.version, PIECE.program, "alike", ["alike"], ("alike", ()), ("alike", "alike"), (ALIKE,), ("ask",),
-                                ("ask", ("shape", 0)), ("ask", ("shape", 0), [ALIKE]), ("ask", ("shape", 0), None), ("asks", ("shape", 0), (ALIKE,)),
-                                ["ask", ("shape", 0), (ALIKE,)], ("ask", ("shape", 0), (ALIKE,), ()), (["ask"], ("shape", 0), (ALIKE,)), (0, 0, ())):
+        for value in STRANGE + (Shapes(), self.version, PIECE.program, "alike", ["alike"], ("alike", ()),
+                                ("alike", "alike"), (ALIKE,), ("ask",),
+                                ("ask", ("shape", 0)), ("ask", ("shape", 0), [ALIKE]), ("ask", ("shape", 0), None),
+                                ("asks", ("shape", 0), (ALIKE,)),
+                                ["ask", ("shape", 0), (ALIKE,)], ("ask", ("shape", 0), (ALIKE,), ()),
+                                (["ask"], ("shape", 0), (ALIKE,)), (0, 0, ())):
             self.wrong(((), "form"), value, k=1)
             self.wrong(((0,), "form"), ask(("kind", S1), *[value] * 7), k=1)
 
@@ -82,14 +85,16 @@ class Questions(PaperTest):
         once = ask(("kind", S1), *[ALIKE] * 7)
         self.wrong(None, once, k=1)
         # Asked a second time, a question has one answer that fits the first one.
-        twice = ask(("kind", S1), *[ask(("kind", S1), *[ALIKE if at == first else IMPOSSIBLE for at in range(7)]) for first in range(7)])
+        twice = ask(("kind", S1), *[ask(("kind", S1), *[ALIKE if at == first else IMPOSSIBLE for at in range(7)])
+                                    for first in range(7)])
         self.wrong(None, twice, k=1)
         self.wrong(((0, 1), "leaf"), ask(("kind", S1), *[once] * 7), k=1)
         bits = ask(("kind", S1), ALIKE, ask(("bit", S1), ALIKE, ALIKE), *[ALIKE] * 5)
         self.wrong(None, bits, k=1)
 
     def test_questions_that_do_not_stand(self):
-        for question in STRANGE + (("bit", S1), ("which", S1), ("shape", 0), ("kind", ("start", 7)), ["kind", S1], ("kind", list(S1)), ("kind", S1, 0)):
+        for question in STRANGE + (("bit", S1), ("which", S1), ("shape", 0), ("kind", ("start", 7)), ["kind", S1],
+                                   ("kind", list(S1)), ("kind", S1, 0)):
             self.wrong(((), "question"), ("ask", question, ()), k=1)
             self.wrong(((), "question"), ("ask", question, (ALIKE,) * 7), k=1)
         # It stands at other branches only.
@@ -103,7 +108,8 @@ class Questions(PaperTest):
             self.wrong(((), "answers"), ask(("kind", S1), *[ALIKE] * many), k=1)
             # The number comes ahead of what is wrong in the nodes.
             self.wrong(((), "answers"), ask(("kind", S1), *[None] * many), k=1)
-        self.wrong(((), "answers"), ask(("kind", ("global", "g")), *[ALIKE] * 7), version(watched=[("global", "g", YES)]))
+        self.wrong(((), "answers"), ask(("kind", ("global", "g")), *[ALIKE] * 7),
+                   version(watched=[("global", "g", YES)]))
         self.wrong(((3,), "answers"), ask(("kind", S1), *[ALIKE] * 3, ask(("which", S1), ALIKE), *[ALIKE] * 3), k=1)
 
     def test_the_first_wrong_node(self):
@@ -175,7 +181,8 @@ class SeveralPapers(PaperTest):
 
     def test_too_few_too_many_no_list(self):
         papers = [self.right_paper(), ALIKE]
-        for wrong in (papers[:1], papers[1:], papers + [ALIKE], [], (), None, 2, "ab", {}, {0: papers[0], 1: papers[1]}, Shapes(), self.version, True):
+        for wrong in (papers[:1], papers[1:], papers + [ALIKE], [], (), None, 2, "ab", {},
+                      {0: papers[0], 1: papers[1]}, Shapes(), self.version, True):
             self.judge((2, (), "form"), wrong)
 
     def test_the_first_wrong_paper(self):

@@ -3,9 +3,9 @@
 import random
 import unittest
 
-from enginetools import Guessing, Play
+from enginetools import Guessing
 from pieces import Piece
-from samples import NO, NONE, STRANGE, YES, Maker, ground, ground_book, num, program_of
+from samples import NONE, YES, Maker, ground, ground_book, num, program_of
 from shapeguess.alike import alike
 from shapeguess.choices import can_do
 from shapeguess.engine import Engine
@@ -15,7 +15,7 @@ from shapeguess.quick import Version
 from shapeguess.shapes import Shapes
 from shapeguess.slow import slow
 from shapeguess.special import gone_on
-from shapeguess.states import State, start
+from shapeguess.states import start
 from shapeguess.steps import run
 from shapeguess.trees import Program
 from slowversion import with_part
@@ -167,10 +167,12 @@ class PuttingAndEntering(DriverTest):
         text = ("fun main(a) {let o = new(none); let p = new(none); p.h = a; o.g = a; o.h = a; show call &f(o, #num:1); show call &f(p, #num:1); "
                 "show call &f(p, #num:1); return call &f(o, yes);} fun f(x, y) {let z = x.h; show y; return z;}")
         piece = Piece(text, "f")
-        facts = [(1, (("kind", 1, "bit"),)), (0, (("kind", 1, "num"), ("kind", 0, "num"))), (0, (("kind", 1, "bit"),)), (0, (("kind", 1, "bit"),))]
+        facts = [(1, (("kind", 1, "bit"),)), (0, (("kind", 1, "num"), ("kind", 0, "num"))), (0, (("kind", 1, "bit"),)),
+                 (0, (("kind", 1, "bit"),))]
         rows = [row for k, (at, _) in enumerate(facts) for row in (("point", k), ("stop", piece.end(0, at)))]
         version = Version("f", [], [], 4, rows, [(at, told, piece.places(at)) for at, told in facts])
-        driver = self.driver(1, 5, lambda engine, function: (version, ()) if function == "f" else None, self.engine(piece.program))
+        driver = self.driver(1, 5, lambda engine, function: (version, ()) if function == "f" else None,
+                             self.engine(piece.program))
         # While the second argument is a number, no point fits at row 0, and the cell of the get learns two shapes.
         made = self.choices_until(driver, "enter")
         self.assertEqual(made.count(("put", version, ())), 2)
@@ -280,15 +282,18 @@ class GoingsBack(DriverTest):
 
     def test_an_end_into_several_frames(self):
         rest = "fun f(x) {let w = x.f; let y = call &g(x); return y;} fun g(x) {let z = x.f; return z;}"
-        piece = Piece("fun main(a) {let o = new(none); o.f = a; show call &f(o); show call &f(o); return a;} " + rest, "f")
+        piece = Piece("fun main(a) {let o = new(none); o.f = a; show call &f(o); show call &f(o); return a;} " + rest,
+                      "f")
         inside = (3, (("f", 2, ()), ("g", 0, ((0, ("reg", 0)),))))
         rows = [("point", 0), ("get", 1, 0, "f", piece.end(0, 0)), ("stop", inside)]
         version = Version("f", [], [], piece.code.registers(), rows, [(0, (), piece.places(0))])
-        driver = self.driver(1, 5, lambda engine, function: (version, ()) if function == "f" else None, self.engine(piece.program))
+        driver = self.driver(1, 5, lambda engine, function: (version, ()) if function == "f" else None,
+                             self.engine(piece.program))
         self.choices_until(driver, "put")
         driver.go()
         self.assertEqual(driver.go(), ("step",))
-        self.assertEqual([frame[:2] for frame in driver.engine().frames()], [("plain", "main"), ("plain", "f"), ("plain", "g")])
+        self.assertEqual([frame[:2] for frame in driver.engine().frames()],
+                         [("plain", "main"), ("plain", "f"), ("plain", "g")])
         self.assertEqual(driver.goings_back(0), 1)
 
     def test_a_version_that_the_step_itself_throws_away(self):
@@ -317,7 +322,8 @@ class GoingsBack(DriverTest):
         program = program_of("fun main(a) {let o = new(none); o.f = a; show call &f(o); show call &f(o); return a;} fun f(x) {let y = x.f; return y;}")
         piece = Piece("fun main(a) {} fun f(x) {let y = x.f; return y;}", "f")
         whole = gone_on(piece.program, slow(piece.program, "f"), 2)
-        driver = self.driver(1, 0, lambda engine, function: (whole, ()) if function == "f" else None, self.engine(program))
+        driver = self.driver(1, 0, lambda engine, function: (whole, ()) if function == "f" else None,
+                             self.engine(program))
         self.choices_until(driver, "put")
         driver.go()
         self.assertEqual(driver.go(), ("step",))
@@ -402,7 +408,9 @@ class Drawn(DriverTest):
         puts = 0
         for seed in range(40):
             draw = random.Random(seed)
-            program, arguments = (PROGRAM, [num(1)]) if seed % 3 == 0 else (Program(ground(), Maker(seed).lively_functions()), [])
+            program, arguments = (PROGRAM,
+                                  [num(1)]) if seed % 3 == 0 else (Program(ground(), Maker(seed).lively_functions()),
+                                                                   [])
             most, warm, backs = draw.randint(1, 3), draw.randint(1, 3), draw.randint(0, 2)
             engine = self.engine(program, arguments, most)
             told = []
@@ -428,7 +436,8 @@ class Drawn(DriverTest):
 
     def bounds(self, program, begin, driver, most, warm, backs):
         engine = driver.engine()
-        plain, made = run(start(program, BOOK, "main", begin.rebuilt().frames()[0][2][:len(program.function("main")[1])]), engine.steps())
+        plain, made = run(start(program, BOOK, "main",
+                                begin.rebuilt().frames()[0][2][:len(program.function("main")[1])]), engine.steps())
         self.assertEqual(made, engine.steps())
         self.assertTrue(alike(plain, engine.rebuilt()))
         versions = engine.versions()

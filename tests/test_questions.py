@@ -202,11 +202,13 @@ class BitsAndWhich(Asking):
             self.stands(("which", term), ("kind", S0), "num")
             self.falls(("which", term))
         # Deep down, too, each argument counts.
-        for last, fine in ((S1, True), (S2, False), (val(num(2)), False), (val(None), False), (val([]), False), ([], False)):
+        for last, fine in ((S1, True), (S2, False), (val(num(2)), False), (val(None), False), (val([]), False),
+                           ([], False)):
             term = variant("addnum", S0, last)
             for _ in range(20):
                 term = variant("addnum", S0, term)
-            self.assertEqual(self.ask(("which", term), ("kind", S0), "num", ("kind", S1), "num", ("kind", S2), "col"), fine)
+            self.assertEqual(self.ask(("which", term), ("kind", S0), "num", ("kind", S1), "num", ("kind", S2), "col"),
+                             fine)
 
 
 class AboutObjects(Asking):
@@ -217,7 +219,8 @@ class AboutObjects(Asking):
             self.falls(("shape", o))
         self.stands(("shape", 2), ("kind", S0), "obj", ("which", S0), "further")
         self.assertEqual(self.answers(("shape", 0)), ["other"])
-        version = made([("shape", 0, ("n", ("f", "g"))), ("shape", 1, (None, ()))], rows=[("set", 0, "g", 1, PIECE.end(0, 0))])
+        version = made([("shape", 0, ("n", ("f", "g"))), ("shape", 1, (None, ()))],
+                       rows=[("set", 0, "g", 1, PIECE.end(0, 0))])
         told = [("n", ("f", "g")), (None, ()), ("n", ("f",)), "other"]
         self.assertEqual(self.answers(("shape", 1), version=version), told)
 
@@ -265,7 +268,8 @@ class AboutObjects(Asking):
         self.falls(("parent", 0), ("shape", 0), (None, ("f",)), version=version)
 
     def test_asked_again(self):
-        members = [("shape", 0), "other", ("has", 0, "f"), "yes", ("parent", 0), "none", ("kind", S0), "bit", ("bit", S0), "no"]
+        members = [("shape", 0), "other", ("has", 0, "f"), "yes", ("parent", 0), "none", ("kind", S0), "bit",
+                   ("bit", S0), "no"]
         for question in members[::2]:
             self.stands(question, *members)
         self.stands(("kind", G), version=made(watched=[("global", "g", YES)]))
@@ -293,9 +297,12 @@ class NoQuestions(Asking):
             self.falls((None,) + question[1:], *members)
             self.falls((["kind"],) + question[1:], *members)
             self.falls((question,), *members)
-        for term in (list(S0), ("start",), S0 + (0,), ("start", "0"), ("start", [0]), ("begin", 0), ("global",), ["global", "g"],
-                     ("global", 0), ("global", None), G + ("g",), ("field", 0), ("field", 0, "f", "f"), ("field", True, "f"),
-                     ("field", False, "f"), ("field", "n", "f"), ("field", 0, 0), ("field", 0, ["f"]), ("field", 2, "f"),
+        for term in (list(S0), ("start",), S0 + (0,), ("start", "0"), ("start", [0]), ("begin", 0), ("global",),
+                     ["global", "g"],
+                     ("global", 0), ("global", None), G + ("g",), ("field", 0), ("field", 0, "f", "f"),
+                     ("field", True, "f"),
+                     ("field", False, "f"), ("field", "n", "f"), ("field", 0, 0), ("field", 0, ["f"]),
+                     ("field", 2, "f"),
                      ("known", 0), ("fresh", 0), ("class", 0), ((), 0)):
             self.falls(("kind", term), *members)
         self.falls(("has", False, "f"), *members)
@@ -346,7 +353,8 @@ class Settled(unittest.TestCase):
         self.assertEqual(self.at(G, ("kind", G), "fun", ("which", G), "further"), ("mark", "fun", 2))
 
     def test_by_facts(self):
-        for mark, meaning in ((NONE, val(NONE)), (YES, val(YES)), (num(3), ("mark", "num", 1)), (("name", "o"), ("known", 1)),
+        for mark, meaning in ((NONE, val(NONE)), (YES, val(YES)), (num(3), ("mark", "num", 1)),
+                              (("name", "o"), ("known", 1)),
                               (("err", "bit"), ("mark", "err", 0)), (("fun", "z"), ("mark", "fun", 1))):
             self.assertEqual(self.at(S0, facts=[("is", 0, mark)]), meaning)
             self.assertEqual(self.at(G, watched=[("global", "g", mark)]), meaning)
@@ -360,7 +368,8 @@ class Settled(unittest.TestCase):
     def test_same_terms(self):
         facts = [("same", 1, 2), ("same", 2, 0)]
         self.assertEqual(self.at(S1, ("kind", S0), "bit", ("bit", S2), "yes", facts=facts), val(YES))
-        for facts, settled in (([("same", 0, 1)], [True, True, False]), ([("same", 2, 0)], [True, False, True]), ([("same", 1, 2)], [True, False, False]),
+        for facts, settled in (([("same", 0, 1)], [True, True, False]), ([("same", 2, 0)], [True, False, True]),
+                               ([("same", 1, 2)], [True, False, False]),
                                ([("same", 2, 2)], [True, False, False])):
             told = [self.at(term, ("kind", S0), "none", facts=facts) is not None for term in (S0, S1, S2)]
             self.assertEqual(told, settled)
@@ -398,7 +407,8 @@ class Settled(unittest.TestCase):
         found = answered + [("which", inner), "further", ("which", S1), 2]
         self.assertEqual(self.at(variant("addnum", S1, S2), *found), ("mark", "num", 1))
         # What is settled late settles an inner one, and so an outer one.
-        late = numbers + [("which", variant("negnum", inner)), "further", ("which", other), 0, ("which", S0), 0, ("which", S1), 0]
+        late = numbers + [("which", variant("negnum", inner)), "further", ("which", other), 0, ("which", S0), 0,
+                          ("which", S1), 0]
         self.assertEqual(self.at(inner, *late), ("mark", "num", 0))
         self.assertEqual(self.at(variant("negnum", val(num(1))), *late), ("mark", "num", 0))
 
@@ -428,7 +438,8 @@ class Impossible(unittest.TestCase):
         self.fine(facts=[("kind", 0, "num"), ("kind", 1, "col")])
         self.bad(("kind", S0), "num", facts=[("shape", 0, (None, ()))])
         self.fine(("kind", S0), "obj", facts=[("shape", 0, (None, ()))])
-        for mark, kind in ((NONE, "none"), (YES, "bit"), (num(1), "num"), (("name", "n"), "obj"), (("err", "e"), "err")):
+        for mark, kind in ((NONE, "none"), (YES, "bit"), (num(1), "num"), (("name", "n"), "obj"),
+                           (("err", "e"), "err")):
             for told in KINDS:
                 self.check(told != kind, [("kind", S0), told], made([("is", 0, mark)]))
                 self.check(told != kind, [("kind", G), told], made(watched=[("global", "g", mark)]))
@@ -481,7 +492,8 @@ class Impossible(unittest.TestCase):
             for other in ((None, ("f",)), ("o", ("f",)), "other"):
                 self.check(one != other, [("shape", 0), one, ("shape", 0), other], made(facts))
                 self.check(False, [("shape", 0), (None, ("f",)), ("shape", 1), "other"], made(facts))
-            self.check(one != (None, ("f",)), [("shape", 0), one], made(facts, watched=[("holds", "n", (None, ("f",)))]))
+            self.check(one != (None, ("f",)), [("shape", 0), one],
+                       made(facts, watched=[("holds", "n", (None, ("f",)))]))
             self.check(one != (None, ("f",)), [("shape", 0), one, ("which", S0), 0], made(facts))
             self.check(one != (None, ("f",)), [("which", S0), 0, ("shape", 0), one], made(facts))
         self.bad(watched=[("holds", "n", (None, ())), ("holds", "n", (None, ("f",)))])

@@ -22,7 +22,8 @@ class Readme(unittest.TestCase):
         self.assertIn("('fun', 'inc') [(0, ('own', 0))]", lines)
         self.assertIn("[('holds', 'box', (None, ('inc',)))]", lines)
         self.assertIn(f"('return', 4, [{num}, ('tok', 'num', 1)], ([], {{}}, []))", lines)
-        for line in ("closed None", "('kind', ('start', 0)) ((), 'leaf')", "alike", "open None", "3 [('plain', 'main', 5)]", "True True",
+        for line in ("closed None", "('kind', ('start', 0)) ((), 'leaf')", "alike", "open None",
+                     "3 [('plain', 'main', 5)]", "True True",
                      "['point', 'const', 'check', 'variant', 'return']"):
             self.assertIn(line, lines)
         self.assertEqual(lines.count("True"), 5)

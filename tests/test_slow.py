@@ -31,7 +31,8 @@ class Rows(unittest.TestCase):
 
     def test_the_whole_version_by_hand(self):
         version = self.rows("fun main(a) {if a {show a;} return a.f;}")
-        end = [(0, (("main", row, tuple((r, ("reg", r)) for r in live)),)) for row, live in enumerate([[0], [0], [0], [1], [], [1]])]
+        end = [(0, (("main", row, tuple((r, ("reg", r)) for r in live)),)) for row,
+               live in enumerate([[0], [0], [0], [1], [], [1]])]
         self.assertEqual(version.rows(), [
             ("point", 0), ("check", ("kind", 0, "bit"), end[0]), ("test", 0, 4), ("link", 1, 1), ("link", 1, 2),
             ("point", 1), ("show", 0), ("link", 1, 2),
@@ -44,7 +45,8 @@ class Rows(unittest.TestCase):
 
     def test_the_least_function(self):
         version = self.rows("fun main() {}")
-        self.assertEqual(version.rows(), [("point", 0), ("const", 0, NONE), ("link", 1, 1), ("point", 1), ("return", 0, 0)])
+        self.assertEqual(version.rows(), [("point", 0), ("const", 0, NONE), ("link", 1, 1), ("point", 1),
+                                          ("return", 0, 0)])
         self.assertEqual(version.points(), [(0, (), ()), (1, (), ((0, ("reg", 0)),))])
 
     def test_each_row_by_its_word(self):
@@ -69,7 +71,8 @@ class Rows(unittest.TestCase):
                 self.assertEqual(made, [("link", 1, row[1])])
             elif row[0] == "test":
                 last = rows.index(("point", i)) + 4
-                self.assertEqual(made, [("check", ("kind", row[1], "bit"), end), ("test", row[1], last), ("link", 1, i + 1), ("link", 1, row[2])])
+                self.assertEqual(made, [("check", ("kind", row[1], "bit"), end), ("test", row[1], last),
+                                        ("link", 1, i + 1), ("link", 1, row[2])])
             elif row[0] == "return":
                 self.assertEqual(made, [("return", 0, row[1])])
             elif row[0] == "throw":

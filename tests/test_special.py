@@ -3,15 +3,16 @@
 import itertools
 import unittest
 
-from pieces import Piece, val
-from samples import NO, NONE, STRANGE, YES, num, program_of
+from pieces import Piece
+from samples import NO, NONE, STRANGE, YES, num
 from shapeguess.checking import check_version
 from shapeguess.deciding import is_closed
 from shapeguess.errors import BadShape, UnknownName
 from shapeguess.quick import Version
 from shapeguess.shapes import Shapes
 from shapeguess.slow import slow
-from shapeguess.special import (gone_on, specialized, with_above, with_global, with_grown, with_method, with_own, with_variant)
+from shapeguess.special import (gone_on, specialized, with_above, with_global, with_grown, with_method, with_own,
+                                with_variant)
 from slowversion import parts_of, with_part
 from versionsample import PROGRAM, sample
 
@@ -38,7 +39,8 @@ class MakerTest(unittest.TestCase):
         self.assertIsInstance(told, Version)
         check_version(piece.program, told)
         self.assertEqual(parts_of(version), kept)
-        self.assertEqual((told.function(), told.names(), told.points()), (version.function(), version.names(), version.points()))
+        self.assertEqual((told.function(), told.names(), told.points()),
+                         (version.function(), version.names(), version.points()))
         return told
 
     def refused(self, piece, version, maker, number, *more):
@@ -54,7 +56,8 @@ END = PIECE.end(0, 0)
 
 def around(row, **more):
     """A version whose row 4 is this one; tests lead over it and to it, and the jump behind it leads further."""
-    rows = [("const", 5, YES), ("test", 5, 6), ("test", 5, 4), row, ("jump", 7), ("const", 2, NONE), ("const", 2, NONE), ("stop", END)]
+    rows = [("const", 5, YES), ("test", 5, 6), ("test", 5, 4), row, ("jump", 7), ("const", 2, NONE),
+            ("const", 2, NONE), ("stop", END)]
     return PIECE.version(rows, names=["n", "o"], **more)
 
 
@@ -112,7 +115,8 @@ class OwnAndGrown(MakerTest):
         version = PIECE.version([("get", 2, 0, "f", END), ("link", 1, 1)], names=["n"], points=[(1, ())])
         for shape in (("n", ("f",)), (None, ("e", "f", "g"))):
             told = self.made(PIECE, version, with_own, 1, shape)
-            self.assertEqual(told.rows()[1:4], [("check", ("shape", 0, shape), END), ("load", 2, 0, shape, "f"), ("link", 1, 1)])
+            self.assertEqual(told.rows()[1:4], [("check", ("shape", 0, shape), END), ("load", 2, 0, shape, "f"),
+                                                ("link", 1, 1)])
             self.assertEqual((told.registers(), told.watched()), (version.registers(), []))
             self.assertTrue(is_closed(PIECE.program, told))
         for shape in (("n", ()), ("n", ("e",)), ("o", ("f",))):
@@ -126,7 +130,8 @@ class OwnAndGrown(MakerTest):
             maker, other = (with_own, with_grown) if "f" in shape[1] else (with_grown, with_own)
             told = self.made(piece, version, maker, 1, shape)
             word = "store" if maker == with_own else "grow"
-            self.assertEqual(told.rows()[1:4], [("check", ("shape", 0, shape), end), (word, 0, shape, "f", 1), ("link", 1, 1)])
+            self.assertEqual(told.rows()[1:4], [("check", ("shape", 0, shape), end), (word, 0, shape, "f", 1),
+                                                ("link", 1, 1)])
             self.assertEqual((told.registers(), told.watched()), (version.registers(), []))
             self.assertTrue(is_closed(piece.program, told))
             self.refused(piece, version, other, 1, shape)
@@ -135,10 +140,12 @@ class OwnAndGrown(MakerTest):
     def test_things_that_are_no_shapes(self):
         piece = Piece("fun main(a, b) {a.f = b; return a;}")
         version = piece.version([("set", 0, "f", 1, piece.end(0, 0)), ("link", 1, 1)], names=["n"], points=[(1, ())])
-        for shape in STRANGE + (("n", ["f"]), ["n", ("f",)], ("n",), ("n", ("f",), ()), (0, ("f",)), ("n", "f"), ("n", ("f", "f")),
+        for shape in STRANGE + (("n", ["f"]), ["n", ("f",)], ("n",), ("n", ("f",), ()), (0, ("f",)), ("n", "f"),
+                                ("n", ("f", "f")),
                                 ("n", ("f", 0)), ("n", (None, "f")), (("n",), ("f",)), Shapes(), version):
             self.refused(piece, version, with_own, 1, shape)
-        for shape in STRANGE + (("n", ["e"]), ["n", ()], ("n",), ("n", (), ()), (0, ()), ("n", "e"), ("n", ("e", "e")), ("n", (0,)),
+        for shape in STRANGE + (("n", ["e"]), ["n", ()], ("n",), ("n", (), ()), (0, ()), ("n", "e"), ("n", ("e", "e")),
+                                ("n", (0,)),
                                 (["n"], ()), Shapes(), version):
             self.refused(piece, version, with_grown, 1, shape)
 
@@ -152,7 +159,8 @@ class AboveAndMethods(MakerTest):
         told = self.made(PIECE, version, with_above, 1, SHAPE, ONE)
         x = version.registers()
         self.assertEqual(told.rows()[1:5], [
-            ("check", ("shape", 0, SHAPE), END), ("const", x, ("name", "n")), ("load", 2, x, LAST, "f"), ("link", 1, 1)])
+            ("check", ("shape", 0, SHAPE), END), ("const", x, ("name", "n")), ("load", 2, x, LAST, "f"),
+                                            ("link", 1, 1)])
         self.assertEqual((told.registers(), told.watched()), (x + 1, [("holds", "n", LAST)]))
         self.assertTrue(is_closed(PIECE.program, told))
 
@@ -161,7 +169,8 @@ class AboveAndMethods(MakerTest):
         told = self.made(PIECE, version, with_above, 1, SHAPE, TWO)
         x = version.registers()
         self.assertEqual(told.rows()[1:5], [
-            ("check", ("shape", 0, SHAPE), END), ("const", x, ("name", "o")), ("load", 2, x, LAST, "f"), ("link", 1, 1)])
+            ("check", ("shape", 0, SHAPE), END), ("const", x, ("name", "o")), ("load", 2, x, LAST, "f"),
+                                            ("link", 1, 1)])
         self.assertEqual((told.registers(), told.watched()), (x + 1, [("holds", "n", MIDDLE), ("holds", "o", LAST)]))
         self.assertTrue(is_closed(PIECE.program, told))
 
@@ -180,8 +189,10 @@ class AboveAndMethods(MakerTest):
     def test_chains_that_lead_elsewhere(self):
         version = self.get()
         for shape, chain in (
-            (SHAPE, (("o", LAST),)), ((None, ("a",)), ONE), (("o", ("a",)), ONE), (("n", ("f",)), ONE), (SHAPE, (("n", (None, ("g",))),)),
-            (SHAPE, (("n", MIDDLE),)), (SHAPE, (("n", MIDDLE), ("p", LAST))), (SHAPE, (("n", ("o", ("f",))), ("o", LAST))),
+            (SHAPE, (("o", LAST),)), ((None, ("a",)), ONE), (("o", ("a",)), ONE), (("n", ("f",)), ONE),
+                             (SHAPE, (("n", (None, ("g",))),)),
+            (SHAPE, (("n", MIDDLE),)), (SHAPE, (("n", MIDDLE), ("p", LAST))),
+                             (SHAPE, (("n", ("o", ("f",))), ("o", LAST))),
             (SHAPE, (("n", (None, ("c",))), ("o", LAST))), (SHAPE, (("o", MIDDLE), ("o", LAST))), (SHAPE, ()),
             (("q", ("a",)), (("q", LAST),)), (SHAPE, (("n", MIDDLE), ("o", ("p", ("c",))), ("p", LAST))),
         ):
@@ -189,8 +200,10 @@ class AboveAndMethods(MakerTest):
 
     def test_bent_chains(self):
         version = self.get()
-        for chain in STRANGE + ([("n", LAST)], (["n", LAST],), (("n", list(LAST)),), (("n",),), (("n", LAST, ()),), ("n", LAST), (("n", None),),
-                                ((0, LAST),), ((None, LAST),), (("n", (None, ["f"])),), ((("n",), LAST),), Shapes(), {"n": LAST}):
+        for chain in STRANGE + ([("n", LAST)], (["n", LAST],), (("n", list(LAST)),), (("n",),), (("n", LAST, ()),),
+                                ("n", LAST), (("n", None),),
+                                ((0, LAST),), ((None, LAST),), (("n", (None, ["f"])),), ((("n",), LAST),), Shapes(),
+                                {"n": LAST}):
             self.refused(PIECE, version, with_above, 1, SHAPE, chain)
             self.refused(PIECE, version, with_above, 1, SHAPE, (("n", MIDDLE), chain))
         for shape in STRANGE + (("n", ["a"]), ["n", ("a",)], ("n",), (("n",), ("a",)), Shapes()):
@@ -201,18 +214,23 @@ class AboveAndMethods(MakerTest):
         end = piece.end(0, 0)
         version = piece.version([("method", 2, 0, "m", (1,), end, 1)], names=["n", "o"], points=[(1, ())])
         x = version.registers()
-        for chain, name, facts in ((ONE, "n", [("holds", "n", LAST)]), (TWO, "o", [("holds", "n", MIDDLE), ("holds", "o", LAST)])):
+        for chain, name, facts in ((ONE, "n", [("holds", "n", LAST)]),
+                                   (TWO, "o", [("holds", "n", MIDDLE), ("holds", "o", LAST)])):
             for function in ("f", "main", "g"):
                 told = self.made(piece, version, with_method, 1, SHAPE, chain, function)
                 self.assertEqual(told.rows()[1:4], [
-                    ("check", ("shape", 0, SHAPE), end), ("const", x, ("fun", function)), ("call", 2, x, (0, 1), end, 1)])
-                self.assertEqual((told.registers(), told.watched()), (x + 1, facts + [("slot", name, "m", ("fun", function))]))
+                    ("check", ("shape", 0, SHAPE), end), ("const", x, ("fun", function)),
+                                                    ("call", 2, x, (0, 1), end, 1)])
+                self.assertEqual((told.registers(), told.watched()),
+                                 (x + 1, facts + [("slot", name, "m", ("fun", function))]))
                 self.assertTrue(is_closed(piece.program, told))
         told = [("slot", "n", "m", ("fun", "f")), ("holds", "n", LAST)]
-        self.assertEqual(self.made(piece, with_part(version, watched=told), with_method, 1, SHAPE, ONE, "f").watched(), told)
+        self.assertEqual(self.made(piece, with_part(version, watched=told), with_method, 1, SHAPE, ONE, "f").watched(),
+                         told)
         for function in STRANGE + ("zz", "m", ("fun", "f"), ["f"], Shapes()):
             self.refused(piece, version, with_method, 1, SHAPE, ONE, function)
-        for shape, chain in ((SHAPE, (("n", (None, ("f",))),)), (("n", ("m",)), ONE), (SHAPE, None), (None, ONE), (SHAPE, (("o", LAST),)),
+        for shape, chain in ((SHAPE, (("n", (None, ("f",))),)), (("n", ("m",)), ONE), (SHAPE, None), (None, ONE),
+                             (SHAPE, (("o", LAST),)),
                              (SHAPE, [("n", LAST)]), (SHAPE, (("n", ("o", ("m",))), ("o", LAST)))):
             self.refused(piece, version, with_method, 1, shape, chain, "f")
 
@@ -224,18 +242,22 @@ class VariantsAndGlobals(MakerTest):
         version = piece.version([("prim", 2, "add", (0, 1), end), ("link", 1, 1)], points=[(1, ())])
         for variant, kinds in (("addnum", ("num", "num")), ("paint", ("num", "col"))):
             told = self.made(piece, version, with_variant, 1, variant)
-            self.assertEqual(told.rows()[1:5], [("check", ("kind", 0, kinds[0]), end), ("check", ("kind", 1, kinds[1]), end),
+            self.assertEqual(told.rows()[1:5], [("check", ("kind", 0, kinds[0]), end),
+                                                ("check", ("kind", 1, kinds[1]), end),
                                                 ("variant", 2, variant, (0, 1)), ("link", 1, 1)])
             self.assertTrue(is_closed(piece.program, told))
         for variant in STRANGE + ("add", "negnum", "lessnum", "zz", ("addnum",), ["addnum"], Shapes()):
             self.refused(piece, version, with_variant, 1, variant)
         version = piece.version([("prim", 2, "neg", (1,), later), ("link", 1, 1)], points=[(2, ())], at=1)
         told = self.made(piece, version, with_variant, 1, "negnum")
-        self.assertEqual(told.rows()[1:4], [("check", ("kind", 1, "num"), later), ("variant", 2, "negnum", (1,)), ("link", 1, 1)])
+        self.assertEqual(told.rows()[1:4], [("check", ("kind", 1, "num"), later), ("variant", 2, "negnum", (1,)),
+                                            ("link", 1, 1)])
         # The same register as both arguments, and variants with another number of them.
-        version = piece.version([("prim", 2, "add", (1, 1), end), ("prim", 2, "add", (1,), end), ("prim", 2, "neg", (1, 1), end), ("prim", 2, "add", (), end),
+        version = piece.version([("prim", 2, "add", (1, 1), end), ("prim", 2, "add", (1,), end),
+                                 ("prim", 2, "neg", (1, 1), end), ("prim", 2, "add", (), end),
                                  ("prim", 2, "idle", (1,), end), ("stop", end)])
-        self.assertEqual(self.made(piece, version, with_variant, 1, "addnum").rows()[1:3], [("check", ("kind", 1, "num"), end)] * 2)
+        self.assertEqual(self.made(piece, version, with_variant, 1, "addnum").rows()[1:3],
+                         [("check", ("kind", 1, "num"), end)] * 2)
         for number, variant in ((2, "addnum"), (3, "negnum"), (4, "addnum"), (5, "addnum")):
             self.refused(piece, version, with_variant, number, variant)
 
@@ -248,7 +270,8 @@ class VariantsAndGlobals(MakerTest):
             self.assertEqual(told.rows()[1:3], [("const", 1, mark), ("link", 1, 1)])
             self.assertEqual((told.registers(), told.watched()), (version.registers(), [("global", "g", mark)]))
             self.assertTrue(is_closed(piece.program, told))
-        for mark in STRANGE + (("name", "o"), ("name",), ["name", "n"], ("obj", 0), ("tok", "red", 0), ("tok", "num", -1), ("bit", "maybe"), list(YES),
+        for mark in STRANGE + (("name", "o"), ("name",), ["name", "n"], ("obj", 0), ("tok", "red", 0),
+                               ("tok", "num", -1), ("bit", "maybe"), list(YES),
                                ("fun", "Main"), ("none", "none"), Shapes()):
             self.refused(piece, version, with_global, 1, mark)
 
@@ -258,7 +281,8 @@ class VariantsAndGlobals(MakerTest):
         once = self.made(piece, piece.version(rows, points=[(2, ())]), with_global, 1, YES)
         self.assertEqual(self.made(piece, once, with_global, 2, YES).watched(), [("global", "g", YES)])
         # Two marks contradict each other, but this makes no version that is not right.
-        self.assertEqual(self.made(piece, once, with_global, 2, NO).watched(), [("global", "g", YES), ("global", "g", NO)])
+        self.assertEqual(self.made(piece, once, with_global, 2, NO).watched(),
+                         [("global", "g", YES), ("global", "g", NO)])
 
 
 class Breaking(MakerTest):
@@ -268,7 +292,8 @@ class Breaking(MakerTest):
 
     def version(self, ahead, row, watched=()):
         end = self.piece.end(0, 0)
-        rows = [told if told[0] in ("put", "store", "grow", "const", "show", "jump", "test", "move", "load") else told + (end,) for told in ahead]
+        rows = [told if told[0] in ("put", "store", "grow", "const", "show", "jump", "test", "move", "load")
+                else told + (end,) for told in ahead]
         if row[0] == "method":
             rows.append(row + (self.piece.end(0, 2), 1))
         else:
@@ -286,7 +311,8 @@ class Breaking(MakerTest):
 
     def test_globals(self):
         row = ("global", 2, "g")
-        for ahead, possible in ((("put", "g", 0), False), (("put", "h", 0), True), (("set", 0, "g", 1), True), (("drop", 0, "g"), True),
+        for ahead, possible in ((("put", "g", 0), False), (("put", "h", 0), True), (("set", 0, "g", 1), True),
+                                (("drop", 0, "g"), True),
                                 (("show", 0), True), (("global", 3, "g"), True)):
             self.tried(possible, [ahead], row, with_global, YES)
             self.tried(possible, [ahead], row, with_global, YES, watched=[("global", "g", YES)])
@@ -309,8 +335,10 @@ class Breaking(MakerTest):
 
     def test_shapes_above(self):
         for ahead, possible in (
-            (("set", 0, "z", 1), False), (("set", 0, "f", 1), True), (("set", 0, "m", 1), True), (("set", 0, "c", 1), False),
-            (("grow", 0, (None, ()), "z", 1), False), (("grow", 0, (None, ()), "f", 1), True), (("grow", 0, (None, ()), "c", 1), False),
+            (("set", 0, "z", 1), False), (("set", 0, "f", 1), True), (("set", 0, "m", 1), True),
+                                (("set", 0, "c", 1), False),
+            (("grow", 0, (None, ()), "z", 1), False), (("grow", 0, (None, ()), "f", 1), True),
+                                (("grow", 0, (None, ()), "c", 1), False),
             (("store", 0, (None, ("z",)), "z", 1), True), (("store", 0, (None, ("f",)), "f", 1), True),
             (("drop", 0, "f"), False), (("drop", 0, "m"), False), (("drop", 0, "z"), True), (("drop", 0, "c"), True),
             (("put", "f", 0), True), (("get", 3, 0, "z"), True), (("load", 3, 0, (None, ("z",)), "z"), True),
@@ -318,13 +346,16 @@ class Breaking(MakerTest):
             self.tried(possible, [ahead], ("get", 2, 0, "f"), with_above, SHAPE, ONE)
             self.tried(possible, [ahead], ("get", 2, 0, "f"), with_above, SHAPE, ONE, watched=[("holds", "n", LAST)])
         # With two shapes, each of which counts.
-        for ahead, possible in ((("set", 0, "f", 1), False), (("set", 0, "c", 1), False), (("drop", 0, "c"), False), (("drop", 0, "f"), False),
+        for ahead, possible in ((("set", 0, "f", 1), False), (("set", 0, "c", 1), False), (("drop", 0, "c"), False),
+                                (("drop", 0, "f"), False),
                                 (("drop", 0, "z"), True), (("store", 0, (None, ("f",)), "f", 1), True)):
             self.tried(possible, [ahead], ("get", 2, 0, "f"), with_above, SHAPE, TWO)
 
     def test_methods(self):
-        for ahead, possible in ((("set", 0, "m", 1), False), (("store", 0, (None, ("m",)), "m", 1), False), (("grow", 0, (None, ()), "m", 1), False),
-                                (("drop", 0, "m"), False), (("store", 0, (None, ("f",)), "f", 1), True), (("set", 0, "f", 1), True), (("drop", 0, "z"), True),
+        for ahead, possible in ((("set", 0, "m", 1), False), (("store", 0, (None, ("m",)), "m", 1), False),
+                                (("grow", 0, (None, ()), "m", 1), False),
+                                (("drop", 0, "m"), False), (("store", 0, (None, ("f",)), "f", 1), True),
+                                (("set", 0, "f", 1), True), (("drop", 0, "z"), True),
                                 (("put", "m", 1), True), (("set", 0, "z", 1), False)):
             self.tried(possible, [ahead], ("method", 2, 0, "m", (1,)), with_method, SHAPE, ONE, "f")
 
@@ -340,7 +371,8 @@ class Breaking(MakerTest):
 
     def test_gone_on(self):
         for watched, breaking in ((("global", "g", YES), ("put", "g", 0)), (("slot", "n", "f", NO), ("set", 0, "f", 1)),
-                                  (("holds", "n", (None, ("z",))), ("grow", 0, (None, ()), "f", 1)), (("slot", "o", "f", NO), ("drop", 0, "f"))):
+                                  (("holds", "n", (None, ("z",))), ("grow", 0, (None, ()), "f", 1)),
+                                  (("slot", "o", "f", NO), ("drop", 0, "f"))):
             self.tried(False, [("const", 2, NONE), breaking], ("link", 3, 1), gone_on, watched=[watched])
             self.tried(True, [("const", 2, NONE), breaking], ("link", 3, 1), gone_on)
             self.tried(True, [("const", 2, NONE), breaking], ("link", 3, 1), gone_on, watched=[("global", "w", YES)])
@@ -350,8 +382,10 @@ class GoneOn(MakerTest):
     def test_counts(self):
         piece = Piece("fun main(a, b) {let c = a.f; let d = call &f(a, c); show d; return c;} fun f(s, x) {return x;}")
         told = slow(piece.program, "main")
-        self.assertEqual([row[0] for row in told.rows()], ["point", "get", "link", "point", "const", "link", "point", "call", "point", "show", "link",
-                                                           "point", "return", "point", "const", "link", "point", "return"])
+        self.assertEqual([row[0] for row in told.rows()], ["point", "get", "link", "point", "const", "link", "point",
+                                                           "call", "point", "show", "link",
+                                                           "point", "return", "point", "const", "link", "point",
+                                                           "return"])
         one = self.made(piece, told, gone_on, 2)
         self.assertEqual(one.rows()[:5], [("point", 0), told.row(1), told.row(4), ("link", 2, 2), ("point", 1)])
         two = self.made(piece, one, gone_on, 3)
@@ -371,17 +405,21 @@ class GoneOn(MakerTest):
         self.assertEqual(told.rows()[:4], [("point", 0), version.row(1), get[:4] + ((1, get[4][1]),), ("link", 2, 2)])
         # A link that counts more steps, and one that leads to a piece with a link that does.
         again = self.made(piece, self.made(piece, version, gone_on, 5), gone_on, 2)
-        self.assertEqual(again.rows()[:4], [("point", 0), version.row(1), get[:4] + ((1, get[4][1]),), ("return", 2, 1)])
+        self.assertEqual(again.rows()[:4], [("point", 0), version.row(1), get[:4] + ((1, get[4][1]),),
+                                            ("return", 2, 1)])
 
     def test_tests_and_jumps_lead_to_the_copies(self):
         piece = Piece("fun main(a) {show a; if a {show a;} return a;}")
         version = slow(piece.program, "main")
-        self.assertEqual(version.rows()[3:8], [("point", 1), ("check", ("kind", 0, "bit"), piece.end(0, 1)), ("test", 0, 7), ("link", 1, 2), ("link", 1, 3)])
+        self.assertEqual(version.rows()[3:8], [("point", 1), ("check", ("kind", 0, "bit"), piece.end(0, 1)),
+                                               ("test", 0, 7), ("link", 1, 2), ("link", 1, 3)])
         told = self.made(piece, version, gone_on, 2)
-        self.assertEqual(told.rows()[:7], [("point", 0), ("show", 0), ("check", ("kind", 0, "bit"), piece.end(1, 1)), ("test", 0, 5), ("link", 2, 2),
+        self.assertEqual(told.rows()[:7], [("point", 0), ("show", 0), ("check", ("kind", 0, "bit"), piece.end(1, 1)),
+                                           ("test", 0, 5), ("link", 2, 2),
                                            ("link", 2, 3), ("point", 1)])
         # What was led to behind the link has other numbers now.
-        self.assertEqual(told.rows()[6:11], [("point", 1), version.row(4), ("test", 0, 10), ("link", 1, 2), ("link", 1, 3)])
+        self.assertEqual(told.rows()[6:11], [("point", 1), version.row(4), ("test", 0, 10), ("link", 1, 2),
+                                             ("link", 1, 3)])
         self.assertTrue(is_closed(piece.program, told))
         both = self.made(piece, self.made(piece, told, gone_on, 5), gone_on, 4)
         self.assertEqual(both.rows()[3:7], [("test", 0, 6), ("show", 0), ("link", 3, 3), ("return", 2, 0)])
@@ -390,7 +428,8 @@ class GoneOn(MakerTest):
     def test_a_piece_that_begins_with_a_jump_back(self):
         piece = Piece("fun main(a) {show a; show a; return a;}")
         places = piece.places(0)
-        rows = [("point", 1), ("jump", 4), ("point", 0), ("jump", 6), ("show", 0), ("return", 1, 0), ("show", 0), ("link", 1, 1)]
+        rows = [("point", 1), ("jump", 4), ("point", 0), ("jump", 6), ("show", 0), ("return", 1, 0), ("show", 0),
+                ("link", 1, 1)]
         version = Version("main", [], [], 4, rows, [(0, (), places), (1, (), places)])
         check_version(piece.program, version)
         told = self.made(piece, version, gone_on, 7)
@@ -400,7 +439,8 @@ class GoneOn(MakerTest):
         version = Version("main", [], [], 4, rows, [(0, (), places), (1, (), places)])
         check_version(piece.program, version)
         told = self.made(piece, version, gone_on, 2)
-        self.assertEqual(told.rows(), [("point", 0), ("show", 0), ("jump", 5), ("show", 0), ("return", 2, 0), ("jump", 3), ("show", 0), ("return", 1, 0),
+        self.assertEqual(told.rows(), [("point", 0), ("show", 0), ("jump", 5), ("show", 0), ("return", 2, 0),
+                                       ("jump", 3), ("show", 0), ("return", 1, 0),
                                        ("point", 1), ("jump", 6)])
         for one in (version, told):
             self.assertTrue(is_closed(piece.program, one))
@@ -412,7 +452,8 @@ class GoneOn(MakerTest):
         told = self.made(piece, version, gone_on, 4)
         more = ("check", ("kind", 0, "bit"), piece.end(3, 0))
         self.assertEqual(told.rows()[:4], [("point", 0), check, ("test", 0, 9), ("show", 0)])
-        self.assertEqual(told.rows()[4:], [more, ("test", 0, 8), ("show", 0), ("link", 6, 0), ("return", 4, 0), ("return", 1, 0)])
+        self.assertEqual(told.rows()[4:], [more, ("test", 0, 8), ("show", 0), ("link", 6, 0), ("return", 4, 0),
+                                           ("return", 1, 0)])
         again = self.made(piece, told, gone_on, 7)
         self.assertIn(("link", 12, 0), again.rows())
         for one in (version, told, again):
@@ -424,7 +465,8 @@ class Specialized(MakerTest):
 
     def version(self):
         end = [self.piece.end(at, at) for at in range(5)]
-        rows = [("get", 2, 0, "f", end[0]), ("set", 0, "f", 1, end[1]), ("set", 1, "g", 2, end[2]), ("get", 2, 1, "f", end[3]), ("return", 4, 2)]
+        rows = [("get", 2, 0, "f", end[0]), ("set", 0, "f", 1, end[1]), ("set", 1, "g", 2, end[2]),
+                ("get", 2, 1, "f", end[3]), ("return", 4, 2)]
         return self.piece.version(rows, names=["n", "o"])
 
     NAMES = {5: "n", 7: "o"}
@@ -445,11 +487,13 @@ class Specialized(MakerTest):
         plain = with_part(version, rows=[("point", 0)] + version.rows()[4:])
         up = (1,) + self.UP[1:]
         chain = (("o", ("n", ("h",))), ("n", (None, ("f",))))
-        self.assertEqual(specialized(self.piece.program, plain, [up], self.NAMES), with_above(self.piece.program, plain, 1, ("o", ()), chain))
+        self.assertEqual(specialized(self.piece.program, plain, [up], self.NAMES),
+                         with_above(self.piece.program, plain, 1, ("o", ()), chain))
 
     def test_every_sequence(self):
         version, pairs = self.version(), (self.OWN, self.STORE, self.GROW)
-        expected = with_own(self.piece.program, with_own(self.piece.program, with_grown(self.piece.program, version, 3, (None, ())), 2,
+        expected = with_own(self.piece.program, with_own(self.piece.program,
+                                                         with_grown(self.piece.program, version, 3, (None, ())), 2,
                                                          ("n", ("e", "f"))), 1, ("n", ("f",)))
         for cells in itertools.permutations(pairs):
             for told in (cells, list(cells)):
@@ -488,12 +532,15 @@ class Specialized(MakerTest):
     def test_objects_without_names(self):
         for names in ({}, {5: "n"}, {7: "o"}):
             with self.assertRaises(BadShape):
-                specialized(self.piece.program, with_part(self.version(), rows=[("point", 0)] + self.version().rows()[4:]), [(1,) + self.UP[1:]], names)
+                specialized(self.piece.program, with_part(self.version(),
+                                                          rows=[("point", 0)] + self.version().rows()[4:]),
+                            [(1,) + self.UP[1:]], names)
         last = (1, ((7, ()), ("up", ((7, (5, ("f",))),), 0)))
         plain = with_part(self.version(), rows=[("point", 0)] + self.version().rows()[4:])
         with self.assertRaises(BadShape):
             specialized(self.piece.program, plain, [last], {7: "o"})
-        self.assertEqual(specialized(self.piece.program, plain, [last], self.NAMES).watched(), [("holds", "o", ("n", ("f",)))])
+        self.assertEqual(specialized(self.piece.program, plain, [last], self.NAMES).watched(),
+                         [("holds", "o", ("n", ("f",)))])
         for pair in (self.OWN, self.STORE):
             with self.assertRaises(BadShape):
                 specialized(self.piece.program, self.version(), [pair], {7: "o"})

@@ -42,7 +42,8 @@ class Fitting(JudgeTest):
     def version(self, facts=(), names=(), watched=(), pairs=None):
         places = pairs or self.piece.places(0)
         end = (0, (("main", 0, places),))
-        return Version("main", list(names), list(watched), 6, [("point", 0), ("stop", end)], [(0, tuple(facts), places)])
+        return Version("main", list(names), list(watched), 6, [("point", 0), ("stop", end)],
+                       [(0, tuple(facts), places)])
 
     def test_a_start(self):
         state = state_of(self.piece, 0, YES, num(1))
@@ -77,19 +78,22 @@ class Fitting(JudgeTest):
 
     def test_facts(self):
         names, shape = ["n"], ("n", ("e",))
-        for fact, one, other in ((("kind", 0, "num"), num(1), YES), (("is", 0, NO), NO, YES), (("is", 0, ("name", "n")), obj(0), obj(1)),
+        for fact, one, other in ((("kind", 0, "num"), num(1), YES), (("is", 0, NO), NO, YES),
+                                 (("is", 0, ("name", "n")), obj(0), obj(1)),
                                  (("shape", 0, shape), obj(2), obj(1)), (("same", 0, 1), num(2), num(1)),
                                  (("unlike", 0, 1), num(1), num(2))):
             version = self.version([fact], names)
             self.judge("closed", self.piece, version, state_of(self.piece, 0, one, num(2)), [0])
             self.judge("fit", self.piece, version, state_of(self.piece, 0, other, num(2)), [0])
-        self.judge("fit", self.piece, self.version([("shape", 0, shape)], names), state_of(self.piece, 0, obj(2), NONE), [1])
+        self.judge("fit", self.piece, self.version([("shape", 0, shape)], names),
+                   state_of(self.piece, 0, obj(2), NONE), [1])
 
     def test_watched_facts(self):
         for fact, told, binding, expected in (
             (("global", "g", YES), {"g": YES}, [0], "closed"), (("global", "g", YES), {"g": NO}, [0], "fit"),
             (("global", "g", YES), {}, [0], "fit"), (("global", "g", ("name", "n")), {"g": obj(1)}, [1], "closed"),
-            (("global", "g", ("name", "n")), {"g": obj(1)}, [2], "fit"), (("holds", "n", (None, ("f", "g"))), {}, [0], "closed"),
+            (("global", "g", ("name", "n")), {"g": obj(1)}, [2], "fit"), (("holds", "n", (None, ("f", "g"))), {}, [0],
+                                                                          "closed"),
             (("holds", "n", (None, ("g", "f"))), {}, [0], "fit"), (("holds", "n", (None, ("f", "g"))), {}, [1], "fit"),
             (("slot", "n", "g", num(1)), {}, [0], "closed"), (("slot", "n", "g", num(2)), {}, [0], "fit"),
             (("slot", "n", "e", num(1)), {}, [0], "fit"),
@@ -102,7 +106,8 @@ class Fitting(JudgeTest):
         state = state_of(self.piece, 0, YES, NO)
         for objects in ([0, 1], (2, 0)):
             self.assertEqual(judge_start(self.piece.program, version, 0, BOOK, state, objects), "closed")
-        for objects in STRANGE + ([0], [0, 1, 2], [0, 0], [0, 3], [0, -1], [0, True], [False, 1], [0, None], [0, "1"], [0, [1]],
+        for objects in STRANGE + ([0], [0, 1, 2], [0, 0], [0, 3], [0, -1], [0, True], [False, 1], [0, None], [0, "1"],
+                                  [0, [1]],
                                   [0, 10 ** 40], {0: 1, 1: 2}, "01", Shapes(), {"n": 0, "o": 1}):
             self.assertEqual(judge_start(self.piece.program, version, 0, BOOK, state, objects), "fit")
         for objects in ([0], None, {}, ""):
@@ -114,7 +119,8 @@ class Fitting(JudgeTest):
             version = self.piece.version([("const", 4, num(number)), ("stop", self.piece.end(0, 0))])
             self.judge(expected, self.piece, version, state)
         # Also tokens of rows of other pieces, and of places.
-        rows = [("point", 0), ("stop", self.piece.end(0, 0)), ("point", 1), ("stop", self.piece.end(0, 0, r0=val(("tok", "col", 2))))]
+        rows = [("point", 0), ("stop", self.piece.end(0, 0)), ("point", 1),
+                ("stop", self.piece.end(0, 0, r0=val(("tok", "col", 2))))]
         version = Version("main", [], [], 6, rows, [(0, (), self.piece.places(0))] * 2)
         self.judge("fit", self.piece, version, state)
 
@@ -186,14 +192,16 @@ class Conditions(JudgeTest):
         # The frame is left by a throw, and another frame of the function stands at a return.
         text = "fun main(a) {try {let b = call &main(a); return a;} catch e {return a;} throw a;}"
         piece = Piece(text)
-        self.assertEqual([row[0] for row in piece.code.rows()][:6], ["const", "call", "return", "jump", "return", "throw"])
+        self.assertEqual([row[0] for row in piece.code.rows()][:6], ["const", "call", "return", "jump", "return",
+                                                                     "throw"])
         waiting = ("main", 1, (YES,) + (NONE,) * (piece.code.registers() - 1))
         self.judge(None, piece, piece.version([("return", 1, 0)], at=5), state_of(piece, 5, YES, outer=[waiting]))
 
     def test_links(self):
         piece = Piece("fun main(a, b) {a.f = b; let c = a.f; return c;}")
         rows = [("set", 0, "f", 1, piece.end(0, 0)), ("get", 2, 0, "f", piece.end(1, 1)), ("link", 2, 1)]
-        for facts, expected in (((), "closed"), ([("same", 2, 2)], "closed"), ([("kind", 2, "num")], "closed"), ([("kind", 2, "obj")], None)):
+        for facts, expected in (((), "closed"), ([("same", 2, 2)], "closed"), ([("kind", 2, "num")], "closed"),
+                                ([("kind", 2, "obj")], None)):
             self.judge(expected, piece, piece.version(rows, points=[(2, facts)]), state_of(piece, 0, obj(1), num(1)))
         const = [("const", 2, num(1))]
         for changed, expected in ((const + rows[:1] + rows[2:], "closed"), (const + rows[2:], None)):
@@ -224,13 +232,15 @@ class Conditions(JudgeTest):
         for called in (NONE, ("fun", "h"), ("fun", "zz"), obj(0)):
             self.judge(None, piece, version("f", 1), state_of(piece, 0, called, YES))
         self.judge("closed", piece, version("h", 1), state_of(piece, 0, ("fun", "f"), YES))
-        for fact, expected in ((("kind", 0, "fun"), "closed"), (("kind", 0, "num"), None), (("is", 0, ("fun", "f")), "closed"),
+        for fact, expected in ((("kind", 0, "fun"), "closed"), (("kind", 0, "num"), None),
+                               (("is", 0, ("fun", "f")), "closed"),
                                (("is", 0, ("fun", "g")), None), (("same", 0, 0), "closed"), (("unlike", 0, 0), None)):
             self.judge(expected, piece, version("f", 1, fact), state_of(piece, 0, ("fun", "f"), YES))
 
     def test_calls_elsewhere(self):
         piece = Piece("fun main(a, b) {show b; let c = call a(b); return c;} fun f(x) {return x;}")
-        for shown, steps, row, expected in (([1], 1, 1, "closed"), ([], 1, 1, None), ([1], 2, 1, None), ([1], 0, 1, None)):
+        for shown, steps, row, expected in (([1], 1, 1, "closed"), ([], 1, 1, None), ([1], 2, 1, None),
+                                            ([1], 0, 1, None)):
             rows = [("show", q) for q in shown] + [("call", 2, 0, (1,), piece.end(steps, row), 1)]
             version = piece.version(rows, points=[(row + 1, ())])
             self.judge(expected, piece, version, state_of(piece, 0, ("fun", "f"), YES))
@@ -241,7 +251,8 @@ class Conditions(JudgeTest):
         method = piece.version([("method", 2, 0, "m", (1,), piece.end(0, 0), 1)], points=[(1, ())])
         self.judge("closed", piece, method, state_of(piece, 0, obj(1), YES, objects=objects))
         self.judge("closed", piece, method, state_of(piece, 0, YES, YES, objects=objects))
-        for name, args, expected in (("f", (0, 1), "closed"), ("g", (0, 1), None), ("f", (1, 1), None), ("f", (0, 0), None)):
+        for name, args, expected in (("f", (0, 1), "closed"), ("g", (0, 1), None), ("f", (1, 1), None),
+                                     ("f", (0, 0), None)):
             rows = [("const", 4, ("fun", name)), ("call", 2, 4, args, piece.end(0, 0), 1)]
             version = piece.version(rows, points=[(1, ())])
             self.judge(expected, piece, version, state_of(piece, 0, obj(1), YES, objects=objects))

@@ -2,7 +2,7 @@
 
 import unittest
 
-from pieces import S0, S1, S2, Piece, branch_of, val
+from pieces import S0, S1, Piece, branch_of, val
 from samples import NO, NONE, STRANGE, YES, num
 from shapeguess.errors import BadPaper
 from shapeguess.quick import Version
@@ -45,7 +45,8 @@ class PlainWalks(WalkTest):
         piece = Piece("fun main(a) {let b = a; show b; let c = #num:1; return c;}")
         version = piece.version([("stop", piece.end(1, 1, r1=("reg", 0)))])
         self.along("alike", piece, version)
-        self.along("unlike", piece, piece.version([("stop", piece.end(1, 1, r1=val(num(1))))], facts=[("kind", 0, "obj")]))
+        self.along("unlike", piece, piece.version([("stop", piece.end(1, 1, r1=val(num(1))))],
+                                                  facts=[("kind", 0, "obj")]))
 
     def test_test(self):
         piece = Piece("fun main(a) {if a {show a;} return a;}")
@@ -144,9 +145,11 @@ class PlainWalks(WalkTest):
         version = piece.version([("stop", piece.end(1, 1, r1=val(NONE)))], facts, ["n"])
         self.along("alike", piece, version, ("which", S0), "further", ("shape", 0), OTHER, ("has", 0, "f"), "yes",
                    ("kind", of("f")), "none")
-        version = piece.version([("stop", piece.end(1, 1, r1=val(NONE)))], facts, ["n"], [("holds", "n", (None, ("f",)))])
+        version = piece.version([("stop", piece.end(1, 1, r1=val(NONE)))], facts, ["n"],
+                                [("holds", "n", (None, ("f",)))])
         self.along("alike", piece, version, ("which", S0), "further", ("kind", of("f")), "none")
-        version = piece.version([("stop", piece.end(1, 1, r1=val(NONE)))], facts, ["n"], [("holds", "n", (None, ("g",)))])
+        version = piece.version([("stop", piece.end(1, 1, r1=val(NONE)))], facts, ["n"],
+                                [("holds", "n", (None, ("g",)))])
         self.along("unlike", piece, version, ("which", S0), "further")
 
     def test_method(self):
@@ -235,7 +238,8 @@ class PlainWalks(WalkTest):
                                  ("stop", piece.end(3, 3, r2=("reg", 1)))])
         self.along("alike", piece, version, *an_object(S0), ("has", 0, "f"), "yes")
         piece = Piece("fun main(a, b) {a.f = b; let c = a.f; return c;}")
-        rows = [("set", 0, "f", 1, piece.end(0, 0)), ("get", 4, 0, "f", piece.end(0, 0)), ("stop", piece.end(2, 2, r2=("reg", 4)))]
+        rows = [("set", 0, "f", 1, piece.end(0, 0)), ("get", 4, 0, "f", piece.end(0, 0)),
+                ("stop", piece.end(2, 2, r2=("reg", 4)))]
         for version in (piece.version(rows), piece.version(rows[:1] + [("stop", piece.end(2, 2, r2=("reg", 1)))])):
             for answer in ("yes", "no"):
                 self.along("alike", piece, version, *an_object(S0), ("has", 0, "f"), answer)
@@ -291,7 +295,8 @@ class QuickWalks(WalkTest):
         self.along(expected, self.piece, version, *members)
 
     def test_rows_that_need_nothing(self):
-        self.goes("alike", [("const", 2, num(1)), ("const", 2, ("name", "n")), ("move", 3, 0), ("same", 4, 0, 3)], names=["n"])
+        self.goes("alike", [("const", 2, num(1)), ("const", 2, ("name", "n")), ("move", 3, 0), ("same", 4, 0, 3)],
+                  names=["n"])
         self.goes("alike", [("jump", 2)])
 
     def test_checks_of_kinds(self):
@@ -426,7 +431,8 @@ class Calls(WalkTest):
             self.along(expected, self.piece, version, *known(S0, "fun", answer))
         self.along("unlike", self.piece, version, ("kind", S0), "err")
         # The plain walk ends before.
-        version = self.piece.version([("const", 3, ("fun", "one")), ("call", 2, 3, (1,), self.piece.end(9, 0), 1)], points=[(1, ())])
+        version = self.piece.version([("const", 3, ("fun", "one")), ("call", 2, 3, (1,), self.piece.end(9, 0), 1)],
+                                     points=[(1, ())])
         for answer in (0, 1):
             self.along("unlike", self.piece, version, *known(S0, "fun", answer))
         # A function that is not called needs nothing of the plain walk: it goes back at once.
@@ -444,7 +450,8 @@ class Calls(WalkTest):
         # The plain run stands elsewhere, or somewhere else in the same function.
         piece = Piece("fun main(a, b) {let c = call a(b); let c = call a(b); return c;} fun one(x) {return x;}")
         found = known(S0, "fun", 1)
-        for steps, row, expected in ((0, 0, "alike"), (1, 0, "unlike"), (2, 1, "alike"), (0, 1, "unlike"), (3, 1, "unlike")):
+        for steps, row, expected in ((0, 0, "alike"), (1, 0, "unlike"), (2, 1, "alike"), (0, 1, "unlike"),
+                                     (3, 1, "unlike")):
             version = piece.version([("call", 2, 0, (1,), piece.end(steps, row), 1)], points=[(row + 1, ())])
             self.at(expected, piece, version, *found)
 
@@ -494,7 +501,8 @@ class Calls(WalkTest):
     def test_places_of_the_end(self):
         piece = Piece("fun main(a, b) {let c = call &one(b); show a; return c;} fun one(x) {return x;}")
         end = (1, (("main", 1, ((0, val(num(4))), (1, ("reg", 1)), (3, ("reg", 3)))),))
-        rows = [("point", 0), ("const", 3, ("fun", "one")), ("call", 2, 3, (1,), end, 1), ("point", 1), ("return", 1, 2)]
+        rows = [("point", 0), ("const", 3, ("fun", "one")), ("call", 2, 3, (1,), end, 1), ("point", 1),
+                ("return", 1, 2)]
         points = [(0, (), piece.places(0)), (2, (), ((0, val(num(4))), (2, ("reg", 2))))]
         version = Version("main", [], [], 6, rows, points)
         self.along("alike", piece, version, *known(S0, "num", 0))
@@ -540,7 +548,8 @@ class Links(WalkTest):
         return self.piece.version(rows, points=[(row, facts)], **more)
 
     def test_counts_and_rows(self):
-        for steps, row, expected in ((1, 1, "alike"), (2, 1, "unlike"), (2, 2, "alike"), (1, 2, "unlike"), (3, 2, "unlike"),
+        for steps, row, expected in ((1, 1, "alike"), (2, 1, "unlike"), (2, 2, "alike"), (1, 2, "unlike"),
+                                     (3, 2, "unlike"),
                                      (9, 2, "unlike")):
             self.along(expected, self.piece, self.linked([("show", 0)], steps, row))
 
@@ -583,14 +592,17 @@ class Links(WalkTest):
 
     def test_broken_watched_facts_do_not_matter(self):
         piece = Piece("fun main(a, b) {$g = a; return a;}")
-        version = piece.version([("put", "g", 0), ("link", 1, 1)], [("is", 0, NO)], [], [("global", "g", YES)], [(1, ())])
+        version = piece.version([("put", "g", 0), ("link", 1, 1)], [("is", 0, NO)], [], [("global", "g", YES)],
+                                [(1, ())])
         self.along("alike", piece, version)
 
     def test_places_of_the_next_point(self):
         piece = Piece("fun main(a) {let b = a; return b;}")
         for place, members, expected in ((("reg", 0), (), "alike"), (val(num(1)), known(S0, "num", 0), "alike"),
-                                         (val(num(1)), known(S0, "num"), "unlike"), (("name", "n"), known(S0, "obj", 0), "alike"),
-                                         (("name", "n"), known(S0, "obj"), "unlike"), (val(NONE), (("kind", S0), "err"), "unlike")):
+                                         (val(num(1)), known(S0, "num"), "unlike"),
+                                         (("name", "n"), known(S0, "obj", 0), "alike"),
+                                         (("name", "n"), known(S0, "obj"), "unlike"),
+                                         (val(NONE), (("kind", S0), "err"), "unlike")):
             rows = [("point", 0), ("link", 1, 1), ("point", 1), ("stop", (0, (("main", 1, ((1, place),)),)))]
             version = Version("main", ["n"], [], 3, rows, [(0, (), piece.places(0)), (1, (), ((1, place),))])
             self.along(expected, piece, version, *members)
@@ -672,9 +684,12 @@ class Comparisons(WalkTest):
     def test_fields_put_since_get_other_values(self):
         piece = Piece("fun main(a, b) {drop a.e; a.e = a; a.e = b; a.f = b; return a;}")
         found = an_object(S0) + [("has", 0, "e"), "yes", ("has", 0, "f"), "yes"]
-        drop, one, two, f = [("drop", 0, "e", piece.end(0, 0))] + [("set", 0, field, q, piece.end(0, 0)) for field, q in (("e", 0), ("e", 1), ("f", 1))]
-        for rows, expected in (([drop, one, two, f], "alike"), ([drop, two, f], "alike"), ([f, drop, two], "alike"), ([drop, f], "unlike"),
-                               ([drop, two, one, two, f], "alike"), ([two, f], "unlike"), ([f], "unlike"), ([drop, f, two, drop], "unlike")):
+        drop, one, two, f = [("drop", 0, "e", piece.end(0, 0))] + [("set", 0, field, q, piece.end(0, 0)) for field,
+                                                                   q in (("e", 0), ("e", 1), ("f", 1))]
+        for rows, expected in (([drop, one, two, f], "alike"), ([drop, two, f], "alike"), ([f, drop, two], "alike"),
+                               ([drop, f], "unlike"),
+                               ([drop, two, one, two, f], "alike"), ([two, f], "unlike"), ([f], "unlike"),
+                               ([drop, f, two, drop], "unlike")):
             self.at(expected, piece, piece.version(rows + [("link", 4, 1)], points=[(4, ())]), *found)
         version = piece.version([drop, two, one, f, ("link", 4, 1)], points=[(4, ())])
         self.at("open", piece, version, *found)
@@ -726,14 +741,16 @@ class Comparisons(WalkTest):
         piece = Piece("fun main(a) {let b = new(none); let c = new(none); show b; show c; return b;}")
         back = piece.end(0, 0)
         make = [("const", 4, NONE), ("new", 1, 4, back), ("new", 2, 4, back)]
-        for shown, expected in (((1, 2, 1), "alike"), ((2, 1, 2), "alike"), ((1, 1, 1), "unlike"), ((1, 2, 2), "unlike")):
+        for shown, expected in (((1, 2, 1), "alike"), ((2, 1, 2), "alike"), ((1, 1, 1), "unlike"),
+                                ((1, 2, 2), "unlike")):
             rows = make + [("show", shown[0]), ("show", shown[1]), ("return", 6, shown[2])]
             self.along(expected, piece, piece.version(rows))
 
     def test_fresh_objects_are_nothing_else(self):
         piece = Piece("fun main(a) {let b = new(none); show a; show b; show b; return a;}")
         make = [("const", 4, NONE), ("new", 1, 4, piece.end(0, 0)), ("new", 2, 4, piece.end(0, 0))]
-        for shown, expected in (((0, 1, 1), "alike"), ((1, 1, 1), "unlike"), ((0, 0, 1), "unlike"), ((0, 1, 2), "unlike"), ((0, 2, 2), "alike"),
+        for shown, expected in (((0, 1, 1), "alike"), ((1, 1, 1), "unlike"), ((0, 0, 1), "unlike"),
+                                ((0, 1, 2), "unlike"), ((0, 2, 2), "alike"),
                                 ((0, 1, 0), "unlike")):
             version = piece.version(make + [("show", q) for q in shown] + [("link", 5, 1)], points=[(5, ())])
             self.along(expected, piece, version)
@@ -742,8 +759,10 @@ class Comparisons(WalkTest):
         piece = Piece("fun main(a) {let b = new(none); let c = new(b); c.f = a; show c; return a;}")
         back = piece.end(0, 0)
         make = [("const", 4, NONE), ("new", 1, 4, back), ("new", 2, 1, back)]
-        for fields, parent, expected in ((("f",), (), "alike"), ((), (), "unlike"), (("g",), (), "unlike"), (("f", "g"), (), "unlike"), (("f",), ("f",), "unlike")):
-            rows = make + [("set", 2, field, 0, back) for field in fields] + [("set", 1, field, 0, back) for field in parent]
+        for fields, parent, expected in ((("f",), (), "alike"), ((), (), "unlike"), (("g",), (), "unlike"),
+                                         (("f", "g"), (), "unlike"), (("f",), ("f",), "unlike")):
+            rows = make + [("set", 2, field, 0, back) for field in fields] + [("set", 1, field, 0, back)
+                                                                              for field in parent]
             self.along(expected, piece, piece.version(rows + [("show", 2), ("link", 5, 1)], points=[(5, ())]))
 
     def test_parents_of_fresh_objects(self):
